@@ -1,0 +1,1 @@
+"""Safeupto: up to which size of its runs a condition of a program holds."""

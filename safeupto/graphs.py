@@ -1,0 +1,95 @@
+"""The points and edges of programs."""
+
+from safeupto.errors import InvalidName, InvalidProgram, TooMany
+from safeupto.kinds import is_name
+from safeupto.programs import Program
+
+MOST_POINTS = 150
+
+
+class Graph:
+    """The points and edges of a program without parameters."""
+
+    def __init__(self, program):
+        if not isinstance(program, Program) or len(program.parameters) > 0:
+            raise InvalidProgram(program)
+        self._bodies = {name: body for name, body in program.procedures}
+        self._many = 1
+        self._made = []
+        self._end = self._go_through(program.main, 0)
+        self._edges = tuple(self._made)
+
+    @property
+    def points(self):
+        """The number of points."""
+        return self._many
+
+    @property
+    def edges(self):
+        """The tuple of the edges (source, target, action)."""
+        return self._edges
+
+    @property
+    def end(self):
+        """The point at which main ends."""
+        return self._end
+
+    def points_of(self, place):
+        """The sorted list of the points of a place."""
+        if not is_name(place):
+            raise InvalidName(place)
+        found = sorted([target for _, target, action in self._edges if action == ("place", place)])
+        if len(found) == 0:
+            raise InvalidName(place)
+        return found
+
+    def edges_out(self):
+        """The list of the lists of the indices of the edges that begin at each point."""
+        found = [[] for _ in range(self._many)]
+        for index, (source, _, _) in enumerate(self._edges):
+            found[source].append(index)
+        return found
+
+    def edges_in(self):
+        """The list of the lists of the indices of the edges that end at each point."""
+        found = [[] for _ in range(self._many)]
+        for index, (_, target, _) in enumerate(self._edges):
+            found[target].append(index)
+        return found
+
+    def _go_through(self, body, point):
+        """Makes the points and edges of a body that begins at the point; returns where it ends."""
+        for statement in body:
+            word = statement[0]
+            if word == "either":
+                point = self._either(statement, point)
+            elif word == "loop":
+                point = self._loop(statement, point)
+            elif word == "call":
+                last = self._go_through(self._bodies[statement[1]], self._lead(point, statement))
+                point = self._lead(last, None)
+            else:
+                point = self._lead(point, statement)
+        return point
+
+    def _either(self, statement, point):
+        first = self._go_through(statement[1], self._lead(point, None))
+        second = self._go_through(statement[2], self._lead(point, None))
+        joint = self._lead(first, None)
+        self._made.append((second, joint, None))
+        return joint
+
+    def _loop(self, statement, point):
+        head = self._lead(point, None)
+        last = self._go_through(statement[2], self._lead(head, ("round", statement[1])))
+        self._made.append((last, head, None))
+        return self._lead(head, None)
+
+    def _lead(self, source, action):
+        """Makes a new point and an edge to it; returns the point."""
+        # It is looked at with each point, as a program can have millions of them.
+        if self._many == MOST_POINTS:
+            raise TooMany(MOST_POINTS)
+        self._many = self._many + 1
+        self._made.append((source, self._many - 1, action))
+        return self._many - 1

@@ -1,0 +1,43 @@
+"""Bodies that are made from other bodies."""
+
+
+def rewritten(body, change):
+    """The body with the tuple change(statement) in the place of each statement without bodies inside."""
+    found = []
+    for statement in body:
+        if statement[0] == "either":
+            found.append(("either", rewritten(statement[1], change), rewritten(statement[2], change)))
+        elif statement[0] == "loop":
+            found.append(("loop", statement[1], rewritten(statement[2], change)))
+        else:
+            found.extend(change(statement))
+    return tuple(found)
+
+
+def numbered(body, numbers):
+    """The body with numbers, a dict, in the places of the names of parameters."""
+    def change(statement):
+        if statement[0] != "set":
+            return (statement,)
+        parts = [(variable, numbers.get(constant, constant)) for variable, constant in statement[2]]
+        return (("set", statement[1], tuple(parts)),)
+
+    return rewritten(body, change)
+
+
+def opposite(body):
+    """The body, without names of parameters, in which every variable has the opposite sign."""
+    return rewritten(body, opposite_statement)
+
+
+def opposite_statement(statement):
+    """What stands in the place of a statement, in a tuple, if every variable has the opposite sign."""
+    word = statement[0]
+    if word == "set":
+        parts = [(variable, -constant) for variable, constant in statement[2]]
+        return (("set", statement[1], tuple(parts)),)
+    if word == "input":
+        return ((word, statement[1], -statement[3], -statement[2]),)
+    if word in ("guard", "read"):
+        return ()
+    return (statement,)
