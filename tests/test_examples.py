@@ -37,6 +37,79 @@ MACHINE = """
 """
 
 
+VALUES = """
+>>> from safeupto.programs import Program
+>>> from safeupto.values import greatest
+>>> count = Program([('x', 0, 0), ('y', 0, 5)], (('loop', 'go', (('set', 'x', (('x', 3),)), ('place', 'here'))),))
+>>> size = ('rounds', 'go')
+>>> [greatest(count, ('here', 'x', 'y', 0), size, 4), greatest(count, ('here', 'y', None, 0), size, 0), greatest(count, ('here', 'x', None, 0), ('calls', None), 0)]
+[12, None, 'endless']
+"""
+
+LIMITS = """
+>>> from safeupto.limits import Limit, breaking, is_breaking, limit
+>>> from safeupto.programs import Program
+>>> rows = (('loop', 'go', (('set', 'x', (('x', 3),)), ('place', 'here'))),)
+>>> count, far = Program([('x', 0, 0)], rows), ('here', 'x', None, 10 ** 30)
+>>> found = limit(count, far, ('rounds', 'go'))
+>>> [found.size, 5 in found, (found & Limit(9)).size, is_breaking(count, far, ('rounds', 'go'), found.size + 1, breaking(count, far, ('rounds', 'go')))]
+[333333333333333333333333333333, True, 9, True]
+"""
+
+PAPERS = """
+>>> from safeupto.papers import bounds, heights, is_bounds
+>>> from safeupto.programs import Program
+>>> count = Program([('x', 0, 0), ('y', 0, 5)], (('loop', 'go', (('set', 'x', (('x', 3),)), ('place', 'here'))),))
+>>> size, wish = ('rounds', 'go'), ('here', 'x', None, 5)
+>>> [heights(count, wish), len(heights(count, ('here', 'y', None, 5))), is_bounds(count, wish, size, 1, bounds(count, wish, size, 1)), bounds(count, wish, size, 2)]
+[None, 5, True, None]
+"""
+
+RATES = """
+>>> from safeupto.programs import Program
+>>> from safeupto.rates import rate
+>>> count = Program([('x', 0, 0), ('y', 0, 5)], (('loop', 'go', (('set', 'x', (('x', 3),)), ('place', 'here'))),))
+>>> [rate(count, ('here', name, None, 0), size) for name, size in [('x', ('rounds', 'go')), ('y', ('rounds', 'go')), ('x', ('calls', None))]]
+[(3, 1), (0, 1), 'endless']
+"""
+
+LINES = """
+>>> from safeupto.lines import corners, least_line
+>>> from safeupto.programs import Program
+>>> rows = (('loop', 'a', (('set', 'x', (('x', 1),)),)), ('loop', 'b', (('set', 'x', ((None, 9),)),)), ('place', 'here'))
+>>> late, wish, size = Program([('x', 0, 0)], rows), ('here', 'x', None, 0), ('rounds', None)
+>>> [corners(late, wish, size), least_line(late, wish, size, (1, 1)), least_line(late, wish, size, (5, 2)), least_line(late, wish, size, (1, 2))]
+[[(0, 0), (1, 9)], 8, 13, 'endless']
+"""
+
+FORMULAS = """
+>>> from safeupto.formulas import Formula
+>>> first, second = Formula([], [(0, 1, 0, 2)], None), Formula([0], [(0, 3, -10, 9), (1, 3, -10, 9), (2, 3, -10, 9)], None)
+>>> both = first | second
+>>> [both.greatest(2), both.greatest(12), both.greatest(10 ** 12), both(20).size, (both + 1)(20).size, Formula([1, 2], [], None)(5).size]
+[4, 26, 2999999999987, 10, 9, None]
+"""
+
+STARTS = """
+>>> from safeupto.programs import Program
+>>> from safeupto.starts import Starts, pieces
+>>> rows = (('loop', 'go', (('set', 'x', (('x', 'p'),)), ('place', 'here'))),)
+>>> count, size, wish = Program([('x', 0, 0)], rows, parameters=[('p', 1, 6)]), ('rounds', 'go'), ('here', 'x', None, 12)
+>>> starts = Starts(count.given({'p': 3}), wish, size)
+>>> [starts.pairs, starts({'x': (1, 4)}, 13).size, [(low, high, one.size) for low, high, one in pieces(count, 'p', {}, wish, size)]]
+[(('x', None),), 3, [(1, 1, 12), (2, 2, 6), (3, 3, 4), (4, 4, 3), (5, 6, 2)]]
+"""
+
+STAIRCASES = """
+>>> from safeupto.programs import Program
+>>> from safeupto.staircases import staircase
+>>> rows = (('loop', 'a', (('set', 'x', (('x', 2),)),)), ('loop', 'b', (('set', 'x', (('x', 5),)),)), ('place', 'here'))
+>>> two = Program([('x', 0, 0)], rows)
+>>> [one.size for one in staircase(two, ('here', 'x', None, 12), ('rounds', 'a'), ('rounds', 'b'), 3)]
+[2, 2, 1, 1]
+"""
+
+
 class Examples(unittest.TestCase):
 
     def holds(self, example):
@@ -57,6 +130,30 @@ class Examples(unittest.TestCase):
 
     def test_machine(self):
         self.holds(MACHINE)
+
+    def test_values(self):
+        self.holds(VALUES)
+
+    def test_limits(self):
+        self.holds(LIMITS)
+
+    def test_papers(self):
+        self.holds(PAPERS)
+
+    def test_rates(self):
+        self.holds(RATES)
+
+    def test_lines(self):
+        self.holds(LINES)
+
+    def test_formulas(self):
+        self.holds(FORMULAS)
+
+    def test_starts(self):
+        self.holds(STARTS)
+
+    def test_staircases(self):
+        self.holds(STAIRCASES)
 
 
 if __name__ == "__main__":

@@ -16,6 +16,17 @@ BUILTINS = set("""
 ALL_BUILTINS = set(dir(builtins))
 WORDS = re.compile(r"\b(type|typing|typing_extensions|enum|Enum|IntEnum|StrEnum|Flag|IntFlag|Generic|Protocol|ABC"
                    r"|ABCMeta|namedtuple|NamedTuple|TypedDict|TYPE_CHECKING|abstractmethod)\b")
+LIBRARY = {"math": {"gcd"}, "heapq": {"heappush", "heappop"}}
+METHODS = set("""
+    append clear copy count endswith extend find get index insert isalnum isalpha isdigit islower isspace isupper items
+    join keys ljust lower lstrip partition pop remove replace reverse rfind rjust rpartition rsplit rstrip setdefault split
+    splitlines startswith strip update upper values zfill bit_length removeprefix removesuffix isascii add discard
+    """.split())
+FORBIDDEN_ATTRIBUTES = set("""
+    items keys values pop update append clear extend insert remove reverse setdefault sort args encode decode hex fromhex
+    format""".split())
+AT_ONCE = {"zip", "enumerate", "reversed", "range"}
+ITERATING = {"list", "tuple", "dict", "sorted", "sum", "any", "all", "min", "max"}
 NOT_ALLOWED = (ast.AsyncFunctionDef, ast.Global, ast.Await, ast.GeneratorExp, ast.NamedExpr, ast.AnnAssign)
 
 
@@ -62,8 +73,77 @@ class Language(unittest.TestCase):
                 if isinstance(node, (ast.Import, ast.ImportFrom)):
                     self.assertIn(node, at_the_top, name)
                     self.assertIsInstance(node, ast.ImportFrom, name)
-                    self.assertTrue(node.module.startswith("safeupto.") and node.level == 0, name)
-                    self.assertNotIn("*", [one.name for one in node.names])
+                    names = [one.name for one in node.names]
+                    if node.module in LIBRARY:
+                        self.assertLessEqual(set(names), LIBRARY[node.module], name)
+                    else:
+                        self.assertTrue(node.module.startswith("safeupto.") and node.level == 0, name)
+                    self.assertNotIn("*", names)
+
+    def test_no_circles_of_imports(self):
+        needs = {name[:-3]: {node.module.split(".")[1] for node in ast.walk(tree) if isinstance(node, ast.ImportFrom)
+                             and node.module.startswith("safeupto.")} for name, tree in trees()}
+        while needs:
+            free = {name for name in needs if not needs[name] & set(needs)}
+            self.assertTrue(free, needs)
+            needs = {name: needs[name] for name in needs if name not in free}
+
+    def test_names_stand_for_one_thing(self):
+        properties, methods, attributes, values = set(), set(), set(), set()
+        for name, tree in trees():
+            for node in ast.walk(tree):
+                if isinstance(node, ast.ClassDef):
+                    for one in node.body:
+                        if isinstance(one, ast.FunctionDef):
+                            (properties if one.decorator_list else methods).add(one.name)
+                if isinstance(node, ast.Attribute) and isinstance(node.ctx, ast.Store):
+                    attributes.add(node.attr)
+                if isinstance(node, ast.FunctionDef):
+                    values.add(node.name)
+        self.assertEqual(properties & methods, set())
+        self.assertEqual(properties & attributes, set())
+        self.assertEqual({name for name in methods & attributes if not name.startswith("_")}, set())
+        self.assertEqual(attributes & FORBIDDEN_ATTRIBUTES, set())
+
+    def test_imports_and_classes_are_not_named_again(self):
+        for name, tree in trees():
+            taken = {one.asname or one.name for node in tree.body if isinstance(node, ast.ImportFrom) for one in node.names}
+            taken |= {node.name for node in tree.body if isinstance(node, ast.ClassDef)}
+            for node in ast.walk(tree):
+                if isinstance(node, ast.Name) and isinstance(node.ctx, ast.Store):
+                    self.assertNotIn(node.id, taken, name)
+                if isinstance(node, ast.arg):
+                    self.assertNotIn(node.arg, taken, name)
+            bound = [node.name for node in tree.body if isinstance(node, (ast.FunctionDef, ast.ClassDef))]
+            self.assertEqual(len(bound + sorted(taken)) - len([one for one in bound if one in taken]),
+                             len(set(bound) | taken), name)
+
+    def test_builtin_methods(self):
+        own = {node.name for _, tree in trees() for node in ast.walk(tree) if isinstance(node, ast.FunctionDef)}
+        for name, tree in trees():
+            for node in ast.walk(tree):
+                if isinstance(node, ast.Call) and isinstance(node.func, ast.Attribute):
+                    self.assertIn(node.func.attr, own | METHODS, (name, node.lineno))
+                    self.assertFalse(node.keywords and node.func.attr in METHODS, (name, node.lineno))
+
+    def test_iterated_at_once(self):
+        for name, tree in trees():
+            for node in ast.walk(tree):
+                for value in ast.iter_child_nodes(node):
+                    if isinstance(value, ast.Call) and isinstance(value.func, ast.Name) and value.func.id in AT_ONCE:
+                        where = (isinstance(node, (ast.For, ast.comprehension)) and node.iter is value) or (
+                            isinstance(node, ast.Call) and isinstance(node.func, ast.Name)
+                            and node.func.id in ITERATING | AT_ONCE)
+                        self.assertTrue(where, (name, value.lineno, value.func.id))
+
+    def test_exponents(self):
+        for name, tree in trees():
+            for node in ast.walk(tree):
+                if isinstance(node, ast.BinOp) and isinstance(node.op, ast.Pow):
+                    self.assertIsInstance(node.right, ast.Constant, name)
+                    self.assertLessEqual(node.right.value, 64, name)
+                if isinstance(node, ast.Compare) and any(isinstance(op, (ast.Is, ast.IsNot)) for op in node.ops):
+                    self.assertIsInstance(node.comparators[0], ast.Constant, (name, node.lineno))
 
     def test_builtins(self):
         for name, tree in trees():

@@ -1,0 +1,69 @@
+"""Papers: heights, with which a condition holds for ever, and bounds, with which it holds up to a count."""
+
+from safeupto.bounding import Inspector
+from safeupto.errors import InvalidNumber
+from safeupto.kinds import GREATEST, is_integer, is_within
+from safeupto.nets import MOST_HEADS, heads_of, net_for, plain_net_for
+from safeupto.powers import bounds_for
+from safeupto.reckoning import Reckoning
+from safeupto.rings import outs_along, settle
+
+
+def heights(program, condition):
+    """Heights for a condition; None if it does not hold for ever."""
+    net = plain_net_for(program, condition)
+    worths = [net.entries.get(at) for at in range(len(net.spots))]
+    _, rings = settle(outs_along(len(net.spots), net.moves, 0, 1), worths)
+    if len(rings) > 0 or max([worths[at] for at in net.exits]) > net.most:
+        return None
+    return {node: worths[at] for at, node in enumerate(net.spots)}
+
+
+def is_heights(program, condition, value):
+    """Whether the value is heights for a condition."""
+    net = plain_net_for(program, condition)
+    worths = worths_told(net, value)
+    return worths is not None and are_kept(net, worths, 0, 1) and max([worths[at] for at in net.exits]) <= net.most
+
+
+def worths_told(net, value):
+    """The list of the integers of a dict from exactly the nodes that matter; None if it is no such dict."""
+    if not isinstance(value, dict) or len(value) != len(net.spots):
+        return None
+    worths = [value.get(node) for node in net.spots]
+    return worths if all([is_integer(worth) for worth in worths]) else None
+
+
+def are_kept(net, worths, p, q):
+    """Whether no start times q, and no move with q times its weight, minus p if it is counted, raises the worths."""
+    if any([worths[at] < q * net.entries[at] for at in net.entries]):
+        return False
+    return are_settled(net, worths, p, q)
+
+
+def are_settled(net, worths, p, q):
+    """Whether no move with q times its weight, minus p if it is counted, raises the worths."""
+    return all([worths[source] + q * weight - p * counted <= worths[target]
+                for source, _, target, weight, counted in net.moves])
+
+
+def bounds(program, condition, size, most):
+    """Bounds for a count; None if the condition does not hold up to it."""
+    net = net_for(program, condition, size)
+    heads = heads_of(net, MOST_HEADS)
+    if not is_within(most, 0, GREATEST):
+        raise InvalidNumber(most)
+    reckoning = Reckoning(net, heads, net.moves)
+    value = reckoning.value_for(most)
+    if value == "endless" or (value is not None and value > net.most):
+        return None
+    return bounds_for(reckoning, most)
+
+
+def is_bounds(program, condition, size, most, value):
+    """Whether the value is bounds for a count."""
+    net = net_for(program, condition, size)
+    heads = heads_of(net, MOST_HEADS)
+    if not is_within(most, 0, GREATEST):
+        raise InvalidNumber(most)
+    return Inspector(net, heads).accepts(most, value)

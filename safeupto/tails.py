@@ -1,0 +1,170 @@
+"""Greatest sums of walks from heads to end nodes, for every count, in a finite form.
+
+Heads are numbers. With several layers the heads of the first layer are 0 .. width - 1, those of the next one follow,
+and so on; what leads from head to head is the same within each layer, and never leads to a later layer.
+
+The rings in which the sum grows fastest are looked at first. A long walk that touches such a ring can be turned into
+a short one that touches it and goes around it often, with no less sum: of as many rings as this one is long some have
+a count together that it divides, and going around this one instead is no loss. Walks that touch none of its
+heads are looked at next, and so on.
+"""
+
+from safeupto.rings import best_quotient
+
+# Less than each sum of a walk, also if anything that a walk can have is added to it.
+LEAST = -(1 << 1000)
+
+
+def is_there(worth):
+    """Whether a worth is that of a walk."""
+    return worth + worth > LEAST
+
+
+def step_back(rows, vector):
+    """The greatest sums with one hop more."""
+    return [max([weight + vector[target] for target, weight in row], default=LEAST) for row in rows]
+
+
+def extend(vectors, rows, many):
+    """Makes the list of vectors, one for each number of hops, as long as this."""
+    while len(vectors) < many:
+        vectors.append(step_back(rows, vectors[-1]))
+
+
+class Stage:
+    """The walks that touch a ring, and none of those of earlier stages."""
+
+    def __init__(self, ring, gain, rows, alls, width):
+        self.ring = ring
+        self.gain = gain
+        self.rows = rows
+        self.alls = alls
+        self.width = width
+        self.touching = [touched(ring, width, alls[0], [LEAST] * len(rows))]
+        for vector in alls[1:]:
+            self.touching.append(touched(ring, width, vector, step_back(rows, self.touching[-1])))
+
+    def trail(self, at, count):
+        """The list of the heads behind this one on a greatest walk with so many hops that touches the ring."""
+        found, vectors = [], self.touching
+        for left in range(count, 0, -1):
+            if at % self.width in self.ring:
+                vectors = self.alls
+            at = next_head(self.rows[at], vectors[left][at], vectors[left - 1])
+            found.append(at)
+        return found
+
+    def told_from(self, at):
+        """The stairs (offset, period, value, gain) of the walks from a head."""
+        period, best = len(self.ring), {}
+        for count, vector in enumerate(self.touching):
+            worth, offset = vector[at] - self.gain * (count // period), count % period
+            if is_there(vector[at]) and (offset not in best or best[offset] < worth):
+                best[offset] = worth
+        return [(offset, period, best[offset], self.gain) for offset in best]
+
+
+def next_head(row, worth, vector):
+    """The first head to which a hop leads such that the sum there is what is left of this worth."""
+    for target, weight in row:
+        if weight + vector[target] == worth:
+            return target
+    return None
+
+
+def touched(ring, width, alls, others):
+    """The greatest sums of walks that touch the ring, from its own heads all of them."""
+    found = list(others)
+    for at in range(len(found)):
+        if at % width in ring:
+            found[at] = alls[at]
+    return found
+
+
+class Tails:
+    """The greatest sums of walks from heads to end nodes, by the number of hops."""
+
+    def __init__(self, rows, lasts, width):
+        self.rows = rows
+        self.vectors = [[LEAST if last is None else last for last in lasts]]
+        self._width = width
+        self._layers = len(rows) // width
+        self.stages = None
+        self._final = None
+
+    def upto(self, count):
+        """The list of the vectors for 0, 1 .. hops, at least up to this count."""
+        extend(self.vectors, self.rows, count + 1)
+        return self.vectors
+
+    def early(self, at, many):
+        """The list of the greatest sums from a head for so many counts, None where there is no walk."""
+        vectors = self.upto(many)
+        return [vector[at] if is_there(vector[at]) else None for vector in vectors[:many]]
+
+    def growth(self, at, endless):
+        """The tuple (firsts, stairs, endless) of the greatest sums from a head, as in formulas."""
+        if endless is not None:
+            return (self.early(at, endless), [], endless)
+        many, stairs = self.length(), []
+        for stage in self.stages:
+            stairs.extend(stage.told_from(at))
+        if is_there(self._final[at]):
+            stairs.append((0, 1, self._final[at], 0))
+        return (self.early(at, many), stairs, None)
+
+    def length(self):
+        """From how many hops on the stairs tell the greatest sums."""
+        self.settle()
+        return max([len(stage.touching) for stage in self.stages] + [self._width * self._layers + 1])
+
+    def trail(self, at, count):
+        """The list of the heads behind this one on a greatest walk with so many hops, for which vectors were made."""
+        found, vectors = [], self.upto(count)
+        for left in range(count, 0, -1):
+            at = next_head(self.rows[at], vectors[left][at], vectors[left - 1])
+            found.append(at)
+        return found
+
+    def settle(self):
+        """Finds the stages, once."""
+        if self.stages is not None:
+            return
+        self.stages = []
+        rows, vectors = self.rows, self.vectors
+        kinds = [at for at in range(self._width) if len(rows[at]) > 0]
+        ring, gain = fastest_ring(rows, self._width)
+        while ring is not None:
+            # As long as a short walk that touches the ring can be: fewer other rings than it has heads,
+            # each cut out of as many hops as there are heads, and a rest for each layer and one more.
+            many = (len(ring) + self._layers) * len(kinds)
+            extend(vectors, rows, many)
+            self.stages.append(Stage(ring, gain, rows, vectors[:many], self._width))
+            kinds = [at for at in kinds if at not in ring]
+            rows = without(rows, ring, self._width)
+            vectors = [without_heads(self.vectors[0], kinds, self._width)]
+            ring, gain = fastest_ring(rows, self._width)
+        # Without rings that gain no walk needs to come to a head twice.
+        extend(vectors, rows, len(kinds) * self._layers + 1)
+        self._final = vectors[len(kinds) * self._layers]
+
+
+def fastest_ring(rows, width):
+    """The ring of heads of the first layer that gains most for its length, and its gain; None if none gains."""
+    moves = [(source, None, target, weight, 1) for source in range(width)
+             for target, weight in rows[source] if target < width]
+    _, ring, _ = best_quotient(width, moves)
+    if ring is None:
+        return None, 0
+    return [moves[index][0] for index in ring], sum([moves[index][3] for index in ring])
+
+
+def without(rows, ring, width):
+    """The rows without what leads from and to heads of a ring, in all layers."""
+    return [[] if at % width in ring else [(target, weight) for target, weight in row if target % width not in ring]
+            for at, row in enumerate(rows)]
+
+
+def without_heads(vector, kinds, width):
+    """The vector in which only heads of these kinds have worths."""
+    return [worth if at % width in kinds else LEAST for at, worth in enumerate(vector)]
