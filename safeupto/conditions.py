@@ -26,12 +26,12 @@ def is_somewhere(graph, place):
     """Whether place is a point, or the name of a place that has one."""
     if is_integer(place):
         return 0 <= place < graph.points
-    return is_name(place) and ("place", place) in [action for _, _, action in graph.edges]
+    return graph.has_place(place)
 
 
 def is_side(program, value):
     """Whether the value is None or the name of a variable."""
-    return value is None or (is_name(value) and value in program.names)
+    return value is None or (isinstance(value, str) and value in program.names)
 
 
 def points_in(graph, place):
@@ -55,23 +55,23 @@ def is_size(program, value):
     return kind == "calls" and name in [procedure for procedure, _ in program.procedures]
 
 
-def is_counted(size, action):
-    """Whether edges with this action are counted by a size."""
-    if action is None:
-        return False
+def counts_among(actions, size):
+    """The list that tells with 1 and 0 which edges with these actions a size counts."""
     kind, name = size
     if kind == "steps":
-        return action[0] in ("set", "input")
+        return [1 if action is not None and (action[0] == "set" or action[0] == "input") else 0 for action in actions]
     word = "round" if kind == "rounds" else "call"
-    return action[0] == word and (name is None or action[1] == name)
+    return [1 if action is not None and action[0] == word and (name is None or action[1] == name) else 0
+            for action in actions]
 
 
 def size_of(run, size):
     """How many edges of a run are counted by a size."""
-    if not is_size(run.machine.program, size):
+    machine = run.machine
+    if not is_size(machine.program, size):
         raise InvalidSize(size)
-    edges = run.machine.graph.edges
-    return len([index for index, _ in run.choices if is_counted(size, edges[index][2])])
+    edges = machine.graph.edges
+    return sum(counts_among([edges[index][2] for index, _ in run.choices], size))
 
 
 def first_break(run, condition):
@@ -80,13 +80,12 @@ def first_break(run, condition):
     if not is_condition_in(program, graph, condition):
         raise InvalidCondition(condition)
     place, plus, minus, most = condition
-    points = points_in(graph, place)
+    points, names = points_in(graph, place), program.names
+    at = None if plus is None else names.index(plus)
+    less = None if minus is None else names.index(minus)
     for index, state in enumerate(run.states):
-        if state.point in points and worth_of(program, state, plus) - worth_of(program, state, minus) > most:
-            return index
+        if state.point in points:
+            numbers = state.numbers
+            if (0 if at is None else numbers[at]) - (0 if less is None else numbers[less]) > most:
+                return index
     return None
-
-
-def worth_of(program, state, name):
-    """The value of a variable in a state; None counts as 0."""
-    return 0 if name is None else state.numbers[program.names.index(name)]

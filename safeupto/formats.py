@@ -7,35 +7,40 @@ from safeupto.reading import Reader
 
 def format_program(program):
     """The text of a program."""
-    lines = []
-    heads = (("var", program.variables), ("param", program.parameters),
-             ("array", program.arrays), ("width", program.widths))
-    for word, rows in heads:
-        lines.extend([words_of((word,) + row) for row in rows])
+    lines = [f"var {name} {low} {high}" for name, low, high in program.variables]
+    lines.extend([f"param {name} {low} {high}" for name, low, high in program.parameters])
+    lines.extend([f"array {name} {length}" for name, length in program.arrays])
+    lines.extend([f"width {name} {bits}" for name, bits in program.widths])
+    known = {}
     for name, body in program.procedures:
-        lines.extend([f"proc {name}", *lines_of(body), "end"])
-    lines.extend(["main", *lines_of(program.main), "end"])
+        lines.extend([f"proc {name}", *lines_of(body, known), "end"])
+    lines.extend(["main", *lines_of(program.main, known), "end"])
     return "\n".join(lines)
 
 
-def words_of(things):
-    """A line with these words and integers."""
-    return " ".join([str(thing) for thing in things])
-
-
-def lines_of(body):
-    """The lines of the statements of a body."""
+def lines_of(body, known):
+    """The lines of the statements of a body; known is a dict from parts to their words, each written once."""
     lines = []
     for statement in body:
         word = statement[0]
         if word == "set":
-            lines.append(words_of(("set", statement[1], *[part_word(part) for part in statement[2]])))
+            for part in statement[2]:
+                if part not in known:
+                    known[part] = part_word(part)
+            parts = " ".join([known[part] for part in statement[2]])
+            lines.append(f"set {statement[1]} {parts}")
         elif word == "either":
-            lines.extend(["either", *lines_of(statement[1]), "or", *lines_of(statement[2]), "end"])
+            lines.extend(["either", *lines_of(statement[1], known), "or", *lines_of(statement[2], known), "end"])
         elif word == "loop":
-            lines.extend([words_of(statement[:2]), *lines_of(statement[2]), "end"])
+            lines.extend([f"loop {statement[1]}", *lines_of(statement[2], known), "end"])
+        elif word == "input":
+            lines.append(f"input {statement[1]} {statement[2]} {statement[3]}")
+        elif word == "place" or word == "call":
+            lines.append(f"{word} {statement[1]}")
+        elif word == "read":
+            lines.append(f"read {statement[1]} {statement[2]}")
         else:
-            lines.append(words_of(statement))
+            lines.append(f"guard {statement[1]} {statement[2]} {statement[3]} {statement[4]}")
     return lines
 
 

@@ -1,7 +1,6 @@
 """The points and edges of programs."""
 
 from safeupto.errors import InvalidName, InvalidProgram, TooMany
-from safeupto.kinds import is_name
 from safeupto.programs import Program
 
 MOST_POINTS = 150
@@ -16,6 +15,7 @@ class Graph:
         self._bodies = {name: body for name, body in program.procedures}
         self._many = 1
         self._made = []
+        self._places = {}
         self._end = self._go_through(program.main, 0)
         self._edges = tuple(self._made)
 
@@ -36,12 +36,13 @@ class Graph:
 
     def points_of(self, place):
         """The sorted list of the points of a place."""
-        if not is_name(place):
+        if not self.has_place(place):
             raise InvalidName(place)
-        found = sorted([target for _, target, action in self._edges if action == ("place", place)])
-        if len(found) == 0:
-            raise InvalidName(place)
-        return found
+        return list(self._places[place])
+
+    def has_place(self, value):
+        """Whether the value is the name of a place that has points."""
+        return isinstance(value, str) and value in self._places
 
     def edges_out(self):
         """The list of the lists of the indices of the edges that begin at each point."""
@@ -70,6 +71,8 @@ class Graph:
                 point = self._lead(last, None)
             else:
                 point = self._lead(point, statement)
+                if word == "place":
+                    self._places.setdefault(statement[1], []).append(point)
         return point
 
     def _either(self, statement, point):

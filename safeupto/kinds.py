@@ -1,6 +1,7 @@
 """The kinds of plain values: integers, numbers and names."""
 
 GREATEST = 10 ** 30
+LEAST = -GREATEST
 LONGEST_NAME = 8
 
 
@@ -11,24 +12,25 @@ def is_integer(value):
 
 def is_within(value, low, high):
     """Whether the value is an integer from low to high."""
-    return is_integer(value) and low <= value <= high
+    return isinstance(value, int) and not isinstance(value, bool) and low <= value <= high
 
 
 def is_number(value):
     """Whether the value is a number."""
-    return is_within(value, -GREATEST, GREATEST)
+    return isinstance(value, int) and not isinstance(value, bool) and LEAST <= value <= GREATEST
 
 
 def is_range(low, high):
     """Whether both are numbers, low at most high."""
-    return is_number(low) and is_number(high) and low <= high
+    if not isinstance(low, int) or not isinstance(high, int) or isinstance(low, bool) or isinstance(high, bool):
+        return False
+    return LEAST <= low <= high <= GREATEST
 
 
 def is_name(value):
     """Whether the value is a name."""
-    if not isinstance(value, str) or len(value) > LONGEST_NAME:
-        return False
-    return value.isascii() and value.isalpha() and value.islower()
+    return (isinstance(value, str) and len(value) <= LONGEST_NAME
+            and value.isalpha() and value.isascii() and value.islower())
 
 
 def is_row(value):

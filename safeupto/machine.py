@@ -40,9 +40,15 @@ def is_input(action):
     return action is not None and action[0] == "input"
 
 
-def greatest_part(parts, worths):
-    """The greatest of the parts, worths being a dict from the variables to their values."""
-    return max([constant if variable is None else worths[variable] + constant for variable, constant in parts])
+def greatest_part(parts, names, numbers):
+    """The greatest of the parts, numbers being the values of the variables with these names."""
+    return max([constant if variable is None else numbers[names.index(variable)] + constant
+                for variable, constant in parts])
+
+
+def with_number(numbers, at, number):
+    """The tuple of numbers with another one at an index."""
+    return (*numbers[:at], number, *numbers[at + 1:])
 
 
 class Machine:
@@ -54,6 +60,9 @@ class Machine:
             raise InvalidName(guards)
         self._program = program
         self._guards = tuple(sorted(guards))
+        self._variables = program.variables
+        self._names = program.names
+        self._edges = self._graph.edges
         self._out = self._graph.edges_out()
 
     @property
@@ -73,11 +82,10 @@ class Machine:
 
     def start(self, numbers):
         """The state at point 0 with these values."""
-        variables = self._program.variables
-        if not isinstance(numbers, tuple) or len(numbers) != len(variables):
+        if not isinstance(numbers, tuple) or len(numbers) != len(self._variables):
             raise InvalidState(numbers)
-        for number, (_, low, high) in zip(numbers, variables):
-            if not is_within(number, low, high):
+        for number, (_, low, high) in zip(numbers, self._variables):
+            if not isinstance(number, int) or isinstance(number, bool) or not low <= number <= high:
                 raise InvalidState(numbers)
         return State(0, numbers)
 
@@ -91,48 +99,39 @@ class Machine:
         """The state behind a choice, a tuple (index of an edge, number)."""
         if not self._is_state(state):
             raise InvalidState(state)
-        if not self._is_choice(state.point, choice):
-            raise InvalidChoice(choice)
-        index, number = choice
-        _, target, action = self._graph.edges[index]
-        return State(target, self._numbers_behind(action, state.numbers, number))
+        return self.behind(state.point, state.numbers, choice)
 
     def _is_state(self, value):
         """Whether the value is a state at which a run can go on."""
         if not isinstance(value, State) or not is_within(value.point, 0, self._graph.points - 1):
             return False
         numbers = value.numbers
-        if not isinstance(numbers, tuple) or len(numbers) != len(self._program.names):
+        if not isinstance(numbers, tuple) or len(numbers) != len(self._names):
             return False
         return all([is_integer(number) for number in numbers])
 
-    def _is_choice(self, point, value):
-        """Whether the value is a choice that is possible at a point."""
-        if not isinstance(value, tuple) or len(value) != 2:
-            return False
-        index, number = value
-        if not is_integer(index) or index not in self._out[point]:
-            return False
-        action = self._graph.edges[index][2]
-        if is_input(action):
-            return is_within(number, action[2], action[3])
-        return number is None
-
-    def _numbers_behind(self, action, numbers, number):
-        """The values behind an edge with this action; number is what an input gives."""
+    def behind(self, point, numbers, choice):
+        """The state behind a choice at a point with these numbers, which are known to be right."""
+        if not isinstance(choice, tuple) or len(choice) != 2:
+            raise InvalidChoice(choice)
+        index, number = choice
+        if not isinstance(index, int) or isinstance(index, bool) or index not in self._out[point]:
+            raise InvalidChoice(choice)
+        _, target, action = self._edges[index]
         word = None if action is None else action[0]
-        if word not in ("set", "input", "guard") or (word == "guard" and action[1] not in self._guards):
-            return numbers
-        names = self._program.names
-        worths = dict(zip(names, numbers))
-        variable = action[2] if word == "guard" else action[1]
+        if word == "input":
+            if not is_within(number, action[2], action[3]):
+                raise InvalidChoice(choice)
+            return State(target, with_number(numbers, self._names.index(action[1]), number))
+        if number is not None:
+            raise InvalidChoice(choice)
         if word == "set":
-            worths[variable] = greatest_part(action[2], worths)
-        elif word == "input":
-            worths[variable] = number
-        else:
-            worths[variable] = min(worths[variable], action[3])
-        return tuple([worths[name] for name in names])
+            worth = greatest_part(action[2], self._names, numbers)
+            return State(target, with_number(numbers, self._names.index(action[1]), worth))
+        if word == "guard" and action[1] in self._guards:
+            at = self._names.index(action[2])
+            return State(target, with_number(numbers, at, min(numbers[at], action[3])))
+        return State(target, numbers)
 
 
 class Run:
@@ -140,8 +139,6 @@ class Run:
 
     def __init__(self, machine, numbers, choices):
         self._machine = machine
-        self._program = machine.program
-        self._guards = machine.guards
         self._states = (machine.start(numbers),)
         self._choices = ()
         self._go_on(choices)
@@ -170,8 +167,9 @@ class Run:
         return len(self._choices)
 
     def __eq__(self, other):
-        return (isinstance(other, Run) and self._program == other._program and self._guards == other._guards
-                and self._states == other._states and self._choices == other._choices)
+        return (isinstance(other, Run) and self._states == other._states and self._choices == other._choices
+                and self._machine.program == other._machine.program
+                and self._machine.guards == other._machine.guards)
 
     def more(self, choices):
         """The run that goes on with these choices."""
@@ -183,13 +181,17 @@ class Run:
         return longer
 
     def _go_on(self, choices):
-        if not is_row(choices):
+        if not isinstance(choices, (list, tuple)):
             raise InvalidChoice(choices)
-        states = [self._states[-1]]
+        if len(choices) == 0:
+            return
+        machine, state, states = self._machine, self._states[-1], []
         for choice in choices:
-            states.append(self._machine.step(states[-1], choice))
-        self._states = self._states + tuple(states[1:])
-        self._choices = self._choices + tuple(choices)
+            # The states come from the machine itself, so only the choices are looked at.
+            state = machine.behind(state.point, state.numbers, choice)
+            states.append(state)
+        self._states = (*self._states, *states)
+        self._choices = (*self._choices, *choices)
 
 
 def ends_of(low, high):

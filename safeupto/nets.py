@@ -1,6 +1,6 @@
 """The nodes that matter for a condition and the steps between them, with indices in the place of nodes."""
 
-from safeupto.conditions import is_condition_in, is_counted, is_size, points_in
+from safeupto.conditions import counts_among, is_condition_in, is_size, points_in
 from safeupto.errors import InvalidCondition, InvalidSize, TooMany
 from safeupto.graphs import Graph
 
@@ -44,7 +44,9 @@ def origins(change, plus, minus):
 
 def counts_for(graph, size):
     """The list that tells with 1 and 0 which edges of a graph a size counts; None counts none."""
-    return [0 if size is None or not is_counted(size, action) else 1 for _, _, action in graph.edges]
+    if size is None:
+        return [0 for _ in graph.edges]
+    return counts_among([action for _, _, action in graph.edges], size)
 
 
 def start_of(ranges, plus, minus):

@@ -1,10 +1,10 @@
 """Bodies and programs."""
 
 from safeupto.errors import InvalidBody, InvalidName, InvalidNumber, InvalidProgram
-from safeupto.kinds import GREATEST, is_name, is_range, is_row, is_within
-from safeupto.naming import check_names
+from safeupto.kinds import GREATEST, is_name, is_range, is_within
+from safeupto.naming import names_told
 from safeupto.rewriting import numbered, opposite
-from safeupto.statements import MOST_LEVELS, count_in_body, flat
+from safeupto.statements import look_at, numbered_look, opposite_look
 
 MOST_VARIABLES = 4
 MOST_PROCEDURES = 4
@@ -13,51 +13,82 @@ MOST_ARRAYS = 3
 MOST_WIDTHS = 4
 LEAST_BITS = 2
 MOST_BITS = 64
+# What a copy begins with: the variables of a program that is looked at quickly.
+SMALLEST = (("x", 0, 0),)
 
 
 def is_body(value):
     """Whether the value is a body; names are any names."""
-    return count_in_body(value, MOST_LEVELS) is not None
+    return look_at(value) is not None
 
 
-def are_named(rows, most, length):
-    """Whether rows is a list or tuple of at most so many tuples of this length that begin with a name."""
-    if not is_row(rows) or len(rows) > most:
-        return False
-    return all([isinstance(row, tuple) and len(row) == length and is_name(row[0]) for row in rows])
+def are_rows(rows, most):
+    """Whether rows is a list or tuple of at most so many things."""
+    return isinstance(rows, (list, tuple)) and len(rows) <= most
+
+
+def is_named(row, length):
+    """Whether the row is a tuple of this length that begins with a name."""
+    return isinstance(row, tuple) and len(row) == length and is_name(row[0])
 
 
 def are_ranges(rows, most):
     """Whether these are at most so many tuples (name, low, high)."""
-    return are_named(rows, most, 3) and all([is_range(low, high) for _, low, high in rows])
+    if not are_rows(rows, most):
+        return False
+    for row in rows:
+        if not is_named(row, 3) or not is_range(row[1], row[2]):
+            return False
+    return True
 
 
-def are_procedures(rows):
-    """Whether these are the procedures of a program by their form."""
-    return are_named(rows, MOST_PROCEDURES, 2) and all([is_body(body) for _, body in rows])
+def looks_at(rows):
+    """The looks at the bodies of the procedures of a program; None if they are not of their form."""
+    if not are_rows(rows, MOST_PROCEDURES):
+        return None
+    found = []
+    for row in rows:
+        look = look_at(row[1]) if is_named(row, 2) else None
+        if look is None:
+            return None
+        found.append(look)
+    return found
+
+
+def are_counted(rows, most, low, high):
+    """Whether these are at most so many tuples of a name and an integer from low to high."""
+    if not are_rows(rows, most):
+        return False
+    for row in rows:
+        if not is_named(row, 2) or not is_within(row[1], low, high):
+            return False
+    return True
 
 
 def are_arrays(rows):
     """Whether these are the arrays of a program by their form."""
-    return are_named(rows, MOST_ARRAYS, 2) and all([is_within(length, 1, GREATEST) for _, length in rows])
+    return are_counted(rows, MOST_ARRAYS, 1, GREATEST)
 
 
 def are_widths(rows):
     """Whether these are the widths of a program by their form."""
-    if not are_named(rows, MOST_WIDTHS, 2):
+    if not are_counted(rows, MOST_WIDTHS, LEAST_BITS, MOST_BITS):
         return False
-    if not all([is_within(bits, LEAST_BITS, MOST_BITS) for _, bits in rows]):
-        return False
-    return len({variable for variable, _ in rows}) == len(rows)
+    return len(rows) < 2 or len({variable for variable, _ in rows}) == len(rows)
 
 
-def check_forms(variables, main, procedures, parameters, arrays, widths):
-    """Raises InvalidProgram with the first one that is not of its form by itself."""
+def looks_for(variables, main, procedures, parameters, arrays, widths):
+    """The looks at main and at the bodies of the procedures.
+
+    Raises InvalidProgram with the first argument that is not of its form by itself.
+    """
     if not are_ranges(variables, MOST_VARIABLES) or len(variables) == 0:
         raise InvalidProgram(variables)
-    if not is_body(main):
+    first = look_at(main)
+    if first is None:
         raise InvalidProgram(main)
-    if not are_procedures(procedures):
+    rest = looks_at(procedures)
+    if rest is None:
         raise InvalidProgram(procedures)
     if not are_ranges(parameters, MOST_PARAMETERS):
         raise InvalidProgram(parameters)
@@ -65,15 +96,15 @@ def check_forms(variables, main, procedures, parameters, arrays, widths):
         raise InvalidProgram(arrays)
     if not are_widths(widths):
         raise InvalidProgram(widths)
+    return [first, *rest]
 
 
-def names_given(statements, word):
-    """The names that statements with this word give, each once, in their order."""
-    found = {}
-    for statement in statements:
-        if statement[0] == word:
-            found[statement[1]] = True
-    return tuple(found)
+def are_single(looks):
+    """Whether every set in the bodies at which was looked has one part."""
+    for look in looks:
+        if len(look[5]) > 0:
+            return False
+    return True
 
 
 def are_values(values, parameters):
@@ -90,22 +121,24 @@ class Program:
     """A program; it never changes."""
 
     def __init__(self, variables, main, *, procedures=(), parameters=(), arrays=(), widths=()):
-        check_forms(variables, main, procedures, parameters, arrays, widths)
-        check_names(variables, main, procedures, parameters, arrays, widths)
+        looks = looks_for(variables, main, procedures, parameters, arrays, widths)
         self._variables = tuple(variables)
-        self._main = main
-        self._procedures = tuple(procedures)
         self._parameters = tuple(parameters)
         self._arrays = tuple(arrays)
         self._widths = tuple(widths)
         self._names = tuple([name for name, _, _ in variables])
-        statements = flat(main)
-        for _, body in procedures:
-            statements.extend(flat(body))
-        self._loops = names_given(statements, "loop")
-        self._places = names_given(statements, "place")
-        self._guards = names_given(statements, "guard")
-        self._is_single = all([len(one[2]) == 1 for one in statements if one[0] == "set"])
+        self._put(main, tuple(procedures), looks)
+
+    def _put(self, main, procedures, looks):
+        """Puts these bodies in their places, at all of which was looked; raises the errors of their names."""
+        told = names_told(self._variables, procedures, self._parameters, self._arrays, self._widths, main, looks)
+        self._main = main
+        self._procedures = procedures
+        self._looks = looks
+        self._loops = tuple(told["loop"])
+        self._places = tuple(told["place"])
+        self._guards = tuple(told["guard"])
+        self._is_single = are_single(looks)
 
     @property
     def variables(self):
@@ -182,25 +215,45 @@ class Program:
     def replaced(self, name, body):
         """The program with another body of this name."""
         self.body_of(name)
-        if not is_body(body):
+        look = look_at(body)
+        if look is None:
             raise InvalidBody(body)
         main = body if name == "main" else self._main
-        procedures = [(one, body if one == name else old) for one, old in self._procedures]
-        return Program(self._variables, main, procedures=procedures, parameters=self._parameters,
-                       arrays=self._arrays, widths=self._widths)
+        procedures = tuple([(one, body if one == name else old) for one, old in self._procedures])
+        names = ["main", *[one for one, _ in procedures]]
+        other = self._copy()
+        other._put(main, procedures, [look if one == name else old for one, old in zip(names, self._looks)])
+        return other
 
     def given(self, values):
         """The program without parameters, with these numbers in their places."""
         if not are_values(values, self._parameters):
             raise InvalidNumber(values)
-        procedures = [(name, numbered(body, values)) for name, body in self._procedures]
-        return Program(self._variables, numbered(self._main, values), procedures=procedures,
-                       arrays=self._arrays, widths=self._widths)
+        other = self._copy()
+        other._parameters = ()
+        other._looks = [numbered_look(look) for look in self._looks]
+        other._main = numbered(self._main, values)
+        other._procedures = tuple([(name, numbered(body, values)) for name, body in self._procedures])
+        return other
 
     def mirrored(self):
         """The program in which every variable has the opposite sign."""
         if len(self._parameters) > 0 or not self._is_single:
             raise InvalidProgram(self)
-        variables = [(name, -high, -low) for name, low, high in self._variables]
-        procedures = [(name, opposite(body)) for name, body in self._procedures]
-        return Program(variables, opposite(self._main), procedures=procedures)
+        other = self._copy()
+        other._variables = tuple([(name, -high, -low) for name, low, high in self._variables])
+        other._looks = [opposite_look(look) for look in self._looks]
+        other._main = opposite(self._main)
+        other._procedures = tuple([(name, opposite(body)) for name, body in self._procedures])
+        other._arrays, other._widths, other._guards = (), (), ()
+        return other
+
+    def _copy(self):
+        """The same program as another object, which is not looked at anew."""
+        other = Program(SMALLEST, ())
+        other._variables, other._names = self._variables, self._names
+        other._main, other._procedures, other._looks = self._main, self._procedures, self._looks
+        other._parameters, other._arrays, other._widths = self._parameters, self._arrays, self._widths
+        other._loops, other._places, other._guards = self._loops, self._places, self._guards
+        other._is_single = self._is_single
+        return other

@@ -5,15 +5,14 @@ from safeupto.kinds import is_name
 from safeupto.statements import MOST_LEVELS
 
 LONGEST_INTEGER = 31
-# The kinds of the words behind the first one: n a name, i an integer. A set has words of its own.
+# How many names, and how many integers behind them, follow the first word. A set has words of its own.
 KINDS = {
-    "var": "nii", "param": "nii", "array": "ni", "width": "ni", "proc": "n", "main": "",
-    "input": "nii", "call": "n", "place": "n", "read": "nn", "guard": "nnii",
-    "either": "", "or": "", "loop": "n", "end": "",
+    "var": (1, 2), "param": (1, 2), "array": (1, 1), "width": (1, 1), "proc": (1, 0), "main": (0, 0),
+    "input": (1, 2), "call": (1, 0), "place": (1, 0), "read": (2, 0), "guard": (2, 2),
+    "either": (0, 0), "or": (0, 0), "loop": (1, 0), "end": (0, 0),
 }
 HEADS = ("var", "param", "array", "width", "proc", "main")
-PLAIN = ("set", "input", "call", "place", "read", "guard")
-AROUND = ("either", "loop")
+PLAIN = ("set", "place", "input", "call", "read", "guard")
 
 
 def read_integer(word):
@@ -28,14 +27,16 @@ def read_integer(word):
 
 def read_part(word, parameters):
     """The part of a set that is written like this, or None; parameters has their names as keys."""
+    if "+" in word:
+        variable, _, constant = word.partition("+")
+        if not is_name(variable):
+            return None
+        return (variable, constant) if is_name(constant) else with_number(variable, constant, 1)
+    if is_name(word):
+        return (None, word) if word in parameters else (word, 0)
     number = read_integer(word)
     if number is not None:
         return (None, number)
-    if is_name(word):
-        return (None, word) if word in parameters else (word, 0)
-    variable, _, constant = word.partition("+")
-    if is_name(variable):
-        return (variable, constant) if is_name(constant) else with_number(variable, constant, 1)
     variable, _, constant = word.partition("-")
     return with_number(variable, constant, -1) if is_name(variable) else None
 
@@ -48,27 +49,28 @@ def with_number(variable, word, sign):
     return (variable, sign * number)
 
 
-def read_words(words, kinds):
-    """The list of the names and integers that are written like this, or None."""
-    if len(words) != len(kinds):
+def read_set(words, parts):
+    """The row of a set that is written with these words, or None; parts reads those of parts."""
+    if len(words) < 3 or not is_name(words[1]):
         return None
-    found = []
-    for word, kind in zip(words, kinds):
-        thing = read_integer(word) if kind == "i" else word
-        if thing is None or (kind == "n" and not is_name(word)):
-            return None
-        found.append(thing)
-    return found
+    found = [parts.read(word) for word in words[2:]]
+    return None if None in found else ("set", words[1], tuple(found))
 
 
-def read_set(words, parameters):
-    """The variable and the parts that are written like this, in a list, or None."""
-    if len(words) < 2 or not is_name(words[0]):
-        return None
-    parts = [read_part(word, parameters) for word in words[1:]]
-    if None in parts:
-        return None
-    return [words[0], tuple(parts)]
+class Parts:
+    """Reads words of parts, each word once; parameters has the names of the parameters as keys."""
+
+    def __init__(self, parameters):
+        self._parameters = parameters
+        self._known = {}
+
+    def read(self, word):
+        """The part that is written like this, or None."""
+        part = self._known.get(word)
+        if part is None:
+            part = read_part(word, self._parameters)
+            self._known[word] = part
+        return part
 
 
 class Reader:
@@ -78,21 +80,28 @@ class Reader:
         self._lines = lines
         self._at = 0
         self._parameters = {}
+        self._parts = Parts(self._parameters)
+        # What was read once is not looked at again: rows by their lines, integers and names by their words.
+        self._rows = {}
+        self._integers = {}
+        self._names = {}
 
     def read(self):
         """A dict from the words of HEADS to lists of what these lines say, and for main to its body."""
         found = {"var": [], "param": [], "array": [], "width": [], "proc": []}
         standing = HEADS
-        row = self._take(standing)
+        row = self._take()
         while row[0] != "main":
             word = row[0]
+            if word not in standing:
+                raise ParseError(self._at - 1)
             if word == "proc":
                 row = (word, row[1], self._body(MOST_LEVELS, "end"))
-            if word == "param":
+            elif word == "param":
                 self._parameters[row[1]] = True
             found[word].append(row[1:])
             standing = standing[standing.index(word):]
-            row = self._take(standing)
+            row = self._take()
         found["main"] = self._body(MOST_LEVELS, "end")
         if self._at < len(self._lines):
             raise ParseError(self._at)
@@ -101,30 +110,62 @@ class Reader:
     def _body(self, levels, last):
         """The statements up to a line with the word last; so many levels may be inside of each other."""
         found = []
-        standing = (*PLAIN, *AROUND, last) if levels > 1 else (*PLAIN, last)
-        row = self._take(standing)
-        while row[0] != last:
-            if row[0] == "either":
-                row = ("either", self._body(levels - 1, "or"), self._body(levels - 1, "end"))
-            elif row[0] == "loop":
-                row = (*row, self._body(levels - 1, "end"))
-            found.append(row)
-            row = self._take(standing)
-        return tuple(found)
+        while True:
+            row = self._take()
+            word = row[0]
+            if word in PLAIN:
+                found.append(row)
+            elif word == last:
+                return tuple(found)
+            elif word == "loop" and levels > 1:
+                found.append((*row, self._body(levels - 1, "end")))
+            elif word == "either" and levels > 1:
+                found.append((word, self._body(levels - 1, "or"), self._body(levels - 1, "end")))
+            else:
+                raise ParseError(self._at - 1)
 
-    def _take(self, standing):
-        """What the next line says, a tuple; its first word is one of standing."""
-        if self._at == len(self._lines):
-            raise ParseError(self._at)
-        words = self._lines[self._at].split(" ")
+    def _take(self):
+        """What the next line says, a tuple, whether or not it can stand there."""
+        at = self._at
+        if at == len(self._lines):
+            raise ParseError(at)
+        line = self._lines[at]
+        row = self._rows.get(line)
+        if row is None:
+            row = self._row(line.split(" "))
+            if row is None:
+                raise ParseError(at)
+            self._rows[line] = row
+        self._at = at + 1
+        return row
+
+    def _row(self, words):
+        """The tuple of the first word and the names and integers that are written like this, or None."""
         word = words[0]
-        if word not in standing:
-            raise ParseError(self._at)
         if word == "set":
-            things = read_set(words[1:], self._parameters)
-        else:
-            things = read_words(words[1:], KINDS[word])
-        if things is None:
-            raise ParseError(self._at)
-        self._at = self._at + 1
-        return (word, *things)
+            return read_set(words, self._parts)
+        kinds = KINDS.get(word)
+        if kinds is None:
+            return None
+        names, integers = kinds
+        if len(words) != names + integers + 1:
+            return None
+        for name in words[1:names + 1]:
+            if name not in self._names and not self._is_new(name):
+                return None
+        if integers == 0:
+            return tuple(words)
+        numbers = [self._integer(other) for other in words[names + 1:]]
+        return None if None in numbers else (*words[:names + 1], *numbers)
+
+    def _is_new(self, word):
+        """Whether a word is a name, which is kept."""
+        if is_name(word):
+            self._names[word] = True
+        return word in self._names
+
+    def _integer(self, word):
+        """The integer that is written like this, or None."""
+        if word not in self._integers:
+            self._integers[word] = read_integer(word)
+        return self._integers[word]

@@ -16,13 +16,20 @@ def rewritten(body, change):
 
 def numbered(body, numbers):
     """The body with numbers, a dict, in the places of the names of parameters."""
-    def change(statement):
-        if statement[0] != "set":
-            return (statement,)
-        parts = [(variable, numbers.get(constant, constant)) for variable, constant in statement[2]]
-        return (("set", statement[1], tuple(parts)),)
-
-    return rewritten(body, change)
+    found = []
+    for statement in body:
+        word = statement[0]
+        if word == "set":
+            parts = statement[2]
+            if any([isinstance(constant, str) for _, constant in parts]):
+                parts = tuple([(variable, numbers.get(constant, constant)) for variable, constant in parts])
+                statement = (word, statement[1], parts)
+        elif word == "loop":
+            statement = (word, statement[1], numbered(statement[2], numbers))
+        elif word == "either":
+            statement = (word, numbered(statement[1], numbers), numbered(statement[2], numbers))
+        found.append(statement)
+    return tuple(found)
 
 
 def opposite(body):

@@ -1,6 +1,6 @@
-"""The forms of statements and bodies, whatever their names stand for."""
+"""The forms of statements and bodies, and the names that stand in them."""
 
-from safeupto.kinds import is_name, is_number, is_range, is_within
+from safeupto.kinds import GREATEST, LEAST, is_name, is_number, is_range, is_within
 
 MOST_STATEMENTS = 40
 MOST_LEVELS = 4
@@ -8,97 +8,110 @@ MOST_PARTS = 4
 GREATEST_COST = 99
 
 
-def is_part(value):
-    """Whether the value is a part of a set."""
-    if not isinstance(value, tuple) or len(value) != 2:
-        return False
-    variable, constant = value
-    return (variable is None or is_name(variable)) and (is_number(constant) or is_name(constant))
+def look_at(value):
+    """The look at a body; None if the value is none.
+
+    A look is a tuple of dicts, whose keys are the names of variables, parameters, procedures and arrays in the body,
+    so that each of them is looked at once, and two lists: that of the tuples (word, name) of loops, places and guards,
+    and that of the parts of sets with several parts. The last thing is the list of its statements, in any order.
+    """
+    found = ({}, {}, {}, {}, [], [], [])
+    return found if is_body_with(value, MOST_LEVELS, found) else None
 
 
-def is_parts(value):
-    """Whether the value is the parts of a set."""
-    if not isinstance(value, tuple) or not 1 <= len(value) <= MOST_PARTS:
+def is_body_with(value, levels, found):
+    """Whether the value is a body with at most so many levels; what it tells is put into found, a look."""
+    if levels == 0 or not isinstance(value, tuple) or len(value) > MOST_STATEMENTS:
         return False
-    if not all([is_part(part) for part in value]):
+    found[6].extend(value)
+    variables = found[0]
+    for statement in value:
+        if not isinstance(statement, tuple) or len(statement) < 2:
+            return False
+        word, name = statement[0], statement[1]
+        if not isinstance(word, str):
+            return False
+        if word == "set":
+            if not isinstance(name, str) or name not in variables and not is_new(name, variables):
+                return False
+            if len(statement) != 3 or not are_parts(statement[2], found):
+                return False
+        elif word == "input":
+            if not isinstance(name, str) or name not in variables and not is_new(name, variables):
+                return False
+            if len(statement) != 4 or not is_range(statement[2], statement[3]):
+                return False
+        elif not is_other(statement, levels, found):
+            return False
+    # What is inside of each other can be written with few tuples and still have more statements than
+    # can be counted; with this look behind each body it ends before that.
+    return len(found[6]) <= MOST_STATEMENTS
+
+
+def is_other(statement, levels, found):
+    """Whether a tuple of a string and more is a statement, but no set and no input."""
+    word, name, many = statement[0], statement[1], len(statement)
+    if word == "either":
+        return many == 3 and is_body_with(name, levels - 1, found) and is_body_with(statement[2], levels - 1, found)
+    if word == "call":
+        return many == 2 and is_known(name, found[2])
+    if word == "read":
+        return many == 3 and is_known(name, found[3]) and is_known(statement[2], found[0])
+    if not is_name(name):
         return False
+    found[4].append((word, name))
+    if word == "place":
+        return many == 2
+    if word == "loop":
+        return many == 3 and is_body_with(statement[2], levels - 1, found)
+    return (word == "guard" and many == 5 and is_known(statement[2], found[0])
+            and is_number(statement[3]) and is_within(statement[4], 1, GREATEST_COST))
+
+
+def is_known(name, known):
+    """Whether the value is a name, which is put into known."""
+    return isinstance(name, str) and (name in known or is_new(name, known))
+
+
+def is_new(name, known):
+    """Whether a string is a name, which is put into known."""
+    if is_name(name):
+        known[name] = True
+    return name in known
+
+
+def are_parts(value, found):
+    """Whether the value is the parts of a set; what it tells is put into found, a look."""
+    if not isinstance(value, tuple) or not 0 < len(value) <= MOST_PARTS:
+        return False
+    variables, constants = found[0], found[1]
+    for part in value:
+        if not isinstance(part, tuple) or len(part) != 2:
+            return False
+        variable, constant = part
+        if isinstance(variable, str):
+            if variable not in variables and not is_new(variable, variables):
+                return False
+        elif variable is not None:
+            return False
+        if isinstance(constant, int):
+            if isinstance(constant, bool) or constant > GREATEST or constant < LEAST:
+                return False
+        elif not isinstance(constant, str) or constant not in constants and not is_new(constant, constants):
+            return False
+    if len(value) == 1:
+        return True
+    found[5].append(value)
     return len({variable for variable, _ in value}) == len(value)
 
 
-def is_plain(statement):
-    """Whether a tuple that begins with a string is a statement without bodies inside."""
-    word, rest = statement[0], statement[1:]
-    if word == "set":
-        return len(rest) == 2 and is_name(rest[0]) and is_parts(rest[1])
-    if word == "input":
-        return len(rest) == 3 and is_name(rest[0]) and is_range(rest[1], rest[2])
-    if word in ("call", "place"):
-        return len(rest) == 1 and is_name(rest[0])
-    if word == "read":
-        return len(rest) == 2 and is_name(rest[0]) and is_name(rest[1])
-    if word == "guard":
-        return len(rest) == 4 and is_guard(rest[0], rest[1], rest[2], rest[3])
-    return False
+def numbered_look(look):
+    """The look at the body with numbers in the places of the names of parameters."""
+    variables, _, callees, arrays, given, several, statements = look
+    return (variables, {}, callees, arrays, given, several, statements)
 
 
-def is_guard(name, variable, most, cost):
-    """Whether a guard can be written with these."""
-    return is_name(name) and is_name(variable) and is_number(most) and is_within(cost, 1, GREATEST_COST)
-
-
-def is_around(statement):
-    """Whether a tuple that begins with a string is a statement, if the bodies inside are bodies."""
-    if statement[0] == "either":
-        return len(statement) == 3
-    return statement[0] == "loop" and len(statement) == 3 and is_name(statement[1])
-
-
-def bodies_inside(statement):
-    """The bodies inside of a statement, a tuple."""
-    if statement[0] == "either":
-        return statement[1:]
-    if statement[0] == "loop":
-        return statement[2:]
-    return ()
-
-
-def count_in_body(value, levels):
-    """How many statements are in a body with at most so many levels; None if the value is no such body."""
-    if levels == 0 or not isinstance(value, tuple):
-        return None
-    many = 0
-    for statement in value:
-        inside = count_in_statement(statement, levels)
-        # It ends here and not behind the loop: what is inside of each other can be written
-        # with few tuples and still have more statements than can be counted.
-        if inside is None or many + inside >= MOST_STATEMENTS:
-            return None
-        many = many + inside + 1
-    return many
-
-
-def count_in_statement(value, levels):
-    """How many statements are inside of a statement in such a body; None if the value is none."""
-    if not isinstance(value, tuple) or len(value) == 0 or not isinstance(value[0], str):
-        return None
-    if is_plain(value):
-        return 0
-    if not is_around(value):
-        return None
-    many = 0
-    for body in bodies_inside(value):
-        inside = count_in_body(body, levels - 1)
-        if inside is None:
-            return None
-        many = many + inside
-    return many
-
-
-def flat(body):
-    """The list of all statements of a body, those inside of one directly behind it."""
-    found = []
-    for statement in body:
-        found.append(statement)
-        for inside in bodies_inside(statement):
-            found.extend(flat(inside))
-    return found
+def opposite_look(look):
+    """The look at the body in which every variable has the opposite sign."""
+    variables, _, callees, _, given, several, statements = look
+    return (variables, {}, callees, {}, [row for row in given if row[0] != "guard"], several, statements)
