@@ -33,6 +33,12 @@ class Reckoning:
 
     def break_above(self, most):
         """The first count for which the greatest value is greater than most, and the head it is from, or None."""
+        # Where it is soon, no rings need to be looked for.
+        for count in range(2 * len(self.heads)):
+            for at, start in self.begins():
+                value = self.tails.sum_for(at, count)
+                if self.hops.least_endless(at) == count or (value is not None and start + value > most):
+                    return (count, at)
         found = None
         for at, start in self.begins():
             count = first_above(self.growth(at), most - start)
@@ -42,7 +48,7 @@ class Reckoning:
 
     def early_value(self, count):
         """The greatest value for a small count if none is endless: an integer or None."""
-        values = [(start, self.tails.early(at, count + 1)[count]) for at, start in self.begins()]
+        values = [(start, self.tails.sum_for(at, count)) for at, start in self.begins()]
         return max([start + value for start, value in values if value is not None], default=None)
 
     def value_for(self, count):

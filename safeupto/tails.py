@@ -97,6 +97,11 @@ class Tails:
         extend(self.vectors, self.rows, count + 1)
         return self.vectors
 
+    def sum_for(self, at, count):
+        """The greatest sum from a head for a small count; None if there is no walk."""
+        worth = self.upto(count)[count][at]
+        return worth if is_there(worth) else None
+
     def early(self, at, many):
         """The list of the greatest sums from a head for so many counts, None where there is no walk."""
         vectors = self.upto(many)

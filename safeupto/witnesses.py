@@ -47,7 +47,7 @@ class Trail:
     def lay(self, at, count, most):
         """Makes the rules of a walk from a head with at most such a count and a sum greater than most."""
         tails = self._tails
-        if self._hops.least_endless(at) is not None or count < tails.length():
+        if count < len(tails.vectors):
             self._go([at, *tails.trail(at, count)], [], 0)
             return
         for stage in tails.stages:
