@@ -42,13 +42,19 @@ def is_input(action):
 
 def greatest_part(parts, names, numbers):
     """The greatest of the parts, numbers being the values of the variables with these names."""
-    return max([constant if variable is None else numbers[names.index(variable)] + constant
-                for variable, constant in parts])
+    found = None
+    for variable, constant in parts:
+        worth = constant if variable is None else numbers[names.index(variable)] + constant
+        if found is None or worth > found:
+            found = worth
+    return found
 
 
 def with_number(numbers, at, number):
     """The tuple of numbers with another one at an index."""
-    return (*numbers[:at], number, *numbers[at + 1:])
+    found = list(numbers)
+    found[at] = number
+    return tuple(found)
 
 
 class Machine:
@@ -190,8 +196,8 @@ class Run:
             # The states come from the machine itself, so only the choices are looked at.
             state = machine.behind(state.point, state.numbers, choice)
             states.append(state)
-        self._states = (*self._states, *states)
-        self._choices = (*self._choices, *choices)
+        self._states = self._states + tuple(states)
+        self._choices = self._choices + tuple(choices)
 
 
 def ends_of(low, high):

@@ -26,46 +26,65 @@ def is_body_with(value, levels, found):
     found[6].extend(value)
     variables = found[0]
     for statement in value:
-        if not isinstance(statement, tuple) or len(statement) < 2:
+        if not isinstance(statement, tuple):
             return False
-        word, name = statement[0], statement[1]
-        if not isinstance(word, str):
-            return False
-        if word == "set":
-            if not isinstance(name, str) or name not in variables and not is_new(name, variables):
+        many = len(statement)
+        if many == 3:
+            word, name, rest = statement
+            if not isinstance(word, str):
                 return False
-            if len(statement) != 3 or not are_parts(statement[2], found):
+            if word == "set":
+                if not isinstance(name, str) or name not in variables and not is_new(name, variables):
+                    return False
+                if not are_parts(rest, found):
+                    return False
+            elif not is_long(word, name, rest, levels, found):
                 return False
-        elif word == "input":
-            if not isinstance(name, str) or name not in variables and not is_new(name, variables):
+        elif many == 2:
+            word, name = statement
+            if not isinstance(word, str) or not is_short(word, name, found):
                 return False
-            if len(statement) != 4 or not is_range(statement[2], statement[3]):
-                return False
-        elif not is_other(statement, levels, found):
+        elif not is_longer(statement, found):
             return False
     # What is inside of each other can be written with few tuples and still have more statements than
     # can be counted; with this look behind each body it ends before that.
     return len(found[6]) <= MOST_STATEMENTS
 
 
-def is_other(statement, levels, found):
-    """Whether a tuple of a string and more is a statement, but no set and no input."""
-    word, name, many = statement[0], statement[1], len(statement)
+def is_long(word, name, rest, levels, found):
+    """Whether a string and two things are a statement, but no set; what it tells is put into found, a look."""
+    if word == "loop":
+        if not is_name(name):
+            return False
+        found[4].append((word, name))
+        return is_body_with(rest, levels - 1, found)
     if word == "either":
-        return many == 3 and is_body_with(name, levels - 1, found) and is_body_with(statement[2], levels - 1, found)
+        return is_body_with(name, levels - 1, found) and is_body_with(rest, levels - 1, found)
+    return word == "read" and is_known(name, found[3]) and is_known(rest, found[0])
+
+
+def is_short(word, name, found):
+    """Whether a string and one thing are a statement; what it tells is put into found, a look."""
     if word == "call":
-        return many == 2 and is_known(name, found[2])
-    if word == "read":
-        return many == 3 and is_known(name, found[3]) and is_known(statement[2], found[0])
-    if not is_name(name):
+        return is_known(name, found[2])
+    if word != "place" or not is_name(name):
         return False
     found[4].append((word, name))
-    if word == "place":
-        return many == 2
-    if word == "loop":
-        return many == 3 and is_body_with(statement[2], levels - 1, found)
-    return (word == "guard" and many == 5 and is_known(statement[2], found[0])
-            and is_number(statement[3]) and is_within(statement[4], 1, GREATEST_COST))
+    return True
+
+
+def is_longer(statement, found):
+    """Whether a tuple is an input or a guard; what it tells is put into found, a look."""
+    if len(statement) == 4:
+        word, name, low, high = statement
+        return isinstance(word, str) and word == "input" and is_known(name, found[0]) and is_range(low, high)
+    if len(statement) != 5:
+        return False
+    word, guard, name, most, cost = statement
+    if not isinstance(word, str) or word != "guard" or not is_name(guard):
+        return False
+    found[4].append((word, guard))
+    return is_known(name, found[0]) and is_number(most) and is_within(cost, 1, GREATEST_COST)
 
 
 def is_known(name, known):
