@@ -210,6 +210,33 @@ class Pieces(Case):
             seen["below"] += -1 in sizes
         self.assertGreater(min(seen.values()), 3)
 
+    def test_wide_ranges(self):
+        seen = {"some": 0, "many": 0}
+        for seed in range(4400, 4900):
+            chance = random.Random(seed)
+            wide = chance.choice([10 ** 3, 10 ** 9, FAR])
+            low, high = -chance.randint(0, wide), chance.randint(0, wide)
+            try:
+                program = Grower(seed, parameters=(("p", low, high),)).program()
+            except SafeError:
+                continue
+            most = chance.choice([0, 3, 100, 10 ** 9, FAR, -10 ** 9])
+            condition, size = ("here", chance.choice(program.names), None, most), chance.choice(sizes_of(program))
+            try:
+                found = pieces(program, "p", {}, condition, size)
+            except TooMany as error:
+                seen["many"] += error.limit == 100
+                continue
+            self.assertEqual((found[0][0], found[-1][1]), (low, high))
+            for first, second in zip(found, found[1:]):
+                self.assertEqual(first[1] + 1, second[0])
+                self.assertNotEqual(first[2], second[2])
+            for first, last, one in found:
+                for number in {first, last, chance.randint(first, last)}:
+                    self.assertEqual(limit(program.given({"p": number}), condition, size), one)
+            seen["some"] += len(found) > 1
+        self.assertGreater(min(seen.values()), 5)
+
     def test_several_times_and_several_parameters(self):
         body = (("set", "x", (("x", "p"),)), ("set", "x", (("x", "q"), ("y", "p"))), ("set", "x", (("x", "p"), ("x", "q"))[:1]))
         main = (("loop", "go", body + (HERE,)),)
