@@ -19,16 +19,15 @@ def format_program(program):
 
 
 def lines_of(body, known):
-    """The lines of the statements of a body; known is a dict from parts to their words, each written once."""
+    """The lines of the statements of a body; known is a dict from the parts of sets to their words."""
     lines = []
     for statement in body:
         word = statement[0]
         if word == "set":
-            for part in statement[2]:
-                if part not in known:
-                    known[part] = part_word(part)
-            parts = " ".join([known[part] for part in statement[2]])
-            lines.append(f"set {statement[1]} {parts}")
+            parts = statement[2]
+            if parts not in known:
+                known[parts] = " ".join([part_word(variable, constant) for variable, constant in parts])
+            lines.append(f"set {statement[1]} {known[parts]}")
         elif word == "either":
             lines.extend(["either", *lines_of(statement[1], known), "or", *lines_of(statement[2], known), "end"])
         elif word == "loop":
@@ -44,9 +43,8 @@ def lines_of(body, known):
     return lines
 
 
-def part_word(part):
+def part_word(variable, constant):
     """The word of a part of a set."""
-    variable, constant = part
     if variable is None:
         return str(constant)
     if isinstance(constant, str) or constant > 0:
