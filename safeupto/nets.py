@@ -126,9 +126,14 @@ def plain_net_for(program, condition):
     return Net(program, graph, condition, counts_for(graph, None))
 
 
+def all_heads(net):
+    """The sorted list of the heads of a net: the beginning nodes, and the nodes to which counted moves lead."""
+    return sorted(set([*net.entries, *[target for _, _, target, _, counted in net.moves if counted == 1]]))
+
+
 def heads_of(net, most):
     """The sorted list of the heads of a net; raises TooMany with most if there are more."""
-    heads = sorted(set([*net.entries, *[target for _, _, target, _, counted in net.moves if counted == 1]]))
+    heads = all_heads(net)
     if len(heads) > most:
         raise TooMany(most)
     return heads

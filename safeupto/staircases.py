@@ -6,7 +6,7 @@ from safeupto.growths import first_above
 from safeupto.hops import Hops
 from safeupto.kinds import is_within
 from safeupto.limits import Limit
-from safeupto.nets import Net, counts_for, graph_for
+from safeupto.nets import Net, all_heads, counts_for, graph_for
 from safeupto.tails import Tails
 
 MOST_FIRST = 8
@@ -24,11 +24,10 @@ def staircase(program, condition, first, second, most):
     ones = counts_for(graph, first)
     net = Net(program, graph, condition, counts_for(graph, second))
     check_heads(net, ones)
-    heads = sorted(set([*net.entries, *[target for _, _, target, _, counted in net.moves if counted == 1]]))
-    many = len(net.spots)
+    heads, many = all_heads(net), len(net.spots)
     # A node stands once for each number of edges that the first size may still count.
-    hops = Hops(many * (most + 1), layered(net, ones, most), [head + many * layer for layer in range(most + 1)
-                                                              for head in heads],
+    hops = Hops(many * (most + 1), layered(net, ones, most),
+                [head + many * layer for layer in range(most + 1) for head in heads],
                 [last + many * layer for layer in range(most + 1) for last in net.exits])
     tails = Tails(hops.rows, hops.lasts, len(heads))
     return [limit_from(net, hops, tails, heads, layer) for layer in range(most + 1)]
