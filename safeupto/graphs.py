@@ -1,7 +1,7 @@
 """The points and edges of programs."""
 
 from safeupto.errors import InvalidName, InvalidProgram, TooMany
-from safeupto.programs import Program
+from safeupto.programs import is_plain
 
 MOST_POINTS = 150
 
@@ -10,7 +10,7 @@ class Graph:
     """The points and edges of a program without parameters."""
 
     def __init__(self, program):
-        if not isinstance(program, Program) or len(program.parameters) > 0:
+        if not is_plain(program):
             raise InvalidProgram(program)
         self._bodies = {name: body for name, body in program.procedures}
         self._many = 1

@@ -64,7 +64,7 @@ def is_breaking(program, condition, size, most, value):
         raise InvalidSize(size)
     if not is_integer(most) or most < 0:
         raise InvalidNumber(most)
-    told = Judge(program, graph, counts_for(graph, size)).follow(value)
+    told = Judge(program, graph, counts_for(graph, size), {}).follow(value)
     if told is None or told[-1][3] > most:
         return False
     worth = worth_of_run(program, graph, condition, told[-1])
@@ -74,7 +74,7 @@ def is_breaking(program, condition, size, most, value):
 def as_run(program, condition, value):
     """A run along the edges of a short run, at the end of which the value is at least the start and sum."""
     graph = graph_for(program, condition)
-    told = Judge(program, graph, counts_for(graph, None)).follow(value)
+    told = Judge(program, graph, counts_for(graph, None), {}).follow(value)
     if told is None or worth_of_run(program, graph, condition, told[-1]) is None:
         raise InvalidPaper(value)
     if told[-1][4] > MOST_STEPS:

@@ -55,26 +55,35 @@ def start_of(ranges, plus, minus):
     return most if minus is None else most - ranges[minus][0]
 
 
-class Net:
-    """The nodes that matter, sorted, in spots, and the steps between them, sorted, in moves.
+class Weave:
+    """Nodes, sorted, in spots, and the steps between them, sorted, in moves, found by going back from ends.
 
-    A move is a tuple (index of a node, edge, index of a node, weight, counted). The indices of the beginning
-    nodes are the keys of entries, with their starts, and those of the end nodes are in exits.
+    A move is a tuple (index of a node, edge, index of a node, weight, counted).
     """
 
-    def __init__(self, program, graph, condition, counts):
-        self.origin = (program, graph, counts)
-        place, plus, minus, self.most = condition
-        ends = [node_at(point, plus, minus) for point in points_in(graph, place)]
+    def __init__(self, graph, ends, counts):
         nodes, steps = steps_back(graph, ends)
         self.spots = sorted(nodes, key=node_order)
         self.index = {node: at for at, node in enumerate(self.spots)}
         index = self.index
         self.moves = sorted([(index[source], edge, index[target], weight, counts[edge])
                              for source, edge, target, weight in steps])
-        ranges = {name: (low, high) for name, low, high in program.variables}
-        self.entries = {index[node]: start_of(ranges, node[1], node[2]) for node in self.spots if node[0] == 0}
         self.exits = [index[node] for node in ends]
+
+
+class Net(Weave):
+    """The nodes that matter for a condition and the steps between them.
+
+    The indices of the beginning nodes are the keys of entries, with their starts, and those of the end nodes are in
+    exits.
+    """
+
+    def __init__(self, program, graph, condition, counts):
+        self.origin = (program, graph, counts)
+        place, plus, minus, self.most = condition
+        Weave.__init__(self, graph, [node_at(point, plus, minus) for point in points_in(graph, place)], counts)
+        ranges = {name: (low, high) for name, low, high in program.variables}
+        self.entries = {self.index[node]: start_of(ranges, node[1], node[2]) for node in self.spots if node[0] == 0}
 
 
 def steps_back(graph, ends):

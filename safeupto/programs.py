@@ -22,6 +22,11 @@ def is_body(value):
     return look_at(value) is not None
 
 
+def is_plain(value):
+    """Whether the value is a program without parameters."""
+    return isinstance(value, Program) and len(value.parameters) == 0
+
+
 def are_rows(rows, most):
     """Whether rows is a list or tuple of at most so many things."""
     return isinstance(rows, (list, tuple)) and len(rows) <= most
@@ -246,6 +251,12 @@ class Program:
         other._main = opposite(self._main)
         other._procedures = tuple([(name, opposite(body)) for name, body in self._procedures])
         other._arrays, other._widths, other._guards = (), (), ()
+        return other
+
+    def beginning_with(self, name):
+        """The program whose main is the body of this name; what stands in it stands twice then."""
+        other = self._copy()
+        other._main = self.body_of(name)
         return other
 
     def _copy(self):

@@ -68,10 +68,10 @@ def is_quotient(value):
 def ring_told(net, value):
     """The sum and the count of a rule with a ring; None if it is none."""
     program, graph, counts = net.origin
-    told = Judge(program, graph, counts).walk(value)
+    told = Judge(program, graph, counts, {}).walk(value)
     if told is None:
         return None
-    first, last, total, count, steps = told
+    first, last, total, count, steps, _ = told
     if steps == 0 or first != last or first not in net.index:
         return None
     return total, count

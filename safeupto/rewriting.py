@@ -48,3 +48,17 @@ def opposite_statement(statement):
     if word in ("guard", "read"):
         return ()
     return (statement,)
+
+
+def guards_in(body):
+    """The list of the guards in a body."""
+    found = []
+    for statement in body:
+        word = statement[0]
+        if word == "guard":
+            found.append(statement)
+        elif word == "loop":
+            found.extend(guards_in(statement[2]))
+        elif word == "either":
+            found.extend([*guards_in(statement[1]), *guards_in(statement[2])])
+    return found

@@ -1,22 +1,30 @@
 """Short runs: lists of rules for walks, told by anyone."""
 
 from safeupto.conditions import is_side, points_in
+from safeupto.growths import least_of
 from safeupto.kinds import is_integer
 from safeupto.nets import change_of, node_at, origins, start_of
 
 
 class Judge:
-    """Follows the rules of short runs in the graph of a program; counts tells what edges are counted."""
+    """Follows the rules of short runs in the graph of a program; counts tells what edges are counted.
 
-    def __init__(self, program, graph, counts):
+    caps is a dict from edges to tuples (variable, most): behind the edge the value for this plus is at most most.
+    """
+
+    def __init__(self, program, graph, counts, caps):
         self._program = program
         self._points = graph.points
         self._edges = graph.edges
         self._counts = counts
+        self._caps = caps
         self._changes = [change_of(action) for _, _, action in graph.edges]
 
     def follow(self, value):
-        """The list of the tuples (first node, last node, sum, count, steps) of the rules; None if one is wrong."""
+        """The list of the tuples (first node, last node, sum, count, steps, cap) of the rules; None if one is wrong.
+
+        A value ahead of the walk becomes the least of its sum with the walk's and the cap, if there is one.
+        """
         if not isinstance(value, list) or len(value) == 0:
             return None
         found = []
@@ -41,7 +49,7 @@ class Judge:
         _, first, steps = value
         if not self._is_node(first) or not isinstance(steps, tuple):
             return None
-        node, total, count = first, 0, 0
+        node, total, count, cap = first, 0, 0, None
         for step in steps:
             weight = self._weight(node, step)
             if weight is None:
@@ -49,7 +57,10 @@ class Judge:
             edge, plus, minus = step
             node = (self._edges[edge][1], plus, minus)
             total, count = total + weight, count + self._counts[edge]
-        return (first, node, total, count, len(steps))
+            cap = None if cap is None else cap + weight
+            if edge in self._caps and self._caps[edge][0] == plus:
+                cap = least_of(cap, self._caps[edge][1])
+        return (first, node, total, count, len(steps), cap)
 
     def _is_node(self, value):
         if not isinstance(value, tuple) or len(value) != 3 or not is_integer(value[0]):
@@ -81,18 +92,22 @@ def both(first, second, earlier):
         return None
     if not 0 <= first < len(earlier) or not 0 <= second < len(earlier):
         return None
-    begin, middle, total, count, steps = earlier[first]
-    other, end, more, others, rest = earlier[second]
-    return (begin, end, total + more, count + others, steps + rest) if middle == other else None
+    begin, middle, total, count, steps, cap = earlier[first]
+    other, end, more, others, rest, last = earlier[second]
+    if middle != other:
+        return None
+    cap = last if cap is None else least_of(cap + more, last)
+    return (begin, end, total + more, count + others, steps + rest, cap)
 
 
 def worth_of_run(program, graph, condition, told):
-    """The start and sum of what a rule tells, if it is from a beginning node to an end node, otherwise None."""
+    """The value behind what a rule tells, if it is from a beginning node to an end node, otherwise None."""
     place, plus, minus, _ = condition
-    first, last, total, _, _ = told
+    first, last, total, _, _, cap = told
     if first[0] != 0 or last not in [node_at(point, plus, minus) for point in points_in(graph, place)]:
         return None
-    return start_of({name: (low, high) for name, low, high in program.variables}, first[1], first[2]) + total
+    start = start_of({name: (low, high) for name, low, high in program.variables}, first[1], first[2])
+    return least_of(start + total, cap)
 
 
 class Rules:

@@ -109,6 +109,36 @@ STAIRCASES = """
 [2, 2, 1, 1]
 """
 
+SUMMARIES = """
+>>> from safeupto.programs import Program
+>>> from safeupto.summaries import greatest_after, joined, summary
+>>> step = Program([('x', 0, 0), ('y', 0, 0)], (('set', 'x', (('x', 1), ('y', 0))),))
+>>> one = summary(step, 'main', ('steps', None), 2)
+>>> [one['x', 'x'], joined(one, one)['x', 'x'], joined(one, one)['y', 'x'], greatest_after(one, {'x': 5, 'y': 9})['x']]
+[(None, 1, 1), (None, None, 2), (None, None, 1), (None, 9, 9)]
+"""
+
+GUARDS = """
+>>> from safeupto.guards import greatest_with, least_guards
+>>> from safeupto.programs import Program
+>>> from safeupto.wishes import safe_up_to, wished
+>>> rows = (('loop', 'go', (('set', 'x', (('x', 1),)), ('place', 'here'), ('guard', 'g', 'x', 10, 2))),)
+>>> capped, wish = Program([('x', 0, 0)], rows, widths=[('x', 4)]), ('here', 'x', None, 11)
+>>> [wished(capped)[1], safe_up_to(capped, ('rounds', 'go')).size, least_guards(capped, wish), greatest_with(capped, wish, ['g'])]
+[(0, 'x', None, 7), 7, (2, ('g',)), 11]
+"""
+
+CHANGES = """
+>>> from safeupto.changes import is_paper, kept
+>>> from safeupto.papers import heights
+>>> from safeupto.programs import Program
+>>> count = Program([('x', 0, 0), ('y', 0, 5)], (('loop', 'go', (('set', 'x', (('x', 3),)), ('place', 'here'))),))
+>>> other = count.replaced('main', (('loop', 'go', (('set', 'x', (('x', 4),)), ('place', 'here'))),))
+>>> paper = ('heights', ('here', 'y', None, 5), heights(count, ('here', 'y', None, 5)))
+>>> [is_paper(count, paper), kept(other, [paper, None])]
+[True, [True, False]]
+"""
+
 
 class Examples(unittest.TestCase):
 
@@ -154,6 +184,15 @@ class Examples(unittest.TestCase):
 
     def test_staircases(self):
         self.holds(STAIRCASES)
+
+    def test_summaries(self):
+        self.holds(SUMMARIES)
+
+    def test_guards(self):
+        self.holds(GUARDS)
+
+    def test_changes(self):
+        self.holds(CHANGES)
 
 
 if __name__ == "__main__":
