@@ -74,18 +74,29 @@ def size_of(run, size):
     return sum(counts_among([edges[index][2] for index, _ in run.choices], size))
 
 
+class Watch:
+    """Looks whether a condition of a program with this graph holds at states."""
+
+    def __init__(self, program, graph, condition):
+        place, plus, minus, self._most = condition
+        self.spots = points_in(graph, place)
+        self._at = None if plus is None else program.names.index(plus)
+        self._less = None if minus is None else program.names.index(minus)
+
+    def is_broken(self, numbers):
+        """Whether the condition does not hold with these values at a point of it."""
+        worth = 0 if self._at is None else numbers[self._at]
+        return worth - (0 if self._less is None else numbers[self._less]) > self._most
+
+
 def first_break(run, condition):
     """The index of the first state of a run at which a condition does not hold, or None."""
     program, graph = run.machine.program, run.machine.graph
     if not is_condition_in(program, graph, condition):
         raise InvalidCondition(condition)
-    place, plus, minus, most = condition
-    points, names = points_in(graph, place), program.names
-    at = None if plus is None else names.index(plus)
-    less = None if minus is None else names.index(minus)
+    watch = Watch(program, graph, condition)
+    points = watch.spots
     for index, state in enumerate(run.states):
-        if state.point in points:
-            numbers = state.numbers
-            if (0 if at is None else numbers[at]) - (0 if less is None else numbers[less]) > most:
-                return index
+        if state.point in points and watch.is_broken(state.numbers):
+            return index
     return None

@@ -56,6 +56,11 @@ def parse_program(text):
     """The program that is written like this."""
     if not isinstance(text, str):
         raise ParseError(None)
-    found = Reader(text.split("\n")).read()
+    lines = text.split("\n")
+    return program_of(Reader(lines, 0, len(lines)).read())
+
+
+def program_of(found):
+    """The program of which a reader found this."""
     return Program(found["var"], found["main"], procedures=found["proc"], parameters=found["param"],
                    arrays=found["array"], widths=found["width"])

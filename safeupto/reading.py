@@ -15,10 +15,10 @@ HEADS = ("var", "param", "array", "width", "proc", "main")
 PLAIN = ("set", "place", "input", "call", "read", "guard")
 
 
-def read_integer(word):
-    """The integer that is written like this, or None."""
+def read_integer(word, longest=LONGEST_INTEGER):
+    """The integer that is written like this with at most so many digits, or None."""
     digits = word.removeprefix("-")
-    if not (digits.isascii() and digits.isdigit()) or len(digits) > LONGEST_INTEGER:
+    if not (digits.isascii() and digits.isdigit()) or len(digits) > longest:
         return None
     if digits[0] == "0" and word != "0":
         return None
@@ -74,11 +74,12 @@ class Parts:
 
 
 class Reader:
-    """Reads the lines of a program from the first one on."""
+    """Reads the lines of a program, which are those from the index first on, up to one ahead of the index last."""
 
-    def __init__(self, lines):
+    def __init__(self, lines, first, last):
         self._lines = lines
-        self._at = 0
+        self._at = first
+        self._last = last
         self._parameters = {}
         self._parts = Parts(self._parameters)
         # What was read once is not looked at again: rows by their lines, integers and names by their words.
@@ -103,7 +104,7 @@ class Reader:
             standing = standing[standing.index(word):]
             row = self._take()
         found["main"] = self._body(MOST_LEVELS, "end")
-        if self._at < len(self._lines):
+        if self._at < self._last:
             raise ParseError(self._at)
         return found
 
@@ -127,7 +128,7 @@ class Reader:
     def _take(self):
         """What the next line says, a tuple, whether or not it can stand there."""
         at = self._at
-        if at == len(self._lines):
+        if at == self._last:
             raise ParseError(at)
         line = self._lines[at]
         row = self._rows.get(line)

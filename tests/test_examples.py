@@ -139,6 +139,27 @@ CHANGES = """
 [True, [True, False]]
 """
 
+CONSOLE = r"""
+>>> from safeupto.certificates import certify, check
+>>> from safeupto.console import Console
+>>> from safeupto.formats import parse_program
+>>> text = 'var x 0 0\nmain\nloop go\nset x x+3\nplace here\nend\nend'
+>>> paper = certify(parse_program(text), ('here', 'x', None, 100), ('rounds', 'go'), 33)
+>>> console = Console()
+>>> lines = ['load ' + text.replace('\n', '; '), 'size rounds go', 'limit here x - 100', 'rate here x -', 'limit here - x 0']
+>>> [paper.split('\n')[8:10], check(paper), [console.run(line) for line in lines]]
+[['condition here x - 100', 'bounds rounds go 33 6 6'], True, ['ok', 'ok', '33', '3/1', 'ever']]
+"""
+
+DOSSIERS = r"""
+>>> from safeupto.dossiers import dossier, judge
+>>> from safeupto.programs import Program
+>>> capped = Program([('x', 0, 0)], (('loop', 'go', (('set', 'x', (('x', 1),)),)),), widths=[('x', 4)])
+>>> text = dossier(capped, ('rounds', 'go'))
+>>> [text.split('\n')[0], judge(text).size, judge(text.replace('dossier rounds go 7', 'dossier rounds go 9'))]
+['dossier rounds go 7 5', 7, None]
+"""
+
 
 class Examples(unittest.TestCase):
 
@@ -193,6 +214,12 @@ class Examples(unittest.TestCase):
 
     def test_changes(self):
         self.holds(CHANGES)
+
+    def test_console(self):
+        self.holds(CONSOLE)
+
+    def test_dossiers(self):
+        self.holds(DOSSIERS)
 
 
 if __name__ == "__main__":

@@ -1,0 +1,99 @@
+"""The words of conditions and sizes, and the lines of papers."""
+
+from safeupto.kinds import is_name
+from safeupto.nets import node_order
+from safeupto.reading import read_integer
+
+KINDS = ("rounds", "calls", "steps")
+
+
+def side_word(side):
+    """The word for a name or None."""
+    return "-" if side is None else side
+
+
+def is_side_word(word):
+    """Whether a word stands for a name or None."""
+    return word == "-" or is_name(word)
+
+
+def side_of(word):
+    """The name or None for which a word stands."""
+    return None if word == "-" else word
+
+
+def read_count(word, longest):
+    """The count that is written like this with at most so many digits, or None."""
+    return None if word.startswith("-") else read_integer(word, longest)
+
+
+def read_place(word, longest):
+    """The name or the point that is written like this, or None."""
+    return word if is_name(word) else read_count(word, longest)
+
+
+def read_size(kind, name):
+    """The size that is written with these words, whether or not it is one of a program, or None."""
+    return (kind, side_of(name)) if kind in KINDS and is_side_word(name) else None
+
+
+def size_words(size):
+    """The words of a size."""
+    return f"{size[0]} {side_word(size[1])}"
+
+
+def limit_word(size):
+    """The word for the size of a Limit."""
+    return "ever" if size is None else str(size)
+
+
+def node_words(node):
+    """The words of a node."""
+    point, plus, minus = node
+    return f"{point} {side_word(plus)} {side_word(minus)}"
+
+
+def pair_order(pair):
+    """What tuples of two nodes are sorted by."""
+    return (*node_order(pair[0]), *node_order(pair[1]))
+
+
+def condition_line(condition):
+    """The line of a condition."""
+    place, plus, minus, most = condition
+    return f"condition {place} {side_word(plus)} {side_word(minus)} {most}"
+
+
+def heights_lines(heights):
+    """The lines of heights."""
+    nodes = sorted(list(heights), key=node_order)
+    return [f"heights {len(nodes)}", *[f"{node_words(node)} {heights[node]}" for node in nodes]]
+
+
+def breaking_lines(size, most, rules):
+    """The lines of a short run for a size and a count."""
+    return [f"breaking {size_words(size)} {most} {len(rules)}", *[rule_line(rule) for rule in rules]]
+
+
+def rule_line(rule):
+    """The line of a rule of a short run."""
+    word, first, second = rule
+    if word == "both":
+        return f"both {first} {second}"
+    steps = [f"{edge}:{side_word(plus)}:{side_word(minus)}" for edge, plus, minus in second]
+    return " ".join(["walk", node_words(first), *steps])
+
+
+def bounds_lines(size, most, bounds):
+    """The lines of bounds for a size and a count."""
+    zero, levels = bounds
+    lines = [f"bounds {size_words(size)} {most} {len(zero)} {len(levels)}", *pair_lines(zero)]
+    for level in levels:
+        lines.extend([f"level {len(level)}", *pair_lines(level)])
+    return lines
+
+
+def pair_lines(bounds):
+    """The lines of a dict from tuples of two nodes to bounds."""
+    return [f"{node_words(pair[0])} {node_words(pair[1])} {bounds[pair]}"
+            for pair in sorted(list(bounds), key=pair_order)]
