@@ -18,10 +18,12 @@ def is_least(bound, first, second):
 class Inspector:
     """Looks whether bounds are such for the heads of a net."""
 
-    def __init__(self, net, heads):
+    def __init__(self, net, heads, most):
         self._net = net
         self._heads = heads
-        self._spots = [net.spots[head] for head in heads]
+        self._most = most
+        self._nodes = net.nodes()
+        self._spots = [self._nodes[head] for head in heads]
         self._places = {head: at for at, head in enumerate(heads)}
 
     def accepts(self, most, value):
@@ -30,7 +32,7 @@ class Inspector:
             return False
         if len(value[1]) != most.bit_length():
             return False
-        zero = self._rows(value[0], self._net.spots)
+        zero = self._rows(value[0], self._nodes)
         levels = [self._rows(level, self._spots) for level in value[1]]
         if zero is None or None in levels:
             return False
@@ -81,7 +83,7 @@ class Inspector:
             if most >> digit & 1 == 1:
                 values = [greatest_sum(values, [row[at] for row in level]) for at in range(len(values))]
         ends = [greatest_sum(values, [row[at] for row in zero]) for at in self._net.exits]
-        return all([end is None or (end != "endless" and end <= self._net.most) for end in ends])
+        return all([end is None or (end != "endless" and end <= self._most) for end in ends])
 
 
 def greatest_sum(values, bounds):

@@ -12,12 +12,12 @@ ENDLESS = 1 << 1000
 NOWHERE = -ENDLESS
 
 
-def caps_on(net, edges, names):
+def caps_on(net, names):
     """The dict from the indices of moves along edges of these guards, for what they lower, to their bounds."""
     found = {}
     for index, (source, edge, _, _, _) in enumerate(net.moves):
-        action = edges[edge][2]
-        if action is not None and action[0] == "guard" and action[1] in names and action[2] == net.spots[source][1]:
+        action = net.ground.chart.edges[edge][2]
+        if action is not None and action[0] == "guard" and action[1] in names and action[2] == net.node(source)[1]:
             found[index] = action[3]
     return found
 
@@ -32,13 +32,13 @@ class Ceilings:
     def __init__(self, net, caps):
         self._net = net
         self._caps = caps
-        self._outs = [[] for _ in net.spots]
+        self._outs = [[] for _ in range(net.many)]
         for index, (source, _, target, weight, _) in enumerate(net.moves):
             self._outs[source].append((target, weight, caps.get(index, ENDLESS), index))
-        self.worths = [NOWHERE] * len(net.spots)
+        self.worths = [NOWHERE] * net.many
         self._stories = []
-        self._told = [None] * len(net.spots)
-        self._risen = [None] * len(net.spots)
+        self._told = [None] * net.many
+        self._risen = [None] * net.many
         for at in net.entries:
             self._tell(at, None, [], net.entries[at], False)
         while self._raise_once():
@@ -83,8 +83,8 @@ class Ceilings:
         """The greatest value at the end nodes: an integer or ENDLESS."""
         return max([self.worths[at] for at in self._net.exits])
 
-    def breaking_rules(self):
-        """The rules of a short run to an end node behind which the value is greater than most of the condition."""
+    def breaking_rules(self, most):
+        """The rules of a short run to an end node behind which the value is greater than most, as it can be."""
         last = max(self._net.exits, key=lambda at: self.worths[at])
         stories = self._stories_to(last)
         rules, found, walk = Rules(self._net), None, []
@@ -92,7 +92,7 @@ class Ceilings:
         for place, (_, steps, worth, again) in enumerate(stories):
             if again:
                 gain = sum([self._net.moves[index][3] for index in steps])
-                needed = worth if worth != ENDLESS else self._needed(stories[place + 1:])
+                needed = worth if worth != ENDLESS else self._needed(stories[place + 1:], most)
                 times = (needed - value + gain - 1) // gain
                 if times > 0:
                     found = rules.joined(found, rules.walk(walk))
@@ -102,8 +102,8 @@ class Ceilings:
                 walk = walk + steps
                 for index in steps:
                     value = min(value + self._net.moves[index][3], self._caps.get(index, ENDLESS))
-        rules.joined(found, rules.walk(walk))
-        return rules.rules if len(rules.rules) > 0 else [("walk", self._net.spots[last], ())]
+        rules.joined(found, rules.ending(walk, last))
+        return rules.rules if len(rules.rules) > 0 else [("walk", self._net.node(last), ())]
 
     def _stories_to(self, at):
         """The list of the stories that tell the value at a node, the first one ahead."""
@@ -113,7 +113,7 @@ class Ceilings:
             place = self._stories[place][0]
         return found[::-1]
 
-    def _needed(self, stories):
+    def _needed(self, stories, most):
         """How great a value must be ahead of these stories to be capped by the first cap, or too great at the end."""
         total = 0
         for _, steps, worth, _ in stories:
@@ -121,4 +121,4 @@ class Ceilings:
                 total = total + self._net.moves[index][3]
             if worth != ENDLESS:
                 return worth - total
-        return self._net.most + 1 - total
+        return most + 1 - total

@@ -4,8 +4,8 @@ from safeupto.errors import InvalidNumber, InvalidPaper
 from safeupto.growths import first_above, joined, raised, value_at
 from safeupto.kinds import is_integer
 from safeupto.limits import Limit
-from safeupto.nets import heads_of, net_for
-from safeupto.reckoning import Reckoning
+from safeupto.nets import net_for
+from safeupto.reckoning import reckoning_of
 
 MOST_FORMULA_HEADS = 12
 
@@ -72,20 +72,24 @@ class Formula:
         return Limit(None if found is None else found - 1)
 
     def __or__(self, other):
-        firsts, stairs, endless = joined(self._growth(), (other.firsts, other.stairs, other.endless))
-        return Formula(firsts, stairs, endless)
+        return formula_of(joined(self._growth(), (other._firsts, other._stairs, other._endless)))
 
     def __add__(self, other):
-        firsts, stairs, endless = raised(self._growth(), other)
-        return Formula(firsts, stairs, endless)
+        return formula_of(raised(self._growth(), other))
 
     def _growth(self):
         return (self._firsts, self._stairs, self._endless)
 
 
+def formula_of(growth):
+    """The formula that tells the same as firsts, stairs and endless, which are known to be right."""
+    firsts, stairs, endless = growth
+    found = Formula([], [], endless)
+    found._firsts = list(firsts)
+    found._stairs = sorted(stairs)
+    return found
+
+
 def formula(program, condition, size):
     """The formula of the greatest values of a condition."""
-    net = net_for(program, condition, size)
-    reckoning = Reckoning(net, heads_of(net, MOST_FORMULA_HEADS), net.moves)
-    firsts, stairs, endless = reckoning.whole(1)
-    return Formula(firsts, stairs, endless)
+    return formula_of(reckoning_of(net_for(program, condition, size), MOST_FORMULA_HEADS).whole())

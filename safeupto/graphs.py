@@ -16,6 +16,8 @@ class Graph:
         self._many = 1
         self._made = []
         self._places = {}
+        # The points to which two edges lead.
+        self._joints = {}
         self._end = self._go_through(program.main, 0)
         self._edges = tuple(self._made)
 
@@ -43,6 +45,10 @@ class Graph:
     def has_place(self, value):
         """Whether the value is the name of a place that has points."""
         return isinstance(value, str) and value in self._places
+
+    def joints(self):
+        """The dict with the points to which two edges lead, which is not to be changed."""
+        return self._joints
 
     def edges_out(self):
         """The list of the lists of the indices of the edges that begin at each point."""
@@ -79,11 +85,13 @@ class Graph:
         first = self._go_through(statement[1], self._lead(point, None))
         second = self._go_through(statement[2], self._lead(point, None))
         joint = self._lead(first, None)
+        self._joints[joint] = True
         self._made.append((second, joint, None))
         return joint
 
     def _loop(self, statement, point):
         head = self._lead(point, None)
+        self._joints[head] = True
         last = self._go_through(statement[2], self._lead(head, ("round", statement[1])))
         self._made.append((last, head, None))
         return self._lead(head, None)

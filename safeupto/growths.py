@@ -35,30 +35,38 @@ def first_on(stair, least, most):
     return rounds * period + offset
 
 
+def early_values(growth, many):
+    """The list of the values for so many first counts, for which none is endless."""
+    firsts = growth[0]
+    return firsts[:many] + [value_at(growth, count) for count in range(len(firsts), many)]
+
+
 def joined(first, second):
     """What tells the greatest of both values."""
-    many = max(len(first[0]), len(second[0]))
     endless = least_of(first[2], second[2])
-    firsts = [greater_of(value_at(first, count), value_at(second, count)) for count in range(many)
-              if endless is None or count < endless]
+    many = max(len(first[0]), len(second[0]))
+    many = many if endless is None else min(many, endless)
+    firsts = [greater_of(one, other) for one, other in zip(early_values(first, many), early_values(second, many))]
     best = {}
     for offset, period, value, gain in [*first[1], *second[1]]:
-        known = best.get((offset, period, gain))
-        if known is None or known < value:
-            best[(offset, period, gain)] = value
+        key = (offset, period, gain)
+        if key not in best or best[key] < value:
+            best[key] = value
     return (firsts, [(offset, period, best[(offset, period, gain)], gain) for offset, period, gain in best], endless)
 
 
 def least_of(first, second):
-    """The least of two counts, where None is none."""
-    return min([count for count in (first, second) if count is not None], default=None)
+    """The least of two integers, where None is none."""
+    if first is None or second is None:
+        return second if first is None else first
+    return min(first, second)
 
 
 def greater_of(first, second):
     """The greatest of two values, where None is less than all."""
     if first is None or second is None:
         return second if first is None else first
-    return max(first, second)
+    return first if first > second else second
 
 
 def raised(growth, number):

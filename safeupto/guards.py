@@ -3,8 +3,10 @@
 from safeupto.bounding import is_bound, is_least
 from safeupto.capping import ENDLESS, Ceilings, caps_on
 from safeupto.errors import InvalidCondition, InvalidName, TooMany
+from safeupto.grounds import Net
 from safeupto.machine import are_guards
-from safeupto.nets import Net, counts_for, graph_for
+from safeupto.nets import ground_with, plain_net_for
+from safeupto.papers import spread
 from safeupto.rewriting import guards_in
 from safeupto.shortruns import Judge, worth_of_run
 
@@ -12,71 +14,81 @@ MOST_GUARDS = 8
 
 
 def guarded_net(program, condition):
-    """The net of a condition without minus of a program with at most 8 guards, and the graph; raises the errors."""
-    graph = graph_for(program, condition)
+    """The net of a condition without minus of a program with at most 8 guards; raises the errors.
+
+    It is merged, but for the points behind guards.
+    """
+    ground = ground_with(program, condition)
     if condition[2] is not None:
         raise InvalidCondition(condition)
     if len(program.guards) > MOST_GUARDS:
         raise TooMany(MOST_GUARDS)
-    return Net(program, graph, condition, counts_for(graph, None)), graph
+    key = ("guards", condition[0], condition[1])
+    found = program.recalled(key)
+    if found is None:
+        kept = [1 if action is not None and action[0] == "guard" else 0 for _, _, action in ground.chart.edges]
+        found = program.remember(key, Net(ground, ground.ends_of(condition), kept, True))
+    return found
 
 
-def net_with(program, condition, names):
-    """The net of a condition, the graph, and the caps on its moves with these guards; raises all errors."""
-    net, graph = guarded_net(program, condition)
+def ceilings_for(program, condition, names):
+    """The greatest values at the nodes of a condition with these guards; raises all errors."""
+    net = guarded_net(program, condition)
     if not are_guards(names, program):
         raise InvalidName(names)
-    return net, graph, caps_on(net, graph.edges, names)
+    return Ceilings(net, caps_on(net, names))
 
 
 def greatest_with(program, condition, names):
     """The greatest value over all runs with these guards: an integer, None or "endless"."""
-    net, _, caps = net_with(program, condition, names)
-    found = Ceilings(net, caps).greatest()
+    found = ceilings_for(program, condition, names).greatest()
     # Each place of a condition is come to, so the value is never None.
     return "endless" if found == ENDLESS else found
 
 
 def is_enough(program, condition, names):
     """Whether a condition holds for ever with these guards."""
-    net, _, caps = net_with(program, condition, names)
-    return Ceilings(net, caps).greatest() <= net.most
+    return ceilings_for(program, condition, names).greatest() <= condition[3]
 
 
 def broken_by(program, condition, names):
     """A short run that breaks a condition with these guards; None if they are enough."""
-    net, _, caps = net_with(program, condition, names)
-    ceilings = Ceilings(net, caps)
-    return None if ceilings.greatest() <= net.most else ceilings.breaking_rules()
+    ceilings = ceilings_for(program, condition, names)
+    return None if ceilings.greatest() <= condition[3] else ceilings.breaking_rules(condition[3])
 
 
 def is_broken_by(program, condition, names, value):
     """Whether the value is a short run that breaks a condition with these guards."""
-    net, graph, _ = net_with(program, condition, names)
-    caps = {edge: (action[2], action[3]) for edge, (_, _, action) in enumerate(graph.edges)
+    ground = guarded_net(program, condition).ground
+    if not are_guards(names, program):
+        raise InvalidName(names)
+    caps = {edge: (action[2], action[3]) for edge, (_, _, action) in enumerate(ground.chart.edges)
             if action is not None and action[0] == "guard" and action[1] in names}
-    told = Judge(program, graph, counts_for(graph, None), caps).follow(value)
+    told = Judge(ground, ground.counts_for(None), caps).follow(value)
     if told is None:
         return False
-    worth = worth_of_run(program, graph, condition, told[-1])
-    return worth is not None and worth > net.most
+    worth = worth_of_run(ground, condition, told[-1])
+    return worth is not None and worth > condition[3]
 
 
 def capped_heights(program, condition, names):
     """Heights that show that these guards are enough; None if they are not."""
-    net, _, caps = net_with(program, condition, names)
-    ceilings = Ceilings(net, caps)
-    if ceilings.greatest() > net.most:
+    ceilings = ceilings_for(program, condition, names)
+    if ceilings.greatest() > condition[3]:
         return None
-    return {node: "endless" if worth == ENDLESS else worth for node, worth in zip(net.spots, ceilings.worths)}
+    found = spread(guarded_net(program, condition), ceilings.worths)
+    return {node: "endless" if found[node] == ENDLESS else found[node] for node in found}
 
 
 def is_capped_heights(program, condition, names, value):
     """Whether the value is such heights."""
-    net, _, caps = net_with(program, condition, names)
-    if not isinstance(value, dict) or len(value) != len(net.spots):
+    guarded_net(program, condition)
+    if not are_guards(names, program):
+        raise InvalidName(names)
+    net = plain_net_for(program, condition, False)
+    if not isinstance(value, dict) or len(value) != net.many:
         return False
-    worths = [value.get(node) for node in net.spots]
+    worths, caps = [value.get(node) for node in net.nodes()], caps_on(net, names)
     if not all([is_bound(worth) for worth in worths]):
         return False
     if not all([is_least(worths[at], net.entries[at], 0) for at in net.entries]):
@@ -84,7 +96,7 @@ def is_capped_heights(program, condition, names, value):
     for index, (source, _, target, weight, _) in enumerate(net.moves):
         if not is_as_great(worths[target], worths[source], weight, caps.get(index)):
             return False
-    return all([worths[at] != "endless" and worths[at] <= net.most for at in net.exits])
+    return all([worths[at] != "endless" and worths[at] <= condition[3] for at in net.exits])
 
 
 def is_as_great(bound, ahead, weight, cap):
@@ -106,12 +118,12 @@ def choices_of(program):
 
 def least_choice(program, condition, choices):
     """The first one of these choices whose guards are enough; None if none is."""
-    net, graph = guarded_net(program, condition)
+    net = guarded_net(program, condition)
     # More guards never make a value greater, so if all are not enough, none of the others are.
     if not is_enough(program, condition, program.guards):
         return None
     for cost, names in choices:
-        if Ceilings(net, caps_on(net, graph.edges, names)).greatest() <= net.most:
+        if Ceilings(net, caps_on(net, names)).greatest() <= condition[3]:
             return cost, names
     return None
 

@@ -4,6 +4,9 @@ from heapq import heappop, heappush
 
 from safeupto.rings import gaining_rings, outs_without, path_to, settle
 
+# After as many passes sums that still rise may do so for ever.
+FEW_PASSES = 4
+
 
 class Hops:
     """What leads from head to head and to the end nodes, without the nodes of rings that gain and count nothing.
@@ -17,45 +20,45 @@ class Hops:
         self.moves = moves
         self.heads = heads
         self.exits = exits
-        self.rings = gaining_rings(many, moves)
-        self.outs = outs_without(many, moves, self.rings)
-        self.reaches = [self.reach(head)[0] for head in heads]
+        places = {head: at for at, head in enumerate(heads)}
+        self.counted = [(source, places[target], weight, index)
+                        for index, (source, _, target, weight, counted) in enumerate(moves) if counted == 1]
+        self.rings, self.outs = {}, outs_without(many, moves, {})
+        # For each node the greatest sums of walks from heads, by their places, that count nothing.
+        self.reaches = flooded(self.outs, [(head, at) for at, head in enumerate(heads)], FEW_PASSES)
+        if self.reaches is None:
+            self.rings, self.outs = gaining_rings(many, moves)
+            seeds = [(head, at) for at, head in enumerate(heads) if head not in self.rings]
+            self.reaches = flooded(self.outs, seeds, None)
         self.rows = self._rows()
-        self.lasts = [greatest_of([reach[at] for at in exits]) for reach in self.reaches]
+        self.lasts = self._lasts()
         self.near, self.far = None, None
         if len(self.rings) > 0:
             self.near = backward(many, moves, {at: 0 for at in exits})
             near = self.near[0]
             self.far = backward(many, moves, {at: near[at] for at in self.rings if near[at] is not None})
-
-    def reach(self, head):
-        """The greatest sums of walks from a head that count nothing, and what raised them last."""
-        worths = [None] * self.many
-        if head not in self.rings:
-            worths[head] = 0
-        risen, _ = settle(self.outs, worths)
-        return worths, risen
-
-    def counted(self):
-        """The list of the tuples (source, place of the target among the heads, weight, index) of counted moves."""
-        place = {head: at for at, head in enumerate(self.heads)}
-        return [(source, place[target], weight, index)
-                for index, (source, _, target, weight, counted) in enumerate(self.moves) if counted == 1]
+        self._risen = {}
 
     def _rows(self):
         """For each head the list of tuples (place of a head, greatest sum) of at most one counted step."""
-        counted = [(source, at, weight) for source, at, weight, _ in self.counted()
-                   if source not in self.rings and self.heads[at] not in self.rings]
-        rows = []
-        for at, reach in enumerate(self.reaches):
-            row = {} if self.heads[at] in self.rings else {at: 0}
-            for source, target, weight in counted:
-                if reach[source] is not None:
-                    worth = reach[source] + weight
+        rings = self.rings
+        rows = [{} if head in rings else {at: 0} for at, head in enumerate(self.heads)]
+        for source, target, weight, _ in self.counted:
+            if self.heads[target] not in rings:
+                for at, reach in self.reaches[source].items():
+                    row, worth = rows[at], reach + weight
                     if target not in row or row[target] < worth:
                         row[target] = worth
-            rows.append(list(row.items()))
-        return rows
+        return [list(row.items()) for row in rows]
+
+    def _lasts(self):
+        """The list of the greatest sums of walks from heads to end nodes that count nothing, or None."""
+        found = [None] * len(self.heads)
+        for last in self.exits:
+            for at, reach in self.reaches[last].items():
+                if found[at] is None or found[at] < reach:
+                    found[at] = reach
+        return found
 
     def least_endless(self, at):
         """The least count with which walks from a head, given by its place, are endlessly great; None if none are."""
@@ -66,31 +69,68 @@ class Hops:
         return follow(self.moves, self.far[1], self.heads[at])
 
     def from_ring(self, node):
-        """The walk from a node to an end node with the least count."""
-        return follow(self.moves, self.near[1], node)[0]
+        """The walk from a node with the least count to an end node, and the end node."""
+        return follow(self.moves, self.near[1], node)
+
+    def _risen_from(self, at):
+        """What raised the greatest sums of walks from a head that count nothing last."""
+        if at not in self._risen:
+            worths = [None] * self.many
+            worths[self.heads[at]] = 0
+            self._risen[at], _ = settle(self.outs, worths)
+        return self._risen[at]
 
     def hop(self, first, second):
         """The list of the indices of the moves of a greatest walk from head to head, both given by their places."""
-        reach, risen = self.reach(self.heads[first])
         found = None
-        for source, at, weight, index in self.counted():
-            if at == second and reach[source] is not None:
-                if found is None or reach[source] + weight > found[0]:
-                    found = (reach[source] + weight, source, index)
-        return [*path_to(risen, found[1]), found[2]]
+        for source, at, weight, index in self.counted:
+            if at == second:
+                reach = self.reaches[source].get(first)
+                if reach is not None and (found is None or reach + weight > found[0]):
+                    found = (reach + weight, source, index)
+        return [*path_to(self._risen_from(first), found[1]), found[2]]
 
     def finish(self, at):
-        """The list of the indices of the moves of a greatest walk from a head to an end node that counts nothing."""
-        reach, risen = self.reach(self.heads[at])
+        """The indices of the moves of a greatest walk from a head that counts nothing to an end node, and this one."""
         for last in self.exits:
-            if reach[last] is not None and reach[last] == self.lasts[at]:
-                return path_to(risen, last)
+            reach = self.reaches[last].get(at)
+            if reach is not None and reach == self.lasts[at]:
+                return path_to(self._risen_from(at), last), last
         return None
 
 
-def greatest_of(worths):
-    """The greatest of these, where None is less than all."""
-    return max([worth for worth in worths if worth is not None], default=None)
+def flooded(outs, seeds, passes):
+    """For each node the dict from names to the greatest sums of walks from the seeds, tuples (node, name), along outs.
+
+    None if after so many passes sums still rise; where passes are not limited, there are no rings that gain.
+    """
+    tables, fresh = [{} for _ in outs], [False] * len(outs)
+    for node, name in seeds:
+        tables[node][name] = 0
+        fresh[node] = True
+    again = True
+    while again and passes != 0:
+        again = flood_once(outs, tables, fresh)
+        passes = None if passes is None else passes - 1
+    return None if again else tables
+
+
+def flood_once(outs, tables, fresh):
+    """Goes through all nodes that were raised since they were gone through; returns whether some still are."""
+    again = False
+    for source, leads in enumerate(outs):
+        if fresh[source]:
+            fresh[source] = False
+            here = tables[source]
+            for target, weight, _ in leads:
+                there = tables[target]
+                for name in here:
+                    worth = here[name] + weight
+                    if name not in there or there[name] < worth:
+                        there[name] = worth
+                        fresh[target] = True
+                        again = again or target <= source
+    return again
 
 
 def backward(many, moves, seeds):

@@ -1,26 +1,25 @@
 """Greatest sums of walks between a few nodes, count by count."""
 
 from safeupto.hops import backward
-from safeupto.rings import gaining_rings, outs_without, settle
+from safeupto.rings import gaining_rings, settle
 
 
 class Layers:
-    """The greatest sums of walks to the ends of a weave for the first counts."""
+    """The greatest sums of walks to the end nodes of a net for the first counts."""
 
-    def __init__(self, weave):
-        self._many = len(weave.spots)
-        self._exits = weave.exits
-        rings = gaining_rings(self._many, weave.moves)
-        self._outs = outs_without(self._many, weave.moves, rings)
-        self._counted = [(source, target, weight) for source, _, target, weight, counted in weave.moves
+    def __init__(self, net):
+        self._many = net.many
+        self._exits = net.exits
+        rings, self._outs = gaining_rings(net.many, net.moves)
+        self._counted = [(source, target, weight) for source, _, target, weight, counted in net.moves
                          if counted == 1 and source not in rings and target not in rings]
         # From a node of such a ring on a walk is as great as one likes, so only its least count is of interest.
-        self._far = [endless_counts(self._many, weave.moves, rings, last) for last in weave.exits]
+        self._far = [endless_counts(net.many, net.moves, rings, last) for last in net.exits]
 
     def rows_from(self, first, most):
-        """For each end the tuple of the greatest sums of walks from a node with at most 0, 1 .. most counted moves."""
+        """The dict from end nodes to the tuples of the greatest sums of walks from a node for the counts up to most."""
         if first is None:
-            return [(None,) * (most + 1) for _ in self._exits]
+            return {last: (None,) * (most + 1) for last in self._exits}
         worths = [None] * self._many
         worths[first] = 0
         settle(self._outs, worths)
@@ -31,10 +30,10 @@ class Layers:
                 vectors.extend([worths] * (most + 1 - len(vectors)))
             else:
                 vectors.append(worths)
-        rows = []
+        rows = {}
         for last, far in zip(self._exits, self._far):
-            rows.append(tuple(["endless" if far[first] is not None and far[first] <= count else vector[last]
-                               for count, vector in enumerate(vectors)]))
+            rows[last] = tuple(["endless" if far[first] is not None and far[first] <= count else vector[last]
+                                for count, vector in enumerate(vectors)])
         return rows
 
     def _with_one_more(self, worths):

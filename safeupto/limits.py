@@ -4,7 +4,7 @@ from safeupto.conditions import is_size
 from safeupto.errors import InvalidNumber, InvalidPaper, InvalidSize, TooMany
 from safeupto.kinds import is_integer
 from safeupto.machine import Machine, Run
-from safeupto.nets import counts_for, graph_for
+from safeupto.nets import ground_with
 from safeupto.reckoning import reckoning_for
 from safeupto.shortruns import Judge, worth_of_run
 from safeupto.witnesses import breaking_rules
@@ -59,29 +59,29 @@ def breaking(program, condition, size):
 
 def is_breaking(program, condition, size, most, value):
     """Whether the value is a short run that breaks a condition with a count of at most most."""
-    graph = graph_for(program, condition)
+    ground = ground_with(program, condition)
     if not is_size(program, size):
         raise InvalidSize(size)
     if not is_integer(most) or most < 0:
         raise InvalidNumber(most)
-    told = Judge(program, graph, counts_for(graph, size), {}).follow(value)
+    told = Judge(ground, ground.counts_for(size), {}).follow(value)
     if told is None or told[-1][3] > most:
         return False
-    worth = worth_of_run(program, graph, condition, told[-1])
+    worth = worth_of_run(ground, condition, told[-1])
     return worth is not None and worth > condition[3]
 
 
 def as_run(program, condition, value):
     """A run along the edges of a short run, at the end of which the value is at least the start and sum."""
-    graph = graph_for(program, condition)
-    told = Judge(program, graph, counts_for(graph, None), {}).follow(value)
-    if told is None or worth_of_run(program, graph, condition, told[-1]) is None:
+    ground = ground_with(program, condition)
+    told = Judge(ground, ground.counts_for(None), {}).follow(value)
+    if told is None or worth_of_run(ground, condition, told[-1]) is None:
         raise InvalidPaper(value)
     if told[-1][4] > MOST_STEPS:
         raise TooMany(MOST_STEPS)
     _, plus, _ = told[-1][0]
     numbers = tuple([high if name == plus else low for name, low, high in program.variables])
-    choices = [(step[0], number_for(graph.edges[step[0]][2], step)) for step in steps_of(value, told)]
+    choices = [(step[0], number_for(ground.chart.edges[step[0]][2], step)) for step in steps_of(value, told)]
     return Run(Machine(program), numbers, choices)
 
 

@@ -2,10 +2,10 @@
 
 from safeupto.errors import InvalidNumber
 from safeupto.kinds import GREATEST, is_integer, is_within
-from safeupto.nets import MOST_HEADS, heads_of, net_for
-from safeupto.papers import are_kept, worths_told
+from safeupto.nets import MOST_HEADS, full_net_for, heads_of, net_for
+from safeupto.papers import are_kept, spread, worths_told
 from safeupto.rates import found_for
-from safeupto.reckoning import Reckoning
+from safeupto.reckoning import reckoning_of
 from safeupto.rings import outs_along, settle
 
 
@@ -19,15 +19,15 @@ def is_pair(value):
 def line_for(net, pair):
     """The list of the least heights along a quotient; None if there are none."""
     p, q = pair
-    worths = [None] * len(net.spots)
+    worths = [None] * net.many
     for at in net.entries:
         worths[at] = q * net.entries[at]
-    _, rings = settle(outs_along(len(net.spots), net.moves, p, q), worths)
+    _, rings = settle(outs_along(net.many, net.moves, p, q), worths)
     return worths if len(rings) == 0 else None
 
 
 def net_with(program, condition, size, pair):
-    """The net of a condition; raises its errors, and InvalidNumber unless pair is a quotient."""
+    """The merged net of a condition; raises its errors, and InvalidNumber unless pair is a quotient."""
     net = net_for(program, condition, size)
     if not is_pair(pair):
         raise InvalidNumber(pair)
@@ -48,12 +48,14 @@ def line_heights(program, condition, size, pair):
     """Heights that show that the least addition is enough; None if it is endless."""
     net = net_with(program, condition, size, pair)
     worths = line_for(net, pair)
-    return None if worths is None else {node: worths[at] for at, node in enumerate(net.spots)}
+    return None if worths is None else spread(net, worths)
 
 
 def is_line(program, condition, size, pair, most, value):
     """Whether the value is heights that show that the addition most is enough."""
-    net = net_with(program, condition, size, pair)
+    net = full_net_for(program, condition, size)
+    if not is_pair(pair):
+        raise InvalidNumber(pair)
     if not is_integer(most):
         raise InvalidNumber(most)
     worths = worths_told(net, value)
@@ -70,7 +72,7 @@ def corners(program, condition, size):
     if quotient == "endless":
         return None
     # Above the rate a walk that is best comes to no head twice.
-    reckoning = Reckoning(net, heads, net.moves)
+    reckoning = reckoning_of(net, MOST_HEADS)
     points = [(count, reckoning.early_value(count)) for count in range(len(heads))]
     p, q = quotient
     found = []

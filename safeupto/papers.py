@@ -3,34 +3,42 @@
 from safeupto.bounding import Inspector
 from safeupto.errors import InvalidNumber
 from safeupto.kinds import GREATEST, is_integer, is_within
-from safeupto.nets import MOST_HEADS, heads_of, net_for, plain_net_for
+from safeupto.nets import MOST_HEADS, full_net_for, heads_of, plain_net_for
 from safeupto.powers import bounds_for
-from safeupto.reckoning import Reckoning
+from safeupto.reckoning import reckoning_for
 from safeupto.rings import outs_along, settle
 
 
 def heights(program, condition):
     """Heights for a condition; None if it does not hold for ever."""
-    net = plain_net_for(program, condition)
-    worths = [net.entries.get(at) for at in range(len(net.spots))]
-    _, rings = settle(outs_along(len(net.spots), net.moves, 0, 1), worths)
-    if len(rings) > 0 or max([worths[at] for at in net.exits]) > net.most:
+    net = plain_net_for(program, condition, True)
+    worths = [None] * net.many
+    for at in net.entries:
+        worths[at] = net.entries[at]
+    _, rings = settle(outs_along(net.many, net.moves, 0, 1), worths)
+    if len(rings) > 0 or max([worths[at] for at in net.exits]) > condition[3]:
         return None
-    return {node: worths[at] for at, node in enumerate(net.spots)}
+    return spread(net, worths)
+
+
+def spread(net, worths):
+    """The dict from all nodes that matter to the worths of a merged net."""
+    pairs = net.ground.twos
+    return {(point, *pairs[code]): worths[net.at(point, code)] for point, code in net.all_places()}
 
 
 def is_heights(program, condition, value):
     """Whether the value is heights for a condition."""
-    net = plain_net_for(program, condition)
+    net = plain_net_for(program, condition, False)
     worths = worths_told(net, value)
-    return worths is not None and are_kept(net, worths, 0, 1) and max([worths[at] for at in net.exits]) <= net.most
+    return worths is not None and are_kept(net, worths, 0, 1) and max([worths[at] for at in net.exits]) <= condition[3]
 
 
 def worths_told(net, value):
     """The list of the integers of a dict from exactly the nodes that matter; None if it is no such dict."""
-    if not isinstance(value, dict) or len(value) != len(net.spots):
+    if not isinstance(value, dict) or len(value) != net.many:
         return None
-    worths = [value.get(node) for node in net.spots]
+    worths = [value.get(node) for node in net.nodes()]
     return worths if all([is_integer(worth) for worth in worths]) else None
 
 
@@ -49,21 +57,19 @@ def are_settled(net, worths, p, q):
 
 def bounds(program, condition, size, most):
     """Bounds for a count; None if the condition does not hold up to it."""
-    net = net_for(program, condition, size)
-    heads = heads_of(net, MOST_HEADS)
+    reckoning = reckoning_for(program, condition, size)
     if not is_within(most, 0, GREATEST):
         raise InvalidNumber(most)
-    reckoning = Reckoning(net, heads, net.moves)
     value = reckoning.value_for(most)
-    if value == "endless" or (value is not None and value > net.most):
+    if value == "endless" or (value is not None and value > condition[3]):
         return None
     return bounds_for(reckoning, most)
 
 
 def is_bounds(program, condition, size, most, value):
     """Whether the value is bounds for a count."""
-    net = net_for(program, condition, size)
+    net = full_net_for(program, condition, size)
     heads = heads_of(net, MOST_HEADS)
     if not is_within(most, 0, GREATEST):
         raise InvalidNumber(most)
-    return Inspector(net, heads).accepts(most, value)
+    return Inspector(net, heads, condition[3]).accepts(most, value)

@@ -5,7 +5,7 @@ number of the parameter the greatest V + B * p, and the least B with which it is
 (V + B * p) * FACTOR - B: FACTOR is greater than any B.
 """
 
-from safeupto.growths import first_above, value_at
+from safeupto.growths import first_above, joined, raised, value_at
 from safeupto.reckoning import Reckoning
 from safeupto.rings import totals
 
@@ -18,19 +18,31 @@ def told_by(worth):
     return value, value * FACTOR - worth
 
 
+def whole_of(reckoning):
+    """How the greatest worths grow, each gain being that of a ring."""
+    whole = None
+    for at, start in reckoning.begins():
+        tails, endless = reckoning.tails, reckoning.hops.least_endless(at)
+        growth = tails.staged_growth(at) if endless is None else (tails.early(at, endless), [], endless)
+        growth = raised(growth, start * FACTOR)
+        whole = growth if whole is None else joined(whole, growth)
+    return whole
+
+
 class Family:
     """The walks of a net for all numbers of a parameter; other is the net for the number behind the least one."""
 
-    def __init__(self, net, other, heads, least):
+    def __init__(self, net, other, heads, least, most):
         self._net = net
+        self._most = most
         self._heads = heads
         self._least = least
         self._uses = [second[3] - first[3] for first, second in zip(net.moves, other.moves)]
 
     def piece(self, low, high):
         """The size from a number on: a count, None or -1, and the last number up to high with this size."""
-        growth = self._reckoning(low).whole(FACTOR)
-        found = first_above(growth, self._net.most * FACTOR)
+        growth = whole_of(self._reckoning(low))
+        found = first_above(growth, self._most * FACTOR)
         size = None if found is None else found - 1
         if size == -1:
             # The values never become less as the parameter grows.
@@ -57,12 +69,12 @@ class Family:
         if worth is None:
             return high
         value, uses = told_by(worth)
-        return high if uses == 0 else low + (self._net.most - value) // uses
+        return high if uses == 0 else low + (self._most - value) // uses
 
     def _excess(self, number, size):
         """By how much a walk with at most this count is too great with this number; None if none is."""
         reckoning = self._reckoning(number)
-        firsts, stairs, endless = reckoning.whole(FACTOR)
+        firsts, stairs, endless = whole_of(reckoning)
         if endless is not None and (size is None or endless <= size):
             return self._ring_gain(reckoning, endless)
         if size is not None:
@@ -73,7 +85,7 @@ class Family:
                 return gains[0]
             worths = firsts + [value for _, _, value, _ in stairs]
         most = max([worth for worth in worths if worth is not None], default=None)
-        return None if most is None or most <= self._net.most * FACTOR else most - self._net.most * FACTOR
+        return None if most is None or most <= self._most * FACTOR else most - self._most * FACTOR
 
     def _ring_gain(self, reckoning, endless):
         """What a ring gains that counts nothing and that one comes to with such a count."""

@@ -1,6 +1,6 @@
 """Bounds for walks with many counted steps, made by joining walks of half as many."""
 
-from safeupto.tails import LEAST, is_there
+from safeupto.vectors import LEAST, is_there
 
 
 def product(first, second):
@@ -19,15 +19,16 @@ def product_of_marks(here, endless):
 def bounds_for(reckoning, most):
     """The tuple (zero, levels) of the least bounds for a count."""
     net, heads, hops = reckoning.net, reckoning.heads, reckoning.hops
-    nodes = [net.spots[head] for head in heads]
+    nodes = [net.node(head) for head in heads]
     far = [endless_from(hops, head) for head in heads]
-    zero = {}
-    for at, reach in enumerate(hops.reaches):
-        for index, worth in enumerate(reach):
+    zero, pairs = {}, net.ground.twos
+    places = [((point, *pairs[code]), net.at(point, code)) for point, code in net.all_places()]
+    for at, head in enumerate(nodes):
+        for node, index in places:
             if far[at][index]:
-                zero[(nodes[at], net.spots[index])] = "endless"
-            elif worth is not None:
-                zero[(nodes[at], net.spots[index])] = worth
+                zero[(head, node)] = "endless"
+            elif at in hops.reaches[index]:
+                zero[(head, node)] = hops.reaches[index][at]
     finite, endless = first_level(hops, far)
     levels = []
     while len(levels) < most.bit_length():
@@ -79,12 +80,12 @@ def first_level(hops, far):
     heads = hops.heads
     finite = [[0 if first == second else LEAST for second in heads] for first in heads]
     endless = [[False for _ in heads] for _ in heads]
-    for at, reach in enumerate(hops.reaches):
-        for source, target, weight, _ in hops.counted():
-            if far[at][source]:
+    for source, target, weight, _ in hops.counted:
+        for at, marks in enumerate(far):
+            if marks[source]:
                 endless[at][target] = True
-            elif reach[source] is not None:
-                finite[at][target] = max(finite[at][target], reach[source] + weight)
+            elif at in hops.reaches[source]:
+                finite[at][target] = max(finite[at][target], hops.reaches[source][at] + weight)
     return finite, endless
 
 

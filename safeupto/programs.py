@@ -13,6 +13,8 @@ MOST_ARRAYS = 3
 MOST_WIDTHS = 4
 LEAST_BITS = 2
 MOST_BITS = 64
+# How much is remembered of a program: what is found out for some tens of conditions.
+MOST_REMEMBERED = 64
 # What a copy begins with: the variables of a program that is looked at quickly.
 SMALLEST = (("x", 0, 0),)
 
@@ -132,6 +134,7 @@ class Program:
         self._arrays = tuple(arrays)
         self._widths = tuple(widths)
         self._names = tuple([name for name, _, _ in variables])
+        self._memory = {}
         self._put(main, tuple(procedures), looks)
 
     def _put(self, main, procedures, looks):
@@ -252,6 +255,17 @@ class Program:
         other._procedures = tuple([(name, opposite(body)) for name, body in self._procedures])
         other._arrays, other._widths, other._guards = (), (), ()
         return other
+
+    def recalled(self, key):
+        """What was remembered with a key, or None."""
+        return self._memory.get(key)
+
+    def remember(self, key, found):
+        """Remembers what was found out about the program, which never changes, and returns it."""
+        if len(self._memory) == MOST_REMEMBERED:
+            self._memory.clear()
+        self._memory[key] = found
+        return found
 
     def beginning_with(self, name):
         """The program whose main is the body of this name; what stands in it stands twice then."""

@@ -3,19 +3,17 @@
 from math import gcd
 
 from safeupto.kinds import is_integer
-from safeupto.nets import net_for
-from safeupto.papers import are_settled, worths_told
-from safeupto.rings import best_quotient, outs_without, settle
-from safeupto.shortruns import Judge, walk_rule
+from safeupto.nets import full_net_for, net_for
+from safeupto.papers import are_settled, spread, worths_told
+from safeupto.rings import best_quotient
+from safeupto.shortruns import Judge, ring_rule
 
 
 def found_for(net):
     """The tuple (rate, ring or None, worths or None) of a net; the ring is a list of indices of moves."""
-    many = len(net.spots)
-    _, rings = settle(outs_without(many, net.moves, ()), [0] * many)
-    if len(rings) > 0:
-        return "endless", rings[0], None
-    return best_quotient(many, net.moves)
+    if "rate" not in net.known:
+        net.known["rate"] = best_quotient(net.many, net.moves)
+    return net.known["rate"]
 
 
 def rate(program, condition, size):
@@ -27,20 +25,20 @@ def best_ring(program, condition, size):
     """A rule with a ring that has the rate; None if it is (0, 1)."""
     net = net_for(program, condition, size)
     _, ring, _ = found_for(net)
-    return None if ring is None else walk_rule(net, ring)
+    return None if ring is None else ring_rule(net, ring)
 
 
 def rate_paper(program, condition, size):
     """The rate, a ring that has it, and heights which show that no ring has a greater one."""
     net = net_for(program, condition, size)
     quotient, ring, worths = found_for(net)
-    heights = None if worths is None else {node: worths[at] for at, node in enumerate(net.spots)}
-    return (quotient, None if ring is None else walk_rule(net, ring), heights)
+    heights = None if worths is None else spread(net, worths)
+    return (quotient, None if ring is None else ring_rule(net, ring), heights)
 
 
 def is_rate(program, condition, size, value):
     """Whether the value is the rate with such a ring and such heights."""
-    net = net_for(program, condition, size)
+    net = full_net_for(program, condition, size)
     if not isinstance(value, tuple) or len(value) != 3:
         return False
     quotient, ring, heights = value
@@ -67,11 +65,10 @@ def is_quotient(value):
 
 def ring_told(net, value):
     """The sum and the count of a rule with a ring; None if it is none."""
-    program, graph, counts = net.origin
-    told = Judge(program, graph, counts, {}).walk(value)
+    told = Judge(net.ground, net.counts, {}).walk(value)
     if told is None:
         return None
     first, last, total, count, steps, _ = told
-    if steps == 0 or first != last or first not in net.index:
+    if steps == 0 or first != last or not net.has_node(first):
         return None
     return total, count

@@ -1,9 +1,9 @@
 """What is known of a condition behind the front door: its net, its heads, and how its greatest values grow."""
 
-from safeupto.growths import first_above, joined, raised, value_at
+from safeupto.growths import first_above, joined, raised
 from safeupto.hops import Hops
 from safeupto.nets import MOST_HEADS, heads_of, net_for
-from safeupto.tails import Tails
+from safeupto.tails import SOON, Tails
 
 
 class Reckoning:
@@ -12,7 +12,7 @@ class Reckoning:
     def __init__(self, net, heads, moves):
         self.net = net
         self.heads = heads
-        self.hops = Hops(len(net.spots), moves, heads, net.exits)
+        self.hops = Hops(net.many, moves, heads, net.exits)
         self.tails = Tails(self.hops.rows, self.hops.lasts, len(heads))
 
     def begins(self):
@@ -24,23 +24,25 @@ class Reckoning:
         """How the greatest sums of walks from a head grow."""
         return self.tails.growth(at, self.hops.least_endless(at))
 
-    def whole(self, factor):
-        """How the greatest values grow, with starts multiplied by a factor."""
-        whole = ([], [], None)
+    def whole(self):
+        """How the greatest values grow."""
+        whole = None
         for at, start in self.begins():
-            whole = joined(whole, raised(self.growth(at), start * factor))
+            growth = raised(self.growth(at), start)
+            whole = growth if whole is None else joined(whole, growth)
         return whole
 
     def break_above(self, most):
         """The first count for which the greatest value is greater than most, and the head it is from, or None."""
-        # Where it is soon, no rings need to be looked for.
-        for count in range(2 * len(self.heads)):
-            for at, start in self.begins():
+        begins = self.begins()
+        # Where it is at once, it is not asked how the values grow.
+        for count in range(SOON):
+            for at, start in begins:
                 value = self.tails.sum_for(at, count)
                 if self.hops.least_endless(at) == count or (value is not None and start + value > most):
                     return (count, at)
         found = None
-        for at, start in self.begins():
+        for at, start in begins:
             count = first_above(self.growth(at), most - start)
             if count is not None and (found is None or count < found[0]):
                 found = (count, at)
@@ -53,13 +55,25 @@ class Reckoning:
 
     def value_for(self, count):
         """The greatest value for a count: an integer, None or "endless"."""
-        values = [value_at(raised(self.growth(at), start), count) for at, start in self.begins()]
-        if "endless" in values:
-            return "endless"
-        return max([value for value in values if value is not None], default=None)
+        values = []
+        for at, start in self.begins():
+            endless = self.hops.least_endless(at)
+            if endless is not None and endless <= count:
+                return "endless"
+            value = self.tails.greatest(at, count)
+            if value is not None:
+                values.append(start + value)
+        return max(values, default=None)
+
+
+def reckoning_of(net, most):
+    """What is known of a net; raises TooMany with most if it has more heads."""
+    heads = heads_of(net, most)
+    if "reckoning" not in net.known:
+        net.known["reckoning"] = Reckoning(net, heads, net.moves)
+    return net.known["reckoning"]
 
 
 def reckoning_for(program, condition, size):
     """What is known of a condition with at most 24 heads; raises the errors of what it is asked for with."""
-    net = net_for(program, condition, size)
-    return Reckoning(net, heads_of(net, MOST_HEADS), net.moves)
+    return reckoning_of(net_for(program, condition, size), MOST_HEADS)

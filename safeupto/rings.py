@@ -16,12 +16,20 @@ def outs_along(many, moves, p, q):
 
 
 def outs_without(many, moves, barred):
-    """What leads out along moves that are not counted, between nodes that are not keys of barred."""
+    """What leads out along moves that are not counted, between nodes that are not keys of barred.
+
+    Moves from a node to itself are left out, unless they gain.
+    """
     outs = [[] for _ in range(many)]
     for index, (source, _, target, weight, counted) in enumerate(moves):
-        if counted == 0 and source not in barred and target not in barred:
+        if counted == 0 and (source != target or weight > 0) and source not in barred and target not in barred:
             outs[source].append((target, weight, index))
     return outs
+
+
+def is_straight(outs):
+    """Whether nothing leads to a node from itself or one behind it, so that there are no rings."""
+    return not any([target <= source for source, leads in enumerate(outs) for target, _, _ in leads])
 
 
 def settle(outs, worths):
@@ -31,25 +39,28 @@ def settle(outs, worths):
     which are lists of indices of moves. Where there is no worth, it is None.
     """
     risen = [None] * len(worths)
-    while raise_once(outs, worths, risen):
+    # Only what rose since it was gone through is gone through again.
+    fresh = [worth is not None for worth in worths]
+    while raise_once(outs, worths, risen, fresh):
         rings = rings_among(risen)
         if len(rings) > 0:
             return risen, rings
     return risen, []
 
 
-def raise_once(outs, worths, risen):
+def raise_once(outs, worths, risen, fresh):
     """Raises the worths along each move once, in order; returns whether moves that lead back raised some."""
-    # Only moves to a node that was gone through before make it necessary to go through all of them again.
     again = False
     for source, leads in enumerate(outs):
-        worth = worths[source]
-        if worth is not None:
+        if fresh[source]:
+            fresh[source] = False
+            worth = worths[source]
             for target, weight, index in leads:
                 known = worths[target]
                 if known is None or known < worth + weight:
                     worths[target] = worth + weight
                     risen[target] = (source, index)
+                    fresh[target] = True
                     again = again or target <= source
     return again
 
@@ -94,12 +105,16 @@ def totals(moves, walk):
 
 
 def gaining_rings(many, moves):
-    """A dict from nodes to rings without counted moves that gain; without these nodes there is no such ring."""
+    """A dict from nodes to rings without counted moves that gain; without these nodes there is no such ring.
+
+    The second thing is what leads out along moves that are not counted, without these nodes.
+    """
     found = {}
     while True:
-        _, rings = settle(outs_without(many, moves, found), [0] * many)
+        outs = outs_without(many, moves, found)
+        rings = [] if is_straight(outs) else settle(outs, [0] * many)[1]
         if len(rings) == 0:
-            return found
+            return found, outs
         for ring in rings:
             for index in ring:
                 found[moves[index][0]] = ring
@@ -108,7 +123,8 @@ def gaining_rings(many, moves):
 def best_quotient(many, moves):
     """The greatest quotient (p, q) of sum and count of rings, at least (0, 1), and a ring that has it, or None.
 
-    The third thing are worths that no move raises for this quotient. Each ring with a positive sum is counted.
+    The third thing are worths that no move raises for this quotient. The quotient is "endless", and there are no
+    worths, if a ring that is not counted has a positive sum.
     """
     p, q, best = 0, 1, None
     while True:
@@ -118,6 +134,8 @@ def best_quotient(many, moves):
             return (p, q), best, worths
         for ring in rings:
             gain, count = totals(moves, ring)
+            if count == 0:
+                return "endless", ring, None
             if gain * q > p * count:
                 p, q, best = gain // gcd(gain, count), count // gcd(gain, count), ring
 

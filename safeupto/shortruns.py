@@ -1,24 +1,24 @@
 """Short runs: lists of rules for walks, told by anyone."""
 
-from safeupto.conditions import is_side, points_in
+from safeupto.conditions import points_in
 from safeupto.growths import least_of
 from safeupto.kinds import is_integer
-from safeupto.nets import change_of, node_at, origins, start_of
 
 
 class Judge:
-    """Follows the rules of short runs in the graph of a program; counts tells what edges are counted.
+    """Follows the rules of short runs on the ground of a program; counts tells what edges are counted.
 
     caps is a dict from edges to tuples (variable, most): behind the edge the value for this plus is at most most.
     """
 
-    def __init__(self, program, graph, counts, caps):
-        self._program = program
-        self._points = graph.points
-        self._edges = graph.edges
+    def __init__(self, ground, counts, caps):
+        self._points = ground.chart.points
+        self._edges = ground.chart.edges
+        self._ranks = ground.ranks
+        self._changes = ground.changes
+        self._ground = ground
         self._counts = counts
         self._caps = caps
-        self._changes = [change_of(action) for _, _, action in graph.edges]
 
     def follow(self, value):
         """The list of the tuples (first node, last node, sum, count, steps, cap) of the rules; None if one is wrong.
@@ -49,17 +49,20 @@ class Judge:
         _, first, steps = value
         if not self._is_node(first) or not isinstance(steps, tuple):
             return None
+        edges, counts, caps = self._edges, self._counts, self._caps
         node, total, count, cap = first, 0, 0, None
         for step in steps:
             weight = self._weight(node, step)
             if weight is None:
                 return None
-            edge, plus, minus = step
-            node = (self._edges[edge][1], plus, minus)
-            total, count = total + weight, count + self._counts[edge]
-            cap = None if cap is None else cap + weight
-            if edge in self._caps and self._caps[edge][0] == plus:
-                cap = least_of(cap, self._caps[edge][1])
+            edge = step[0]
+            node = (edges[edge][1], step[1], step[2])
+            if weight != 0:
+                total = total + weight
+                cap = None if cap is None else cap + weight
+            count = count + counts[edge]
+            if edge in caps and caps[edge][0] == step[1]:
+                cap = least_of(cap, caps[edge][1])
         return (first, node, total, count, len(steps), cap)
 
     def _is_node(self, value):
@@ -68,22 +71,36 @@ class Judge:
         return 0 <= value[0] < self._points and self._are_sides(value[1], value[2])
 
     def _are_sides(self, plus, minus):
-        if not is_side(self._program, plus) or not is_side(self._program, minus):
+        """Whether these are plus and minus of a node."""
+        if not (plus is None or isinstance(plus, str)) or not (minus is None or isinstance(minus, str)):
             return False
-        return plus is None or plus != minus
+        return plus in self._ranks and minus in self._ranks and (plus is None or plus != minus)
 
     def _weight(self, node, step):
         """The weight of a step from a node; None if it is none."""
-        if not isinstance(step, tuple) or len(step) != 3 or not is_integer(step[0]):
+        if not isinstance(step, tuple) or len(step) != 3:
             return None
         edge, plus, minus = step
-        if not 0 <= edge < len(self._edges) or not self._are_sides(plus, minus):
+        if not isinstance(edge, int) or isinstance(edge, bool) or not 0 <= edge < len(self._edges):
             return None
-        source = self._edges[edge][0]
-        for was_plus, was_minus, weight in origins(self._changes[edge], plus, minus):
-            if node_at(source, was_plus, was_minus) == node:
+        point, was_plus, was_minus = node
+        if self._edges[edge][0] != point:
+            return None
+        if edge not in self._changes:
+            return 0 if is_same(plus, was_plus) and is_same(minus, was_minus) else None
+        if not self._are_sides(plus, minus):
+            return None
+        ground = self._ground
+        code = ground.code_of(was_plus, was_minus)
+        for was, weight in ground.origins(self._changes[edge], ground.code_of(plus, minus)):
+            if was == code:
                 return weight
         return None
+
+
+def is_same(side, other):
+    """Whether any value is the same as one that is a name or None."""
+    return side is None if other is None else isinstance(side, str) and side == other
 
 
 def both(first, second, earlier):
@@ -100,18 +117,17 @@ def both(first, second, earlier):
     return (begin, end, total + more, count + others, steps + rest, cap)
 
 
-def worth_of_run(program, graph, condition, told):
+def worth_of_run(ground, condition, told):
     """The value behind what a rule tells, if it is from a beginning node to an end node, otherwise None."""
     place, plus, minus, _ = condition
     first, last, total, _, _, cap = told
-    if first[0] != 0 or last not in [node_at(point, plus, minus) for point in points_in(graph, place)]:
+    if first[0] != 0 or last[0] not in points_in(ground.chart, place) or last[1] != plus or last[2] != minus:
         return None
-    start = start_of({name: (low, high) for name, low, high in program.variables}, first[1], first[2])
-    return least_of(start + total, cap)
+    return least_of(ground.start_of(ground.code_of(first[1], first[2])) + total, cap)
 
 
 class Rules:
-    """The rules of a short run that is being made; moves and nodes are those of a net."""
+    """The rules of a short run that is being made, of walks of a net."""
 
     def __init__(self, net):
         self._net = net
@@ -122,9 +138,19 @@ class Rules:
         """The index of a rule with a walk, a list of indices of moves; None if it is empty."""
         if len(walk) == 0:
             return None
-        if tuple(walk) not in self._walks:
-            self._walks[tuple(walk)] = self._add(walk_rule(self._net, walk))
-        return self._walks[tuple(walk)]
+        return self._kept(self._net.moves[walk[0]][0], self._net.steps_of(walk))
+
+    def ending(self, walk, end):
+        """The index of a rule with a walk that ends at an end node, and goes on to its point; None if it is empty."""
+        first = end if len(walk) == 0 else self._net.moves[walk[0]][0]
+        steps = [*self._net.steps_of(walk), *self._net.last_steps(end)]
+        return None if len(steps) == 0 else self._kept(first, steps)
+
+    def _kept(self, first, steps):
+        rule = ("walk", self._net.node(first), tuple(steps))
+        if rule not in self._walks:
+            self._walks[rule] = self._add(rule)
+        return self._walks[rule]
 
     def joined(self, first, second):
         """The index of a rule for both of these, where None is empty."""
@@ -148,11 +174,6 @@ class Rules:
         return len(self.rules) - 1
 
 
-def walk_rule(net, walk):
-    """The rule with a walk, a list of indices of moves that is not empty."""
-    steps = []
-    for index in walk:
-        _, edge, target, _, _ = net.moves[index]
-        _, plus, minus = net.spots[target]
-        steps.append((edge, plus, minus))
-    return ("walk", net.spots[net.moves[walk[0]][0]], tuple(steps))
+def ring_rule(net, ring):
+    """The rule with a ring, a list of indices of moves."""
+    return ("walk", net.node(net.moves[ring[0]][0]), tuple(net.steps_of(ring)))

@@ -1,13 +1,13 @@
 """Sizes for all ranges of the variables, and for all numbers of a parameter."""
 
 from safeupto.errors import InvalidCondition, InvalidName, InvalidNumber, InvalidProgram, TooMany
-from safeupto.formulas import MOST_FORMULA_HEADS, Formula
+from safeupto.formulas import MOST_FORMULA_HEADS, formula_of
 from safeupto.kinds import is_name, is_number, is_range
 from safeupto.limits import Limit
-from safeupto.nets import MOST_HEADS, graph_for, heads_of, net_for, sized_net, start_of
+from safeupto.nets import MOST_HEADS, ground_with, heads_of, net_for, sized_net
 from safeupto.parametric import Family
 from safeupto.programs import Program, are_values
-from safeupto.reckoning import Reckoning
+from safeupto.reckoning import reckoning_of
 
 MOST_PARTS = 100
 
@@ -26,14 +26,12 @@ class Starts:
     """The formulas of a condition for all ranges of the variables."""
 
     def __init__(self, program, condition, size):
-        net = net_for(program, condition, size)
-        reckoning = Reckoning(net, heads_of(net, MOST_FORMULA_HEADS), net.moves)
+        reckoning = reckoning_of(net_for(program, condition, size), MOST_FORMULA_HEADS)
         self._names = program.names
         self._formulas = {}
         for at, _ in reckoning.begins():
-            _, plus, minus = net.spots[reckoning.heads[at]]
-            firsts, stairs, endless = reckoning.growth(at)
-            self._formulas[(plus, minus)] = Formula(firsts, stairs, endless)
+            _, plus, minus = reckoning.net.node(reckoning.heads[at])
+            self._formulas[(plus, minus)] = formula_of(reckoning.growth(at))
 
     @property
     def pairs(self):
@@ -57,7 +55,9 @@ class Starts:
         found = Limit(None)
         for plus, minus in self._formulas:
             growing = self._formulas[(plus, minus)]
-            found = found & growing(most - start_of(ranges, plus, minus))
+            high = 0 if plus is None else ranges[plus][1]
+            low = 0 if minus is None else ranges[minus][0]
+            found = found & growing(most - high + low)
         return found
 
 
@@ -73,7 +73,7 @@ def pieces(program, name, values, condition, size):
     net = net_with(program, name, values, low, condition, size)
     heads = heads_of(net, MOST_HEADS)
     other = net if low == high else net_with(program, name, values, low + 1, condition, size)
-    family = Family(net, other, heads, low)
+    family = Family(net, other, heads, low, condition[3])
     found = []
     while low <= high:
         if len(found) == MOST_PARTS:
@@ -89,7 +89,7 @@ def net_with(program, name, values, number, condition, size):
     numbers = {one: values[one] for one in values}
     numbers[name] = number
     given = program.given(numbers)
-    graph = graph_for(given, condition)
+    ground = ground_with(given, condition)
     if condition[2] is not None:
         raise InvalidCondition(condition)
-    return sized_net(given, graph, condition, size)
+    return sized_net(given, ground, condition, size)

@@ -3,10 +3,9 @@
 from safeupto.bounding import is_bound
 from safeupto.conditions import is_size
 from safeupto.errors import InvalidNumber, InvalidPaper, InvalidProgram, InvalidSize
-from safeupto.graphs import Graph
+from safeupto.grounds import Ground, Net
 from safeupto.kinds import is_integer, is_name, is_within
 from safeupto.layers import Layers
-from safeupto.nets import Weave, counts_for
 from safeupto.programs import is_plain
 
 MOST_COUNT = 20
@@ -21,16 +20,17 @@ def summary(program, name, size, most):
         raise InvalidSize(size)
     if not is_within(most, 0, MOST_COUNT):
         raise InvalidNumber(most)
-    graph = Graph(program.beginning_with(name))
-    sides = [None, *program.names]
-    weave = Weave(graph, [(graph.end, last, None) for last in sides], counts_for(graph, size))
-    layers = Layers(weave)
+    ground = Ground(program.beginning_with(name))
+    sides, end = [None, *program.names], ground.chart.end
+    net = Net(ground, [(end, ground.code_of(last, None)) for last in sides], ground.counts_for(size), True)
+    layers = Layers(net)
     found = {}
     for first in sides:
-        rows = layers.rows_from(weave.index.get((0, first, None)), most)
-        for last, row in zip(sides, rows):
+        code = ground.code_of(first, None)
+        rows = layers.rows_from(net.at(0, code) if net.has_node((0, first, None)) else None, most)
+        for last in sides:
             if first is None or last is not None:
-                found[(first, last)] = row
+                found[(first, last)] = rows[net.at(end, ground.code_of(last, None))]
     return found
 
 

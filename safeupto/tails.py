@@ -3,32 +3,19 @@
 Heads are numbers. With several layers the heads of the first layer are 0 .. width - 1, those of the next one follow,
 and so on; what leads from head to head is the same within each layer, and never leads to a later layer.
 
-The rings in which the sum grows fastest are looked at first. A long walk that touches such a ring can be turned into
-a short one that touches it and goes around it often, with no less sum: of as many rings as this one is long some have
-a count together that it divides, and going around this one instead is no loss. Walks that touch none of its
-heads are looked at next, and so on.
+Most often the sums soon rise in a pattern. Where they do not, the rings in which the sum grows fastest are looked at
+first. A long walk that touches such a ring can be turned into a short one that touches it and goes around it often,
+with no less sum: of as many rings as this one is long some have a count together that it divides, and going around
+this one instead is no loss. Walks that touch none of its heads are looked at next, and so on.
 """
 
+from safeupto.growths import value_at
+from safeupto.patterns import pattern_of
 from safeupto.rings import best_quotient
+from safeupto.vectors import LEAST, extend, is_there, next_head, step_back, trail_in
 
-# Less than each sum of a walk, also if anything that a walk can have is added to it.
-LEAST = -(1 << 1000)
-
-
-def is_there(worth):
-    """Whether a worth is that of a walk."""
-    return worth + worth > LEAST
-
-
-def step_back(rows, vector):
-    """The greatest sums with one hop more."""
-    return [max([weight + vector[target] for target, weight in row], default=LEAST) for row in rows]
-
-
-def extend(vectors, rows, many):
-    """Makes the list of vectors, one for each number of hops, as long as this."""
-    while len(vectors) < many:
-        vectors.append(step_back(rows, vectors[-1]))
+# Up to here each number of hops is looked at by itself.
+SOON = 3
 
 
 class Stage:
@@ -64,14 +51,6 @@ class Stage:
         return [(offset, period, best[offset], self.gain) for offset in best]
 
 
-def next_head(row, worth, vector):
-    """The first head to which a hop leads such that the sum there is what is left of this worth."""
-    for target, weight in row:
-        if weight + vector[target] == worth:
-            return target
-    return None
-
-
 def touched(ring, width, alls, others):
     """The greatest sums of walks that touch the ring, from its own heads all of them."""
     found = list(others)
@@ -89,6 +68,8 @@ class Tails:
         self.vectors = [[LEAST if last is None else last for last in lasts]]
         self._width = width
         self._layers = len(rows) // width
+        self._looked = False
+        self._found = None
         self.stages = None
         self._final = None
 
@@ -107,10 +88,31 @@ class Tails:
         vectors = self.upto(many)
         return [vector[at] if is_there(vector[at]) else None for vector in vectors[:many]]
 
+    def pattern(self):
+        """The pattern in which the sums rise, or None if it does not begin soon."""
+        if not self._looked:
+            self._looked = True
+            self._found = pattern_of(self.vectors, self.rows, 2 * self._width + 6)
+        return self._found
+
+    def greatest(self, at, count):
+        """The greatest sum from a head for a count; None if there is no walk."""
+        found = self.pattern() if count >= SOON else None
+        if count < SOON or (found is not None and count < found.first):
+            return self.sum_for(at, count)
+        return value_at(self.staged_growth(at), count) if found is None else found.sum_for(at, count)
+
     def growth(self, at, endless):
         """The tuple (firsts, stairs, endless) of the greatest sums from a head, as in formulas."""
         if endless is not None:
             return (self.early(at, endless), [], endless)
+        found = self.pattern()
+        if found is not None:
+            return (self.early(at, found.first), found.stairs_from(at), None)
+        return self.staged_growth(at)
+
+    def staged_growth(self, at):
+        """The same, told by the stages, if none of the sums is endless: each gain is that of a ring."""
         many, stairs = self.length(), []
         for stage in self.stages:
             stairs.extend(stage.told_from(at))
@@ -119,17 +121,13 @@ class Tails:
         return (self.early(at, many), stairs, None)
 
     def length(self):
-        """From how many hops on the stairs tell the greatest sums."""
+        """From how many hops on the stairs of the stages tell the greatest sums."""
         self.settle()
         return max([len(stage.touching) for stage in self.stages] + [self._width * self._layers + 1])
 
     def trail(self, at, count):
-        """The list of the heads behind this one on a greatest walk with so many hops, for which vectors were made."""
-        found, vectors = [], self.upto(count)
-        for left in range(count, 0, -1):
-            at = next_head(self.rows[at], vectors[left][at], vectors[left - 1])
-            found.append(at)
-        return found
+        """The list of the heads behind this one on a greatest walk with so many hops, which are few."""
+        return trail_in(self.rows, self.upto(count), at, count)
 
     def settle(self):
         """Finds the stages, once."""

@@ -2,7 +2,8 @@
 
 from safeupto.rings import totals, turned
 from safeupto.shortruns import Rules
-from safeupto.tails import is_there
+from safeupto.tails import SOON
+from safeupto.vectors import is_there
 
 
 def breaking_rules(reckoning, most):
@@ -18,21 +19,21 @@ def breaking_rules(reckoning, most):
     else:
         Trail(reckoning, rules).lay(at, count, most - net.entries[head])
     if len(rules.rules) == 0:
-        return [("walk", net.spots[head], ())]
+        return [("walk", net.node(head), ())]
     return rules.rules
 
 
 def around_gaining(hops, rules, at, most):
     """Makes the rules of a walk through a ring that gains and counts nothing, with a sum greater than most."""
     ahead, node = hops.to_ring(at)
-    behind = hops.from_ring(node)
+    behind, last = hops.from_ring(node)
     ring = turned(hops.moves, hops.rings[node], node)
     gain, _ = totals(hops.moves, ring)
     rest = most - totals(hops.moves, [*ahead, *behind])[0]
     found = rules.walk(ahead)
     if rest >= 0:
         found = rules.joined(found, rules.repeated(rules.walk(ring), rest // gain + 1))
-    rules.joined(found, rules.walk(behind))
+    rules.joined(found, rules.ending(behind, last))
 
 
 class Trail:
@@ -47,10 +48,18 @@ class Trail:
     def lay(self, at, count, most):
         """Makes the rules of a walk from a head with at most such a count and a sum greater than most."""
         tails = self._tails
-        if count < len(tails.vectors):
+        pattern = tails.pattern() if count >= SOON else None
+        if pattern is not None:
+            heads, ring, times = pattern.route(at, count)
+            self._go([at, *heads], ring, times)
+        elif count < SOON or count < tails.length():
             self._go([at, *tails.trail(at, count)], [], 0)
-            return
-        for stage in tails.stages:
+        else:
+            self._lay_staged(at, count, most)
+
+    def _lay_staged(self, at, count, most):
+        """The same for a count for which the stages tell the greatest sums."""
+        for stage in self._tails.stages:
             period = len(stage.ring)
             for short in range(count % period, len(stage.touching), period):
                 worth, times = stage.touching[short][at], (count - short) // period
@@ -69,7 +78,8 @@ class Trail:
                 around = self._around([*ring[turn:], *ring[:turn], at])
                 found = self._rules.joined(found, self._rules.repeated(around, times))
                 times = 0
-        self._rules.joined(found, self._rules.walk(self._hops.finish(heads[-1])))
+        walk, last = self._hops.finish(heads[-1])
+        self._rules.joined(found, self._rules.ending(walk, last))
 
     def _around(self, heads):
         found = None

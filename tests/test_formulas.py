@@ -225,7 +225,7 @@ class OfPrograms(Case):
                 self.assertEqual(found(most), limit(program, with_most(condition, most), size))
             seen["endless"] += found.endless is not None
             seen["stairs"] += any(gain > 0 for _, _, _, gain in found.stairs)
-            seen["late"] += len({stair[1] for stair in found.stairs}) > 1
+            seen["late"] += len(found.firsts) > 3 or any(period > 1 for _, period, _, _ in found.stairs)
         self.assertGreater(min(seen.values()), 5)
 
     def test_better_behind_a_loss(self):
