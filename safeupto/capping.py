@@ -4,7 +4,7 @@ What a walk makes of a value is the least of value + sum and a bound. So a ring 
 along it: the value behind the capped move that gives this bound becomes its cap, and no more. Or it goes up for ever.
 """
 
-from safeupto.rings import ring_back, rings_among
+from safeupto.rings import rings_among
 from safeupto.shortruns import Rules
 
 # Greater than each sum of a walk, and less.

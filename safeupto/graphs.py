@@ -57,13 +57,6 @@ class Graph:
             found[source].append(index)
         return found
 
-    def edges_in(self):
-        """The list of the lists of the indices of the edges that end at each point."""
-        found = [[] for _ in range(self._many)]
-        for index, (_, target, _) in enumerate(self._edges):
-            found[target].append(index)
-        return found
-
     def _go_through(self, body, point):
         """Makes the points and edges of a body that begins at the point; returns where it ends."""
         for statement in body:

@@ -7,17 +7,19 @@ from safeupto.conditions import counts_among, points_in
 from safeupto.graphs import Graph
 
 
-def change_of(action, ranks):
-    """What an edge with this action, a set or an input, sets, and the parts of it for plus and for minus."""
-    # The last things tell what codes and masks come from; they are found when they are asked for.
+def parts_of(action):
+    """The parts of the variable that an action sets, tuples (variable or None, constant for plus, that for minus)."""
     if action[0] == "input":
-        return (ranks[action[1]], [(0, action[3])], [(0, -action[2])], {}, {})
-    parts = [(ranks[variable], constant) for variable, constant in action[2]]
-    return (ranks[action[1]], parts, [(rank, -constant) for rank, constant in parts], {}, {})
+        return [(None, action[3], -action[2])]
+    return [(variable, constant, -constant) for variable, constant in action[2]]
 
 
 class Ground:
-    """The graph of a program without parameters, and what its edges change: (rank, parts for plus, for minus ..)."""
+    """The graph of a program without parameters, and what its edges change.
+
+    The keys of changes are the edges that set a variable. A change is a tuple of its rank, the mask of the codes with
+    it, the action, and a dict in which it is kept where steps to such codes come from.
+    """
 
     def __init__(self, program):
         self.chart = Graph(program)
@@ -26,10 +28,19 @@ class Ground:
         self.ranks = {side: at for at, side in enumerate(sides)}
         self.twos = [(plus, minus) for plus in sides for minus in sides]
         self.ranges = [(0, 0), *[(low, high) for _, low, high in sorted(program.variables)]]
-        self.changes = {edge: change_of(action, self.ranks) for edge, (_, _, action) in enumerate(self.chart.edges)
+        touched = {name: (self.ranks[name], self._mask_with(self.ranks[name])) for name in program.names}
+        self.changes = {edge: (*touched[action[1]], action, {}) for edge, (_, _, action) in enumerate(self.chart.edges)
                         if action is not None and (action[0] == "set" or action[0] == "input")}
         self._codes = {}
         self._into = {}
+
+    def _mask_with(self, rank):
+        """The mask of the codes with a variable as plus or as minus."""
+        sides = self.sides
+        found = ((1 << sides) - 1) << rank * sides
+        for plus in range(sides):
+            found = found | 1 << plus * sides + rank
+        return found
 
     def code_of(self, plus, minus):
         """The code of plus and minus, which are names or None."""
@@ -64,18 +75,18 @@ class Ground:
         return found
 
     def origins(self, change, code):
-        """The list of the tuples (code ahead, weight) of the steps along an edge with this change to a code."""
+        """The list of the tuples (code ahead, weight) of the steps along an edge to a code that its change sets."""
         found = change[3].get(code)
         if found is None:
-            sides = self.sides
+            sides, ranks = self.sides, self.ranks
             plus, minus = divmod(code, sides)
             # A variable minus itself is None minus None.
             if plus == change[0]:
-                found = [(0 if was == minus else was * sides + minus, weight) for was, weight in change[1]]
-            elif minus == change[0]:
-                found = [(0 if was == plus else plus * sides + was, weight) for was, weight in change[2]]
+                parts = [(ranks[variable], up) for variable, up, _ in parts_of(change[2])]
+                found = [(0 if was == minus else was * sides + minus, up) for was, up in parts]
             else:
-                found = [(code, 0)]
+                parts = [(ranks[variable], down) for variable, _, down in parts_of(change[2])]
+                found = [(0 if was == plus else plus * sides + was, down) for was, down in parts]
             change[3][code] = found
         return found
 
@@ -103,13 +114,11 @@ class Ground:
 
     def ahead(self, change, mask):
         """The mask of the codes from which steps along an edge with this change lead to codes of a mask."""
-        found = change[4].get(mask)
-        if found is None:
-            found = 0
-            for code in self.codes_in(mask):
+        found = mask & ~change[1]
+        if found != mask:
+            for code in self.codes_in(mask & change[1]):
                 for was, _ in self.origins(change, code):
                     found = found | 1 << was
-            change[4][mask] = found
         return found
 
     def places_in(self, masks):
@@ -172,7 +181,7 @@ class Net:
             first, last, counted = source * width, target * width, counts[edge]
             for code in ground.codes_in(masks[target]):
                 at = index[last + code]
-                if change is None:
+                if change is None or change[1] >> code & 1 == 0:
                     moves.append((index[first + code], edge, at, 0, counted))
                 else:
                     for was, weight in ground.origins(change, code):

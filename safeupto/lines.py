@@ -73,7 +73,7 @@ def corners(program, condition, size):
         return None
     # Above the rate a walk that is best comes to no head twice.
     reckoning = reckoning_of(net, MOST_HEADS)
-    points = [(count, reckoning.early_value(count)) for count in range(len(heads))]
+    points = [(count, reckoning.value_for(count)) for count in range(len(heads))]
     p, q = quotient
     found = []
     for count, value in [(count, value) for count, value in points if value is not None]:

@@ -1,55 +1,42 @@
 """Bounds for walks with many counted steps, made by joining walks of half as many."""
 
-from safeupto.vectors import LEAST, is_there
+# Greater than each sum of a walk, also if anything that a walk can have is taken from it.
+ENDLESS = 1 << 1000
 
 
-def product(first, second):
-    """The greatest sums of a walk told by the first matrix and one told by the second, from where it ended."""
-    columns = list(zip(*second))
-    return [[max([one + other for one, other in zip(row, column)]) for column in columns] for row in first]
-
-
-def product_of_marks(here, endless):
-    """From where walks are endless that are two behind each other, told by what is there and what is endless."""
-    return [[any([(one and far) or (gone and known) for one, gone, far, known in zip(row, marks, column, others)])
-             for column, others in zip(list(zip(*endless)), list(zip(*here)))]
-            for row, marks in zip(here, endless)]
+def bound_of(worth):
+    """The bound that a worth stands for."""
+    return "endless" if worth + worth > ENDLESS else worth
 
 
 def bounds_for(reckoning, most):
     """The tuple (zero, levels) of the least bounds for a count."""
-    net, heads, hops = reckoning.net, reckoning.heads, reckoning.hops
-    nodes = [net.node(head) for head in heads]
-    far = [endless_from(hops, head) for head in heads]
-    zero, pairs = {}, net.ground.twos
-    places = [((point, *pairs[code]), net.at(point, code)) for point, code in net.all_places()]
-    for at, head in enumerate(nodes):
-        for node, index in places:
-            if far[at][index]:
-                zero[(head, node)] = "endless"
-            elif at in hops.reaches[index]:
-                zero[(head, node)] = hops.reaches[index][at]
-    finite, endless = first_level(hops, far)
-    levels = []
+    net, hops = reckoning.net, reckoning.hops
+    nodes, twos, reaches = [net.node(head) for head in reckoning.heads], net.ground.twos, reaches_with_rings(hops)
+    zero = {}
+    for point, code in net.all_places():
+        node = (point, *twos[code])
+        for at, worth in reaches[net.at(point, code)].items():
+            zero[(nodes[at], node)] = bound_of(worth)
+    levels, rows = [], first_rows(hops, reaches)
     while len(levels) < most.bit_length():
-        levels.append(level_of(nodes, finite, endless))
+        levels.append({(node, nodes[at]): bound_of(row[at]) for node, row in zip(nodes, rows) for at in row})
         if len(levels) < most.bit_length():
-            if any([any(marks) for marks in endless]):
-                here = [[mark or is_there(worth) for mark, worth in zip(marks, row)]
-                        for marks, row in zip(endless, finite)]
-                endless = product_of_marks(here, endless)
-            finite = product(finite, finite)
+            rows = [joined_row(row, rows) for row in rows]
     return zero, levels
 
 
-def endless_from(hops, head):
-    """The list that tells to which nodes walks from a head that count nothing are endless."""
-    marks = [False] * hops.many
-    if len(hops.rings) > 0:
-        outs = outs_uncounted(hops)
+def reaches_with_rings(hops):
+    """For each node the dict from heads, by their places, to the greatest sums of walks that count nothing."""
+    if len(hops.rings) == 0:
+        return hops.reaches
+    found, outs = [{at: table[at] for at in table} for table in hops.reaches], outs_uncounted(hops)
+    for at, head in enumerate(hops.heads):
         reached = come_to(outs, [head])
-        marks = come_to(outs, [node for node in hops.rings if reached[node]])
-    return marks
+        for node, mark in enumerate(come_to(outs, [node for node in hops.rings if reached[node]])):
+            if mark:
+                found[node][at] = ENDLESS
+    return found
 
 
 def outs_uncounted(hops):
@@ -75,27 +62,24 @@ def come_to(outs, seeds):
     return marks
 
 
-def first_level(hops, far):
-    """The greatest sums from head to head with at most one counted step, and where they are endless."""
-    heads = hops.heads
-    finite = [[0 if first == second else LEAST for second in heads] for first in heads]
-    endless = [[False for _ in heads] for _ in heads]
+def first_rows(hops, reaches):
+    """For each head the dict from heads to the greatest sums of walks with at most one counted step."""
+    rows = [{at: 0} for at in range(len(hops.heads))]
     for source, target, weight, _ in hops.counted:
-        for at, marks in enumerate(far):
-            if marks[source]:
-                endless[at][target] = True
-            elif at in hops.reaches[source]:
-                finite[at][target] = max(finite[at][target], hops.reaches[source][at] + weight)
-    return finite, endless
+        for at, reach in reaches[source].items():
+            row, worth = rows[at], reach + weight
+            if target not in row or row[target] < worth:
+                row[target] = worth
+    return rows
 
 
-def level_of(nodes, finite, endless):
-    """The bounds of a level, a dict from tuples of two heads."""
+def joined_row(row, rows):
+    """The greatest sums of a walk told by a row and one told by the rows, from where it ended."""
     found = {}
-    for at, node in enumerate(nodes):
-        for index, other in enumerate(nodes):
-            if endless[at][index]:
-                found[(node, other)] = "endless"
-            elif is_there(finite[at][index]):
-                found[(node, other)] = finite[at][index]
+    for middle, worth in row.items():
+        for last, more in rows[middle].items():
+            both = worth + more
+            if last not in found or found[last] < both:
+                # What is endless stays as it is, and does not become greater and greater.
+                found[last] = ENDLESS if both + both > ENDLESS else both
     return found

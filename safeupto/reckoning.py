@@ -48,11 +48,6 @@ class Reckoning:
                 found = (count, at)
         return found
 
-    def early_value(self, count):
-        """The greatest value for a small count if none is endless: an integer or None."""
-        values = [(start, self.tails.sum_for(at, count)) for at, start in self.begins()]
-        return max([start + value for start, value in values if value is not None], default=None)
-
     def value_for(self, count):
         """The greatest value for a count: an integer, None or "endless"."""
         values = []

@@ -49,21 +49,33 @@ class Judge:
         _, first, steps = value
         if not self._is_node(first) or not isinstance(steps, tuple):
             return None
-        edges, counts, caps = self._edges, self._counts, self._caps
-        node, total, count, cap = first, 0, 0, None
+        edges, changes, counts, caps = self._edges, self._changes, self._counts, self._caps
+        point, plus, minus = first
+        total, count, cap = 0, 0, None
         for step in steps:
-            weight = self._weight(node, step)
-            if weight is None:
+            if not isinstance(step, tuple) or len(step) != 3:
                 return None
-            edge = step[0]
-            node = (edges[edge][1], step[1], step[2])
-            if weight != 0:
-                total = total + weight
-                cap = None if cap is None else cap + weight
-            count = count + counts[edge]
-            if edge in caps and caps[edge][0] == step[1]:
+            edge, next_plus, next_minus = step
+            if not isinstance(edge, int) or isinstance(edge, bool) or not 0 <= edge < len(edges):
+                return None
+            if not (next_plus is None or isinstance(next_plus, str)):
+                return None
+            if not (next_minus is None or isinstance(next_minus, str)):
+                return None
+            source, target, _ = edges[edge]
+            if source != point:
+                return None
+            if edge in changes:
+                weight = self._weight(changes[edge], plus, minus, next_plus, next_minus)
+                if weight is None:
+                    return None
+                total, cap = total + weight, None if cap is None else cap + weight
+            elif next_plus != plus or next_minus != minus:
+                return None
+            point, plus, minus, count = target, next_plus, next_minus, count + counts[edge]
+            if edge in caps and caps[edge][0] == plus:
                 cap = least_of(cap, caps[edge][1])
-        return (first, node, total, count, len(steps), cap)
+        return (first, (point, plus, minus), total, count, len(steps), cap)
 
     def _is_node(self, value):
         if not isinstance(value, tuple) or len(value) != 3 or not is_integer(value[0]):
@@ -76,31 +88,18 @@ class Judge:
             return False
         return plus in self._ranks and minus in self._ranks and (plus is None or plus != minus)
 
-    def _weight(self, node, step):
-        """The weight of a step from a node; None if it is none."""
-        if not isinstance(step, tuple) or len(step) != 3:
-            return None
-        edge, plus, minus = step
-        if not isinstance(edge, int) or isinstance(edge, bool) or not 0 <= edge < len(self._edges):
-            return None
-        point, was_plus, was_minus = node
-        if self._edges[edge][0] != point:
-            return None
-        if edge not in self._changes:
-            return 0 if is_same(plus, was_plus) and is_same(minus, was_minus) else None
+    def _weight(self, change, was_plus, was_minus, plus, minus):
+        """The weight of a step along an edge with this change; None if it is none."""
         if not self._are_sides(plus, minus):
             return None
         ground = self._ground
-        code = ground.code_of(was_plus, was_minus)
-        for was, weight in ground.origins(self._changes[edge], ground.code_of(plus, minus)):
-            if was == code:
+        code, was_code = ground.code_of(plus, minus), ground.code_of(was_plus, was_minus)
+        if change[1] >> code & 1 == 0:
+            return 0 if code == was_code else None
+        for was, weight in ground.origins(change, code):
+            if was == was_code:
                 return weight
         return None
-
-
-def is_same(side, other):
-    """Whether any value is the same as one that is a name or None."""
-    return side is None if other is None else isinstance(side, str) and side == other
 
 
 def both(first, second, earlier):
