@@ -3,7 +3,7 @@
 from safeupto.conditions import is_condition_in, is_size
 from safeupto.errors import (InvalidCondition, InvalidPaper, InvalidProgram, InvalidSize, NothingToRedo, NothingToUndo,
                              SafeError, TooMany)
-from safeupto.graphs import Graph
+from safeupto.graphs import graph_of
 from safeupto.guards import is_broken_by, is_capped_heights
 from safeupto.kinds import is_row
 from safeupto.limits import is_breaking, limit
@@ -41,13 +41,13 @@ def is_recognized(program, word, value):
 
 def is_paper(program, value):
     """Whether the value is a paper that the program accepts."""
-    Graph(program)
+    graph_of(program)
     return is_accepted(program, value)
 
 
 def kept(program, papers):
     """The list that tells which of these papers the program accepts."""
-    Graph(program)
+    graph_of(program)
     if not is_row(papers):
         raise InvalidPaper(papers)
     return [is_accepted(program, paper) for paper in papers]
@@ -58,7 +58,7 @@ def moved(first, second, conditions, size):
     for program in (first, second):
         if not is_plain(program):
             raise InvalidProgram(program)
-    graphs = [(program, Graph(program)) for program in (first, second)]
+    graphs = [(program, graph_of(program)) for program in (first, second)]
     if not is_row(conditions):
         raise InvalidCondition(conditions)
     for condition in conditions:

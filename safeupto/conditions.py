@@ -1,13 +1,13 @@
 """Conditions, and the sizes of runs."""
 
 from safeupto.errors import InvalidCondition, InvalidSize
-from safeupto.graphs import Graph
+from safeupto.graphs import graph_of
 from safeupto.kinds import is_integer, is_name, is_number
 
 
 def is_condition(program, value):
     """Whether the value is a condition for the program."""
-    return is_condition_in(program, Graph(program), value)
+    return is_condition_in(program, graph_of(program), value)
 
 
 def is_condition_in(program, graph, value):

@@ -3,7 +3,7 @@
 from safeupto.conditions import is_size
 from safeupto.errors import InvalidCommand, InvalidSize
 from safeupto.formats import parse_program
-from safeupto.graphs import Graph
+from safeupto.graphs import graph_of
 from safeupto.guards import least_guards
 from safeupto.limits import limit
 from safeupto.rates import rate
@@ -67,7 +67,7 @@ class Console:
         """The answer to a command without a condition."""
         if words[0] == "safe":
             return limit_word(safe_up_to(self._program, self._counted).size)
-        graph = Graph(self._program)
+        graph = graph_of(self._program)
         if words[0] == "points":
             return str(graph.points)
         size = read_size(words[1], words[2])

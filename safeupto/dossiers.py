@@ -4,7 +4,7 @@ from safeupto.certificates import is_shown, program_lines
 from safeupto.conditions import is_size
 from safeupto.errors import InvalidSize, TooMany
 from safeupto.formats import program_of
-from safeupto.graphs import Graph
+from safeupto.graphs import graph_of
 from safeupto.kinds import GREATEST
 from safeupto.limits import Limit, breaking
 from safeupto.paperlines import PaperReader
@@ -46,7 +46,7 @@ def judge(text):
         papers.append(reader.next_paper())
     reader.finish()
     program = program_of(told)
-    Graph(program)
+    graph_of(program)
     if not is_size(program, size):
         raise InvalidSize(size)
     # All of them are looked at, as one that is not asked for can be wrong, too.

@@ -6,6 +6,14 @@ from safeupto.programs import is_plain
 MOST_POINTS = 150
 
 
+def graph_of(program):
+    """The graph of a program, which is made once; raises its errors."""
+    if not is_plain(program):
+        raise InvalidProgram(program)
+    found = program.recalled("graph")
+    return program.remember("graph", Graph(program)) if found is None else found
+
+
 class Graph:
     """The points and edges of a program without parameters."""
 
@@ -18,6 +26,7 @@ class Graph:
         self._places = {}
         # The points to which two edges lead.
         self._joints = {}
+        self._out = []
         self._end = self._go_through(program.main, 0)
         self._edges = tuple(self._made)
 
@@ -51,11 +60,12 @@ class Graph:
         return self._joints
 
     def edges_out(self):
-        """The list of the lists of the indices of the edges that begin at each point."""
-        found = [[] for _ in range(self._many)]
-        for index, (source, _, _) in enumerate(self._edges):
-            found[source].append(index)
-        return found
+        """The list of the lists of the indices of the edges that begin at each point, which is not to be changed."""
+        if len(self._out) == 0:
+            self._out = [[] for _ in range(self._many)]
+            for index, (source, _, _) in enumerate(self._edges):
+                self._out[source].append(index)
+        return self._out
 
     def _go_through(self, body, point):
         """Makes the points and edges of a body that begins at the point; returns where it ends."""

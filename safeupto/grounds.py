@@ -4,7 +4,7 @@ A variable has a rank: 0 is None, the names follow in their order. The code of p
 """
 
 from safeupto.conditions import counts_among, points_in
-from safeupto.graphs import Graph
+from safeupto.graphs import graph_of
 
 
 def parts_of(action):
@@ -22,7 +22,7 @@ class Ground:
     """
 
     def __init__(self, program):
-        self.chart = Graph(program)
+        self.chart = graph_of(program)
         sides = [None, *sorted(program.names)]
         self.sides = len(sides)
         self.ranks = {side: at for at, side in enumerate(sides)}

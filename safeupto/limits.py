@@ -82,7 +82,7 @@ def as_run(program, condition, value):
     _, plus, _ = told[-1][0]
     numbers = tuple([high if name == plus else low for name, low, high in program.variables])
     choices = [(step[0], number_for(ground.chart.edges[step[0]][2], step)) for step in steps_of(value, told)]
-    return Run(Machine(program), numbers, choices)
+    return Run(Machine(program), numbers, ()).along(choices)
 
 
 def steps_of(rules, told):

@@ -1,7 +1,7 @@
 """States, the machine that goes from one to the next, and its runs."""
 
 from safeupto.errors import InvalidChoice, InvalidName, InvalidNumber, InvalidState
-from safeupto.graphs import Graph
+from safeupto.graphs import graph_of
 from safeupto.kinds import is_integer, is_name, is_row, is_within
 
 MOST_CHOICES = 100
@@ -61,7 +61,7 @@ class Machine:
     """Goes along the edges of a program, in which some guards are chosen."""
 
     def __init__(self, program, *, guards=()):
-        self._graph = Graph(program)
+        self._graph = graph_of(program)
         if not are_guards(guards, program):
             raise InvalidName(guards)
         self._program = program
@@ -70,6 +70,9 @@ class Machine:
         self._names = program.names
         self._edges = self._graph.edges
         self._out = self._graph.edges_out()
+        # The actions of the edges that change numbers.
+        self._effects = {index: action for index, (_, _, action) in enumerate(self._edges) if action is not None and (
+            action[0] == "set" or action[0] == "input" or action[0] == "guard" and action[1] in self._guards)}
 
     @property
     def program(self):
@@ -123,21 +126,26 @@ class Machine:
         index, number = choice
         if not isinstance(index, int) or isinstance(index, bool) or index not in self._out[point]:
             raise InvalidChoice(choice)
-        _, target, action = self._edges[index]
-        word = None if action is None else action[0]
-        if word == "input":
+        action = self._effects.get(index)
+        if action is not None and action[0] == "input":
             if not is_within(number, action[2], action[3]):
                 raise InvalidChoice(choice)
-            return State(target, with_number(numbers, self._names.index(action[1]), number))
-        if number is not None:
+        elif number is not None:
             raise InvalidChoice(choice)
-        if word == "set":
+        return self.after(numbers, index, number)
+
+    def after(self, numbers, index, number):
+        """The state behind a choice, an edge and a number, at a point with these numbers; all is known to be right."""
+        target, action = self._edges[index][1], self._effects.get(index)
+        if action is None:
+            return State(target, numbers)
+        if action[0] == "set":
             worth = greatest_part(action[2], self._names, numbers)
             return State(target, with_number(numbers, self._names.index(action[1]), worth))
-        if word == "guard" and action[1] in self._guards:
-            at = self._names.index(action[2])
-            return State(target, with_number(numbers, at, min(numbers[at], action[3])))
-        return State(target, numbers)
+        if action[0] == "input":
+            return State(target, with_number(numbers, self._names.index(action[1]), number))
+        at = self._names.index(action[2])
+        return State(target, with_number(numbers, at, min(numbers[at], action[3])))
 
 
 class Run:
@@ -184,6 +192,18 @@ class Run:
         longer._states = self._states
         longer._choices = self._choices
         longer._go_on(choices)
+        return longer
+
+    def along(self, choices):
+        """The run that goes on with a list of choices that are known to be possible."""
+        longer = self.more(())
+        machine, numbers, states = self._machine, self._states[-1].numbers, []
+        for index, number in choices:
+            state = machine.after(numbers, index, number)
+            numbers = state.numbers
+            states.append(state)
+        longer._states = longer._states + tuple(states)
+        longer._choices = longer._choices + tuple(choices)
         return longer
 
     def _go_on(self, choices):

@@ -47,8 +47,8 @@ def shortest_break(machine, condition, most):
                 return Run(machine, numbers, made)
         if length < most:
             # In order, the runs with one choice more are in order, too.
-            level = [(numbers, (*made, choice), machine.behind(state.point, state.numbers, choice))
-                     for numbers, made, state in level for choice in choices[state.point]]
+            level = [(numbers, (*made, (index, number)), machine.after(state.numbers, index, number))
+                     for numbers, made, state in level for index, number in choices[state.point]]
     return None
 
 
@@ -65,9 +65,9 @@ def least_counts(machine, size, most):
             # Who was there before with no greater count can still do all that can be done from here.
             if known is None or known > count:
                 found[point][numbers] = count
-                for choice in choices[point]:
-                    state = machine.behind(point, numbers, choice)
-                    behind.append((state.point, state.numbers, count + counts[choice[0]]))
+                for index, number in choices[point]:
+                    state = machine.after(numbers, index, number)
+                    behind.append((state.point, state.numbers, count + counts[index]))
         level = behind
     return found
 

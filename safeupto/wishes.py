@@ -2,7 +2,7 @@
 
 from safeupto.conditions import is_size
 from safeupto.errors import InvalidSize
-from safeupto.graphs import Graph
+from safeupto.graphs import graph_of
 from safeupto.limits import Limit, limit
 from safeupto.nets import node_order
 
@@ -41,7 +41,7 @@ def wished_in(program, graph):
 
 def wished(program):
     """The sorted list of the wished conditions of a program."""
-    return wished_in(program, Graph(program))
+    return wished_in(program, graph_of(program))
 
 
 def limits_of(program, size):
