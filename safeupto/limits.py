@@ -81,20 +81,24 @@ def as_run(program, condition, value):
         raise TooMany(MOST_STEPS)
     _, plus, _ = told[-1][0]
     numbers = tuple([high if name == plus else low for name, low, high in program.variables])
-    choices = [(step[0], number_for(ground.chart.edges[step[0]][2], step)) for step in steps_of(value, told)]
-    return Run(Machine(program), numbers, ()).along(choices)
+    return Run(Machine(program), numbers, ()).along(choices_of(ground, value, told))
 
 
-def steps_of(rules, told):
-    """The list of the steps of the last of these rules."""
+def choices_of(ground, rules, told):
+    """The list of the choices along the last of these rules."""
+    # A walk can be gone many times, so what to choose along it is found once.
+    edges = ground.chart.edges
+    known = {at: [(step[0], number_for(edges[step[0]][2], step)) for step in rule[2]]
+             for at, rule in enumerate(rules) if rule[0] == "walk"}
     found, waiting = [], [len(rules) - 1]
     while len(waiting) > 0:
-        word, first, second = rules[waiting.pop()]
+        at = waiting.pop()
+        word, first, second = rules[at]
         if word == "walk":
-            found.extend(second)
+            found.extend(known[at])
         else:
             # What has no steps is let be: it can be joined more often than can be counted.
-            waiting.extend([at for at in (second, first) if told[at][4] > 0])
+            waiting.extend([one for one in (second, first) if told[one][4] > 0])
     return found
 
 

@@ -136,16 +136,28 @@ class Machine:
 
     def after(self, numbers, index, number):
         """The state behind a choice, an edge and a number, at a point with these numbers; all is known to be right."""
-        target, action = self._edges[index][1], self._effects.get(index)
-        if action is None:
-            return State(target, numbers)
+        if index in self._effects:
+            numbers = self._changed(numbers, self._effects[index], number)
+        return State(self._edges[index][1], numbers)
+
+    def states_along(self, numbers, choices):
+        """The list of the states behind choices from a point with these numbers; all is known to be right."""
+        edges, effects, found = self._edges, self._effects, []
+        for index, number in choices:
+            if index in effects:
+                numbers = self._changed(numbers, effects[index], number)
+            found.append(State(edges[index][1], numbers))
+        return found
+
+    def _changed(self, numbers, action, number):
+        """The numbers behind an edge with this action, which changes them."""
         if action[0] == "set":
             worth = greatest_part(action[2], self._names, numbers)
-            return State(target, with_number(numbers, self._names.index(action[1]), worth))
+            return with_number(numbers, self._names.index(action[1]), worth)
         if action[0] == "input":
-            return State(target, with_number(numbers, self._names.index(action[1]), number))
+            return with_number(numbers, self._names.index(action[1]), number)
         at = self._names.index(action[2])
-        return State(target, with_number(numbers, at, min(numbers[at], action[3])))
+        return with_number(numbers, at, min(numbers[at], action[3]))
 
 
 class Run:
@@ -197,13 +209,8 @@ class Run:
     def along(self, choices):
         """The run that goes on with a list of choices that are known to be possible."""
         longer = self.more(())
-        machine, numbers, states = self._machine, self._states[-1].numbers, []
-        for index, number in choices:
-            state = machine.after(numbers, index, number)
-            numbers = state.numbers
-            states.append(state)
-        longer._states = longer._states + tuple(states)
-        longer._choices = longer._choices + tuple(choices)
+        longer._states = (*self._states, *self._machine.states_along(self._states[-1].numbers, choices))
+        longer._choices = (*self._choices, *choices)
         return longer
 
     def _go_on(self, choices):

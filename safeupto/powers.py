@@ -30,7 +30,7 @@ def reaches_with_rings(hops):
     """For each node the dict from heads, by their places, to the greatest sums of walks that count nothing."""
     if len(hops.rings) == 0:
         return hops.reaches
-    found, outs = [{at: table[at] for at in table} for table in hops.reaches], outs_uncounted(hops)
+    found, outs = [dict(table) for table in hops.reaches], outs_uncounted(hops)
     for at, head in enumerate(hops.heads):
         reached = come_to(outs, [head])
         for node, mark in enumerate(come_to(outs, [node for node in hops.rings if reached[node]])):

@@ -34,12 +34,12 @@ class Reckoning:
 
     def break_above(self, most):
         """The first count for which the greatest value is greater than most, and the head it is from, or None."""
-        begins = self.begins()
+        begins, vectors = self.begins(), self.tails.upto(SOON - 1)
         # Where it is at once, it is not asked how the values grow.
         for count in range(SOON):
             for at, start in begins:
-                value = self.tails.sum_for(at, count)
-                if self.hops.least_endless(at) == count or (value is not None and start + value > most):
+                # Where there is no walk, the sum is less than anything.
+                if start + vectors[count][at] > most or self.hops.least_endless(at) == count:
                     return (count, at)
         found = None
         for at, start in begins:

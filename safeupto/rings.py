@@ -10,6 +10,10 @@ from math import gcd
 def outs_along(many, moves, p, q):
     """What leads out, for the weights q times the weight, minus p if the move is counted."""
     outs = [[] for _ in range(many)]
+    if p == 0 and q == 1:
+        for index, (source, _, target, weight, _) in enumerate(moves):
+            outs[source].append((target, weight, index))
+        return outs
     for index, (source, _, target, weight, counted) in enumerate(moves):
         outs[source].append((target, q * weight - p * counted, index))
     return outs

@@ -29,24 +29,26 @@ class Judge:
             return None
         found = []
         for rule in value:
-            told = self._told(rule, found)
+            if not isinstance(rule, tuple) or len(rule) != 3 or not isinstance(rule[0], str):
+                return None
+            word, first, second = rule
+            if word == "both":
+                told = both(first, second, found)
+            else:
+                told = self._along(first, second) if word == "walk" else None
             if told is None:
                 return None
             found.append(told)
         return found
 
-    def _told(self, rule, earlier):
-        if not isinstance(rule, tuple) or len(rule) != 3 or not isinstance(rule[0], str):
-            return None
-        if rule[0] == "walk":
-            return self.walk(rule)
-        return both(rule[1], rule[2], earlier) if rule[0] == "both" else None
-
     def walk(self, value):
         """What a rule with a walk tells; None if it is none."""
         if not isinstance(value, tuple) or len(value) != 3 or not isinstance(value[0], str) or value[0] != "walk":
             return None
-        _, first, steps = value
+        return self._along(value[1], value[2])
+
+    def _along(self, first, steps):
+        """What a walk tells that begins with a node; None if it is none."""
         if not self._is_node(first) or not isinstance(steps, tuple):
             return None
         edges, changes, counts, caps = self._edges, self._changes, self._counts, self._caps
