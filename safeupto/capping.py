@@ -81,11 +81,19 @@ class Ceilings:
 
     def greatest(self):
         """The greatest value at the end nodes: an integer or ENDLESS."""
-        return max([self.worths[at] for at in self._net.exits])
+        return self.worths[self._greatest_end()]
+
+    def _greatest_end(self):
+        """The first end node with the greatest value."""
+        return max(self._net.exits, key=lambda at: self.worths[at])
+
+    def moves_to_greatest(self):
+        """The list of the indices of the moves on a walk to an end node with the greatest value, and perhaps others."""
+        return [index for _, steps, _, _ in self._stories_to(self._greatest_end()) for index in steps]
 
     def breaking_rules(self, most):
         """The rules of a short run to an end node behind which the value is greater than most, as it can be."""
-        last = max(self._net.exits, key=lambda at: self.worths[at])
+        last = self._greatest_end()
         stories = self._stories_to(last)
         rules, found, walk = Rules(self._net), None, []
         value = stories[0][2]

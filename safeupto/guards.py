@@ -119,13 +119,28 @@ def choices_of(program):
 def least_choice(program, condition, choices):
     """The first one of these choices whose guards are enough; None if none is."""
     net = guarded_net(program, condition)
-    # More guards never make a value greater, so if all are not enough, none of the others are.
-    if not is_enough(program, condition, program.guards):
-        return None
+    guards = {index: net.ground.chart.edges[net.moves[index][1]][2][1] for index in caps_on(net, program.guards)}
+    # What is enough lowers each walk that was too great with others: it has a guard on it that these have not.
+    lacking = []
     for cost, names in choices:
-        if Ceilings(net, caps_on(net, names)).greatest() <= condition[3]:
-            return cost, names
+        if not any([are_apart(names, missed) for missed in lacking]):
+            ceilings = Ceilings(net, caps_on(net, names))
+            if ceilings.greatest() <= condition[3]:
+                return cost, names
+            met = {guards[index]: True for index in ceilings.moves_to_greatest() if index in guards}
+            missed = [name for name in met if name not in names]
+            if len(missed) == 0:
+                return None
+            lacking.append(missed)
     return None
+
+
+def are_apart(names, others):
+    """Whether none of these names is among the others."""
+    for name in others:
+        if name in names:
+            return False
+    return True
 
 
 def least_guards(program, condition):
