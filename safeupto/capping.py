@@ -41,9 +41,11 @@ class Ceilings:
         self._risen = [None] * net.many
         for at in net.entries:
             self._tell(at, None, [], net.entries[at], False)
-        while self._raise_once():
-            for ring in rings_among(self._risen):
+        raised = self._raise_once()
+        while len(raised) > 0:
+            for ring in rings_among(self._risen, raised):
                 self._go_around(ring)
+            raised = self._raise_once()
 
     def _tell(self, at, ahead, walk, worth, again):
         self.worths[at] = worth
@@ -51,8 +53,8 @@ class Ceilings:
         self._stories.append((ahead, walk, worth, again))
 
     def _raise_once(self):
-        """Raises the values along each move once, in order; returns whether moves that lead back raised some."""
-        again, worths, risen = False, self.worths, self._risen
+        """Raises the values along each move once, in order; returns the list of the nodes that moves back raised."""
+        raised, worths, risen = [], self.worths, self._risen
         for source, leads in enumerate(self._outs):
             worth = worths[source]
             if worth != NOWHERE:
@@ -61,8 +63,9 @@ class Ceilings:
                     if worths[target] < value:
                         self._tell(target, self._told[source], [index], value, False)
                         risen[target] = (source, index)
-                        again = again or target <= source
-        return again
+                        if target <= source:
+                            raised.append(target)
+        return raised
 
     def _go_around(self, ring):
         """Raises what a ring gains at once, behind the move of it that caps the most, or for ever."""

@@ -28,19 +28,19 @@ class Ground:
         self.ranks = {side: at for at, side in enumerate(sides)}
         self.twos = [(plus, minus) for plus in sides for minus in sides]
         self.ranges = [(0, 0), *[(low, high) for _, low, high in sorted(program.variables)]]
-        touched = {name: (self.ranks[name], self._mask_with(self.ranks[name])) for name in program.names}
+        touched = self._touched()
         self.changes = {edge: (*touched[action[1]], action, {}) for edge, (_, _, action) in enumerate(self.chart.edges)
                         if action is not None and (action[0] == "set" or action[0] == "input")}
         self._codes = {}
         self._into = {}
 
-    def _mask_with(self, rank):
-        """The mask of the codes with a variable as plus or as minus."""
+    def _touched(self):
+        """For each name, and None, the tuple of its rank and the mask of the codes with it as plus or as minus."""
         sides = self.sides
-        found = ((1 << sides) - 1) << rank * sides
-        for plus in range(sides):
-            found = found | 1 << plus * sides + rank
-        return found
+        row = (1 << sides) - 1
+        # A bit for each plus, all with None as minus.
+        column = sum([1 << plus * sides for plus in range(sides)])
+        return {side: (rank, row << rank * sides | column << rank) for side, rank in self.ranks.items()}
 
     def code_of(self, plus, minus):
         """The code of plus and minus, which are names or None."""
@@ -147,7 +147,7 @@ class Net:
         self.counts = counts
         # What was found out about this net, which never changes.
         self.known = {}
-        self._width = len(ground.twos)
+        self.width = len(ground.twos)
         # For each point the one that has its nodes.
         self.spots = list(range(ground.chart.points))
         edges = self._edges_kept(merged)
@@ -155,7 +155,7 @@ class Net:
         self._ends, self._masks = ends, masks
         self.stands = ground.places_in(masks)
         self.many = len(self.stands)
-        self.index = {point * self._width + code: at for at, (point, code) in enumerate(self.stands)}
+        self.index = {point * self.width + code: at for at, (point, code) in enumerate(self.stands)}
         self.moves = self._moves(edges, masks)
         self.entries = {at: ground.start_of(code) for at, code in enumerate(ground.codes_in(masks[0]))}
         # For each end node a point at which it is, as several can be at one spot.
@@ -176,7 +176,7 @@ class Net:
 
     def _moves(self, edges, masks):
         """The list of the moves, by their edges."""
-        ground, index, counts, width, moves = self.ground, self.index, self.counts, self._width, []
+        ground, index, counts, width, moves = self.ground, self.index, self.counts, self.width, []
         for source, target, change, edge in edges:
             first, last, counted = source * width, target * width, counts[edge]
             for code in ground.codes_in(masks[target]):
@@ -190,7 +190,7 @@ class Net:
 
     def at(self, point, code):
         """The index of the node with the value at a point."""
-        return self.index[self.spots[point] * self._width + code]
+        return self.index[self.spots[point] * self.width + code]
 
     def all_places(self):
         """The sorted list of the tuples (point, code) of all nodes from which steps lead to ends."""
@@ -209,7 +209,7 @@ class Net:
     def has_node(self, node):
         """Whether there is an index of a node, a tuple (point, plus, minus)."""
         point, plus, minus = node
-        return point * self._width + self.ground.code_of(plus, minus) in self.index
+        return point * self.width + self.ground.code_of(plus, minus) in self.index
 
     def node(self, at):
         """The node with an index, a tuple (point, plus, minus)."""

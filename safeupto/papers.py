@@ -23,8 +23,8 @@ def heights(program, condition):
 
 def spread(net, worths):
     """The dict from all nodes that matter to the worths of a merged net."""
-    pairs = net.ground.twos
-    return {(point, *pairs[code]): worths[net.at(point, code)] for point, code in net.all_places()}
+    twos, index, spots, width = net.ground.twos, net.index, net.spots, net.width
+    return {(point, *twos[code]): worths[index[spots[point] * width + code]] for point, code in net.all_places()}
 
 
 def is_heights(program, condition, value):

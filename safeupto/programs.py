@@ -14,7 +14,7 @@ MOST_WIDTHS = 4
 LEAST_BITS = 2
 MOST_BITS = 64
 # How much is remembered of a program: what is found out for some tens of conditions.
-MOST_REMEMBERED = 64
+MOST_REMEMBERED = 32
 # What a copy begins with: the variables of a program that is looked at quickly.
 SMALLEST = (("x", 0, 0),)
 

@@ -45,16 +45,18 @@ def settle(outs, worths):
     risen = [None] * len(worths)
     # Only what rose since it was gone through is gone through again.
     fresh = [worth is not None for worth in worths]
-    while raise_once(outs, worths, risen, fresh):
-        rings = rings_among(risen)
+    raised = raise_once(outs, worths, risen, fresh)
+    while len(raised) > 0:
+        rings = rings_among(risen, raised)
         if len(rings) > 0:
             return risen, rings
+        raised = raise_once(outs, worths, risen, fresh)
     return risen, []
 
 
 def raise_once(outs, worths, risen, fresh):
-    """Raises the worths along each move once, in order; returns whether moves that lead back raised some."""
-    again = False
+    """Raises the worths along each move once, in order; returns the list of the nodes that moves back raised."""
+    raised = []
     for source, leads in enumerate(outs):
         if fresh[source]:
             fresh[source] = False
@@ -65,21 +67,25 @@ def raise_once(outs, worths, risen, fresh):
                     worths[target] = worth + weight
                     risen[target] = (source, index)
                     fresh[target] = True
-                    again = again or target <= source
-    return again
+                    if target <= source:
+                        raised.append(target)
+    return raised
 
 
-def rings_among(risen):
-    """The list of the rings in which each node was raised by the one before; each of them gains."""
+def rings_among(risen, raised):
+    """The list of the rings in which each node was raised by the one before, found by going back from raised nodes.
+
+    Each of them gains. One that goes on to gain is found soon, as some move of it leads back and raises a node.
+    """
     marks = [None] * len(risen)
     rings = []
-    for first in range(len(risen)):
-        at = first
+    for first in raised:
+        at, met = first, 0
         while marks[at] is None and risen[at] is not None:
             marks[at] = first
-            at = risen[at][0]
-        # Whoever was marked in this very round, and can be gone back from, is on a ring.
-        if marks[at] == first and risen[at] is not None:
+            at, met = risen[at][0], met + 1
+        # Whoever was marked in this very round is on a ring.
+        if met > 0 and marks[at] == first:
             rings.append(ring_back(risen, at))
     return rings
 
