@@ -55,9 +55,9 @@ class Trail:
         elif count < SOON or count < tails.length():
             self._go([at, *tails.trail(at, count)], [], 0)
         else:
-            self._lay_staged(at, count, most)
+            self._go_staged(at, count, most)
 
-    def _lay_staged(self, at, count, most):
+    def _go_staged(self, at, count, most):
         """The same for a count for which the stages tell the greatest sums."""
         for stage in self._tails.stages:
             period = len(stage.ring)

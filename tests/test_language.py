@@ -27,6 +27,9 @@ FORBIDDEN_ATTRIBUTES = set("""
     format""".split())
 AT_ONCE = {"zip", "enumerate", "reversed", "range"}
 ITERATING = {"list", "tuple", "dict", "sorted", "sum", "any", "all", "min", "max"}
+# How no name begins, and which ones none is, also not with digits or underscores after them (L12).
+BARRED = re.compile(r"_wall|_pe_|_dcw_|_enum_|_cm_|_twin_re_|_lay_|_law_|_stub_|_sre|_WallAttr"
+                    r"|(_cold|_tuplegetter|_outside|_record|_written_out|_member_names)[0-9_]*$")
 NOT_ALLOWED = (ast.AsyncFunctionDef, ast.Global, ast.Await, ast.GeneratorExp, ast.NamedExpr, ast.AnnAssign)
 
 
@@ -165,6 +168,17 @@ class Language(unittest.TestCase):
                     self.assertNotIn("%", node.value, name)
                 if isinstance(node, ast.Name):
                     self.assertNotRegex(node.id, WORDS, name)
+
+    def test_plain_names(self):
+        for name, tree in trees():
+            found = set()
+            for node in ast.walk(tree):
+                found |= {one for one in (getattr(node, "id", None), getattr(node, "attr", None), getattr(node, "arg", None),
+                                          getattr(node, "name", None)) if isinstance(one, str)}
+            for one in found:
+                if not re.fullmatch("__[a-z]+__", one):
+                    self.assertRegex(one, r"^(_|_?[A-Za-z][A-Za-z0-9_]*)$", name)
+                    self.assertNotRegex(one, f"^({BARRED.pattern})", name)
 
     def test_warnings(self):
         with warnings.catch_warnings():
