@@ -2,7 +2,7 @@
 
 from safeupto.errors import InvalidCondition, InvalidSize
 from safeupto.graphs import graph_of
-from safeupto.kinds import is_integer, is_name, is_number
+from safeupto.kinds import is_name, is_number, is_within
 
 
 def is_condition(program, value):
@@ -15,28 +15,26 @@ def is_condition_in(program, graph, value):
     if not isinstance(value, tuple) or len(value) != 4:
         return False
     place, plus, minus, most = value
-    if not is_somewhere(graph, place) or not is_number(most):
+    if not is_number(most) or not is_somewhere(graph, place):
         return False
-    if not is_side(program, plus) or not is_side(program, minus) or plus == minus:
+    names = program.names
+    if plus is not None and (not isinstance(plus, str) or plus not in names):
         return False
-    return minus is None or program.is_single
+    if minus is None:
+        return plus is not None
+    return isinstance(minus, str) and minus in names and minus != plus and program.is_single
 
 
 def is_somewhere(graph, place):
     """Whether place is a point, or the name of a place that has one."""
-    if is_integer(place):
-        return 0 <= place < graph.points
-    return graph.has_place(place)
-
-
-def is_side(program, value):
-    """Whether the value is None or the name of a variable."""
-    return value is None or (isinstance(value, str) and value in program.names)
+    if isinstance(place, str):
+        return graph.has_place(place)
+    return is_within(place, 0, graph.points - 1)
 
 
 def points_in(graph, place):
     """The sorted list of the points of the place of a condition."""
-    return [place] if is_integer(place) else graph.points_of(place)
+    return graph.points_of(place) if isinstance(place, str) else [place]
 
 
 def is_size(program, value):

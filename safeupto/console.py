@@ -7,7 +7,7 @@ from safeupto.graphs import graph_of
 from safeupto.guards import least_guards
 from safeupto.limits import limit
 from safeupto.rates import rate
-from safeupto.reading import LONGEST_INTEGER, read_integer
+from safeupto.reading import GREATEST_WRITTEN, read_integer
 from safeupto.values import greatest
 from safeupto.wishes import safe_up_to
 from safeupto.wording import is_side_word, limit_word, read_place, read_size, side_of
@@ -33,7 +33,7 @@ def are_right(words):
 def is_right(kind, word):
     """Whether a word is of this kind."""
     if kind == "place":
-        return read_place(word, LONGEST_INTEGER) is not None
+        return read_place(word, GREATEST_WRITTEN) is not None
     return is_side_word(word) if kind == "side" else read_integer(word) is not None
 
 
@@ -57,7 +57,7 @@ class Console:
             raise InvalidCommand(line)
         if words[0] in ("size", "safe", "points"):
             return self._about_program(words)
-        place, plus = read_place(words[1], LONGEST_INTEGER), side_of(words[2])
+        place, plus = read_place(words[1], GREATEST_WRITTEN), side_of(words[2])
         if words[0] == "guards":
             found = least_guards(self._program, (place, plus, None, read_integer(words[3])))
             return "none" if found is None else " ".join([str(found[0]), *found[1]])

@@ -4,6 +4,8 @@ from safeupto.errors import InvalidName, InvalidProgram, TooMany
 from safeupto.programs import is_plain
 
 MOST_POINTS = 150
+# More choices than anybody asks for.
+FOR_EVER = 1000
 
 
 def graph_of(program):
@@ -12,6 +14,16 @@ def graph_of(program):
         raise InvalidProgram(program)
     found = program.recalled("graph")
     return program.remember("graph", Graph(program)) if found is None else found
+
+
+def ends_of(low, high):
+    """The list of the least and the greatest number of a range, each once."""
+    return [low] if low == high else [low, high]
+
+
+def numbers_for(action):
+    """The list of the numbers of choices of an edge with this action; an input gives the ends of its range."""
+    return ends_of(action[2], action[3]) if action is not None and action[0] == "input" else [None]
 
 
 class Graph:
@@ -27,6 +39,7 @@ class Graph:
         # The points to which two edges lead.
         self._joints = {}
         self._out = []
+        self._ways = []
         self._end = self._go_through(program.main, 0)
         self._edges = tuple(self._made)
 
@@ -47,13 +60,13 @@ class Graph:
 
     def points_of(self, place):
         """The sorted list of the points of a place."""
-        if not self.has_place(place):
+        if not isinstance(place, str) or place not in self._places:
             raise InvalidName(place)
         return list(self._places[place])
 
     def has_place(self, value):
-        """Whether the value is the name of a place that has points."""
-        return isinstance(value, str) and value in self._places
+        """Whether a string is the name of a place that has points."""
+        return value in self._places
 
     def joints(self):
         """The dict with the points to which two edges lead, which is not to be changed."""
@@ -66,6 +79,35 @@ class Graph:
             for index, (source, _, _) in enumerate(self._edges):
                 self._out[source].append(index)
         return self._out
+
+    def ways(self):
+        """For each point the list of what can be done there, the last one first, which is not to be changed.
+
+        These are tuples of a choice (edge, number), where an input gives the least or the greatest number, the point
+        behind it, and how many choices can follow; FOR_EVER or more is without an end.
+        """
+        if len(self._ways) == 0:
+            found, lasting = [[] for _ in range(self._many)], self._lasting()
+            for index in range(len(self._edges) - 1, -1, -1):
+                source, target, action = self._edges[index]
+                for number in reversed(numbers_for(action)):
+                    found[source].append(((index, number), target, lasting[target]))
+            self._ways = found
+        return self._ways
+
+    def _lasting(self):
+        """The list that tells for each point how many choices can follow there; FOR_EVER or more is without an end."""
+        # Only the last edge of a loop leads back, to its head, and whoever is there can go around for ever.
+        found, out = [0] * self._many, self.edges_out()
+        for source, target, _ in self._edges:
+            if target < source:
+                found[target] = FOR_EVER
+        for source in range(self._many - 1, -1, -1):
+            for edge in out[source]:
+                further = found[self._edges[edge][1]] + 1
+                if found[source] < further:
+                    found[source] = further
+        return found
 
     def _go_through(self, body, point):
         """Makes the points and edges of a body that begins at the point; returns where it ends."""

@@ -6,12 +6,8 @@ A variable has a rank: 0 is None, the names follow in their order. The code of p
 from safeupto.conditions import counts_among, points_in
 from safeupto.graphs import graph_of
 
-
-def parts_of(action):
-    """The parts of the variable that an action sets, tuples (variable or None, constant for plus, that for minus)."""
-    if action[0] == "input":
-        return [(None, action[3], -action[2])]
-    return [(variable, constant, -constant) for variable, constant in action[2]]
+# For how many conditions the masks are remembered.
+MOST_MASKS = 32
 
 
 class Ground:
@@ -24,23 +20,36 @@ class Ground:
     def __init__(self, program):
         self.chart = graph_of(program)
         sides = [None, *sorted(program.names)]
-        self.sides = len(sides)
+        many = len(sides)
+        self.sides = many
         self.ranks = {side: at for at, side in enumerate(sides)}
         self.twos = [(plus, minus) for plus in sides for minus in sides]
         self.ranges = [(0, 0), *[(low, high) for _, low, high in sorted(program.variables)]]
-        touched = self._touched()
-        self.changes = {edge: (*touched[action[1]], action, {}) for edge, (_, _, action) in enumerate(self.chart.edges)
-                        if action is not None and (action[0] == "set" or action[0] == "input")}
-        self._codes = {}
+        self.changes = {}
+        # All edges, tuples (source, target, change or None, index), and those that lead back.
+        self._lanes, self._back = [], []
+        self._put_lanes()
+        self._backward = self._lanes[::-1]
+        self._codes = {0: []}
         self._into = {}
+        self._merged = {}
+        self._masks = {}
 
-    def _touched(self):
-        """For each name, and None, the tuple of its rank and the mask of the codes with it as plus or as minus."""
-        sides = self.sides
-        row = (1 << sides) - 1
-        # A bit for each plus, all with None as minus.
-        column = sum([1 << plus * sides for plus in range(sides)])
-        return {side: (rank, row << rank * sides | column << rank) for side, rank in self.ranks.items()}
+    def _put_lanes(self):
+        """Finds what the edges change."""
+        many, ranks, changes, lanes = self.sides, self.ranks, self.changes, self._lanes
+        # A bit for each minus, and for each plus with None as minus.
+        row = (1 << many) - 1
+        column = ((1 << many * many) - 1) // row
+        for edge, (source, target, action) in enumerate(self.chart.edges):
+            change = None
+            if action is not None and (action[0] == "set" or action[0] == "input"):
+                rank = ranks[action[1]]
+                change = (rank, row << rank * many | column << rank, action, {})
+                changes[edge] = change
+            lanes.append((source, target, change, edge))
+            if target < source:
+                self._back.append((source, target))
 
     def code_of(self, plus, minus):
         """The code of plus and minus, which are names or None."""
@@ -56,74 +65,99 @@ class Ground:
         """The list that tells with 1 and 0 which edges a size counts; None counts none."""
         if size is None:
             return [0] * len(self.chart.edges)
+        if size[0] == "steps":
+            return [0 if change is None else 1 for _, _, change, _ in self._lanes]
         return counts_among([action for _, _, action in self.chart.edges], size)
 
     def start_of(self, code):
         """The greatest value of a code at the beginning."""
-        plus, minus = divmod(code, self.sides)
-        return self.ranges[plus][1] - self.ranges[minus][0]
+        return self.ranges[code // self.sides][1] - self.ranges[code % self.sides][0]
 
     def codes_in(self, mask):
         """The sorted list of the codes that a mask tells by its bits."""
-        found = self._codes.get(mask)
-        if found is None:
+        if mask not in self._codes:
             found, rest = [], mask
             while rest > 0:
                 found.append((rest & -rest).bit_length() - 1)
                 rest = rest & (rest - 1)
             self._codes[mask] = found
-        return found
+        return self._codes[mask]
 
     def origins(self, change, code):
         """The list of the tuples (code ahead, weight) of the steps along an edge to a code that its change sets."""
-        found = change[3].get(code)
-        if found is None:
+        rank, _, action, known = change
+        if code not in known:
             sides, ranks = self.sides, self.ranks
-            plus, minus = divmod(code, sides)
+            plus, minus = code // sides, code % sides
+            parts = [(None, action[3] if plus == rank else action[2])] if action[0] == "input" else action[2]
             # A variable minus itself is None minus None.
-            if plus == change[0]:
-                parts = [(ranks[variable], up) for variable, up, _ in parts_of(change[2])]
-                found = [(0 if was == minus else was * sides + minus, up) for was, up in parts]
+            if plus == rank:
+                found = [(ranks[side], weight) for side, weight in parts]
+                known[code] = [(0 if was == minus else was * sides + minus, weight) for was, weight in found]
             else:
-                parts = [(ranks[variable], down) for variable, _, down in parts_of(change[2])]
-                found = [(0 if was == plus else plus * sides + was, down) for was, down in parts]
-            change[3][code] = found
-        return found
+                found = [(ranks[side], weight) for side, weight in parts]
+                known[code] = [(0 if was == plus else plus * sides + was, -weight) for was, weight in found]
+        return known[code]
 
-    def masks(self, edges, ends):
-        """For each point the mask of the codes of the nodes there from which steps lead to ends.
+    def lanes(self, counts, merged):
+        """For each point the one that has its nodes, and the edges (source, target, change or None, index) of those.
 
-        The edges are tuples (source, target, change or None, anything), ends are tuples (point, code).
+        If they are merged, points have no nodes to which one edge leads, which sets nothing and is not counted.
         """
+        if not merged:
+            return list(range(self.chart.points)), self._lanes
+        key = tuple(counts)
+        if key not in self._merged:
+            spots, found, joints = list(range(self.chart.points)), [], self.chart.joints()
+            for source, target, change, edge in self._lanes:
+                if change is None and counts[edge] == 0 and target not in joints:
+                    spots[target] = spots[source]
+                else:
+                    found.append((spots[source], target, change, edge))
+            self._merged[key] = (spots, found)
+        return self._merged[key]
+
+    def codes_to(self, ends):
+        """For each point the sorted list of the codes of the nodes there from which steps lead to ends.
+
+        The ends are tuples (point, code). The list is not to be changed.
+        """
+        key = tuple(ends)
+        if key not in self._masks:
+            if len(self._masks) == MOST_MASKS:
+                self._masks.clear()
+            known, masks = self._codes, self._masks_to(ends)
+            self._masks[key] = [known[mask] if mask in known else self.codes_in(mask) for mask in masks]
+        return self._masks[key]
+
+    def _masks_to(self, ends):
+        """The masks of the codes from which steps lead to ends."""
         # All of them matter: each point is come to from point 0, and along each edge a step leads
         # to each node at its target, so that going back from a node comes to a beginning node.
         masks = [0] * self.chart.points
         for point, code in ends:
             masks[point] = masks[point] | 1 << code
-        backward = edges[::-1]
-        back = [(source, target) for source, target, _, _ in backward if target < source]
         again = True
         while again:
-            for source, target, change, _ in backward:
+            for source, target, change, _ in self._backward:
                 mask = masks[target]
                 if mask > 0:
-                    masks[source] = masks[source] | (mask if change is None else self.ahead(change, mask))
+                    if change is not None and mask & change[1] > 0:
+                        mask = self._ahead(change, mask)
+                    masks[source] = masks[source] | mask
             # In this order, only what leads back leads to a point that was not done.
-            again = len(back) > 0 and any([masks[target] & ~masks[source] != 0 for source, target in back])
+            again = False
+            for source, target in self._back:
+                again = again or masks[target] & ~masks[source] > 0
         return masks
 
-    def ahead(self, change, mask):
+    def _ahead(self, change, mask):
         """The mask of the codes from which steps along an edge with this change lead to codes of a mask."""
         found = mask & ~change[1]
-        if found != mask:
-            for code in self.codes_in(mask & change[1]):
-                for was, _ in self.origins(change, code):
-                    found = found | 1 << was
+        for code in self.codes_in(mask & change[1]):
+            for was, _ in self.origins(change, code):
+                found = found | 1 << was
         return found
-
-    def places_in(self, masks):
-        """The sorted list of the tuples (point, code) that masks tell."""
-        return [(point, code) for point, mask in enumerate(masks) if mask > 0 for code in self.codes_in(mask)]
 
     def edge_into(self, point):
         """The first edge that leads to a point."""
@@ -137,9 +171,9 @@ class Net:
     """The nodes from which steps lead to ends, tuples (point, code), and the steps between them.
 
     The nodes are told by indices; stands is the sorted list of their tuples (point, code). A move is a tuple (index of
-    a node, edge, index of a node, weight, counted). If the net is merged, those points have no nodes to which one edge
-    leads, which sets nothing and is not counted: the values there are those at the spot from which one comes to them.
-    The keys of entries are the beginning nodes, with their starts, and the exits are the end nodes.
+    a node, edge, index of a node, weight, counted). If the net is merged, points at which nothing happens have no
+    nodes: the values there are those at the spot from which one comes to them. The keys of entries are the beginning
+    nodes, with their starts, and the exits are the end nodes.
     """
 
     def __init__(self, ground, ends, counts, merged):
@@ -149,44 +183,30 @@ class Net:
         self.known = {}
         self.width = len(ground.twos)
         # For each point the one that has its nodes.
-        self.spots = list(range(ground.chart.points))
-        edges = self._edges_kept(merged)
-        masks = ground.masks(edges, [(self.spots[point], code) for point, code in ends])
-        self._ends, self._masks = ends, masks
-        self.stands = ground.places_in(masks)
+        self.spots, lanes = ground.lanes(counts, merged)
+        codes, width, spots = ground.codes_to(ends), self.width, self.spots
+        self._codes = codes
+        self.stands = [(point, code) for point, some in enumerate(codes) if spots[point] == point for code in some]
         self.many = len(self.stands)
-        self.index = {point * self.width + code: at for at, (point, code) in enumerate(self.stands)}
-        self.moves = self._moves(edges, masks)
-        self.entries = {at: ground.start_of(code) for at, code in enumerate(ground.codes_in(masks[0]))}
+        self.index = {point * width + code: at for at, (point, code) in enumerate(self.stands)}
+        self.moves = self._moves(lanes)
+        self.entries = {at: ground.start_of(code) for at, code in enumerate(codes[0])}
         # For each end node a point at which it is, as several can be at one spot.
-        self.lasts = {self.at(point, code): point for point, code in ends}
+        self.lasts = {self.index[spots[point] * width + code]: point for point, code in ends}
         self.exits = list(self.lasts)
 
-    def _edges_kept(self, merged):
-        """The list of the edges (spot, target, change, index) between spots; the others tell the spots of points."""
-        graph, counts, changes, spots = self.ground.chart, self.counts, self.ground.changes, self.spots
-        joints, found = graph.joints(), []
-        for edge, (source, target, _) in enumerate(graph.edges):
-            change = changes.get(edge)
-            if merged and change is None and counts[edge] == 0 and target not in joints:
-                spots[target] = spots[source]
-            else:
-                found.append((spots[source], target, change, edge))
-        return found
-
-    def _moves(self, edges, masks):
+    def _moves(self, lanes):
         """The list of the moves, by their edges."""
-        ground, index, counts, width, moves = self.ground, self.index, self.counts, self.width, []
-        for source, target, change, edge in edges:
-            first, last, counted = source * width, target * width, counts[edge]
-            for code in ground.codes_in(masks[target]):
-                at = index[last + code]
+        ground, codes, index, counts, width, found = self.ground, self._codes, self.index, self.counts, self.width, []
+        for source, target, change, edge in lanes:
+            for code in codes[target]:
+                at = index[target * width + code]
                 if change is None or change[1] >> code & 1 == 0:
-                    moves.append((index[first + code], edge, at, 0, counted))
+                    found.append((index[source * width + code], edge, at, 0, counts[edge]))
                 else:
                     for was, weight in ground.origins(change, code):
-                        moves.append((index[first + was], edge, at, weight, counted))
-        return moves
+                        found.append((index[source * width + was], edge, at, weight, counts[edge]))
+        return found
 
     def at(self, point, code):
         """The index of the node with the value at a point."""
@@ -194,17 +214,7 @@ class Net:
 
     def all_places(self):
         """The sorted list of the tuples (point, code) of all nodes from which steps lead to ends."""
-        # What is known at spots is all that matters there; the other points are told by those behind them.
-        ground, spots, masks = self.ground, self.spots, list(self._masks)
-        for point, code in self._ends:
-            masks[point] = masks[point] | 1 << code
-        backward = list(enumerate(ground.chart.edges))[::-1]
-        for edge, (source, target, _) in backward:
-            if spots[source] != source:
-                change = ground.changes.get(edge)
-                mask = masks[target] if change is None else ground.ahead(change, masks[target])
-                masks[source] = masks[source] | mask
-        return ground.places_in(masks)
+        return [(point, code) for point, some in enumerate(self._codes) for code in some]
 
     def has_node(self, node):
         """Whether there is an index of a node, a tuple (point, plus, minus)."""

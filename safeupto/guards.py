@@ -1,7 +1,7 @@
 """Guards: which of them make a condition hold for ever, and which do so at the least cost."""
 
 from safeupto.bounding import is_bound, is_least
-from safeupto.capping import ENDLESS, Ceilings, caps_on
+from safeupto.capping import ENDLESS, Ceilings, caps_on, ceilings_of
 from safeupto.errors import InvalidCondition, InvalidName, TooMany
 from safeupto.grounds import Net
 from safeupto.machine import are_guards
@@ -13,16 +13,22 @@ from safeupto.shortruns import Judge, worth_of_run
 MOST_GUARDS = 8
 
 
-def guarded_net(program, condition):
-    """The net of a condition without minus of a program with at most 8 guards; raises the errors.
-
-    It is merged, but for the points behind guards.
-    """
+def guarded_ground(program, condition):
+    """The ground of a program with at most 8 guards and a condition without minus; raises the errors."""
     ground = ground_with(program, condition)
     if condition[2] is not None:
         raise InvalidCondition(condition)
     if len(program.guards) > MOST_GUARDS:
         raise TooMany(MOST_GUARDS)
+    return ground
+
+
+def guarded_net(program, condition):
+    """The net of a condition without minus of a program with at most 8 guards; raises the errors.
+
+    It is merged, but for the points behind guards.
+    """
+    ground = guarded_ground(program, condition)
     key = ("guards", condition[0], condition[1])
     found = program.recalled(key)
     if found is None:
@@ -36,7 +42,7 @@ def ceilings_for(program, condition, names):
     net = guarded_net(program, condition)
     if not are_guards(names, program):
         raise InvalidName(names)
-    return Ceilings(net, caps_on(net, names))
+    return ceilings_of(net, names)
 
 
 def greatest_with(program, condition, names):
@@ -59,7 +65,7 @@ def broken_by(program, condition, names):
 
 def is_broken_by(program, condition, names, value):
     """Whether the value is a short run that breaks a condition with these guards."""
-    ground = guarded_net(program, condition).ground
+    ground = guarded_ground(program, condition)
     if not are_guards(names, program):
         raise InvalidName(names)
     caps = {edge: (action[2], action[3]) for edge, (_, _, action) in enumerate(ground.chart.edges)
@@ -82,7 +88,7 @@ def capped_heights(program, condition, names):
 
 def is_capped_heights(program, condition, names, value):
     """Whether the value is such heights."""
-    guarded_net(program, condition)
+    guarded_ground(program, condition)
     if not are_guards(names, program):
         raise InvalidName(names)
     net = plain_net_for(program, condition, False)

@@ -7,22 +7,24 @@ LONGEST_NAME = 8
 
 def is_integer(value):
     """Whether the value is an integer; True and False are none."""
-    return isinstance(value, int) and not isinstance(value, bool)
+    return isinstance(value, int) and value is not True and value is not False
 
 
 def is_within(value, low, high):
     """Whether the value is an integer from low to high."""
-    return isinstance(value, int) and not isinstance(value, bool) and low <= value <= high
+    return isinstance(value, int) and value is not True and value is not False and low <= value <= high
 
 
 def is_number(value):
     """Whether the value is a number."""
-    return isinstance(value, int) and not isinstance(value, bool) and LEAST <= value <= GREATEST
+    return isinstance(value, int) and value is not True and value is not False and LEAST <= value <= GREATEST
 
 
 def is_range(low, high):
     """Whether both are numbers, low at most high."""
-    if not isinstance(low, int) or not isinstance(high, int) or isinstance(low, bool) or isinstance(high, bool):
+    if not isinstance(low, int) or not isinstance(high, int):
+        return False
+    if low is True or low is False or high is True or high is False:
         return False
     return LEAST <= low <= high <= GREATEST
 

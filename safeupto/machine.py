@@ -1,8 +1,8 @@
 """States, the machine that goes from one to the next, and its runs."""
 
 from safeupto.errors import InvalidChoice, InvalidName, InvalidNumber, InvalidState
-from safeupto.graphs import graph_of
-from safeupto.kinds import is_integer, is_name, is_row, is_within
+from safeupto.graphs import ends_of, graph_of
+from safeupto.kinds import is_integer, is_within
 
 MOST_CHOICES = 100
 
@@ -30,31 +30,13 @@ class State:
 
 def are_guards(guards, program):
     """Whether guards is a list or tuple of different names of guards of the program."""
-    if not is_row(guards) or not all([is_name(guard) and guard in program.guards for guard in guards]):
+    if not isinstance(guards, (list, tuple)):
         return False
-    return len(set(guards)) == len(guards)
-
-
-def is_input(action):
-    """Whether an edge with this action is an input."""
-    return action is not None and action[0] == "input"
-
-
-def greatest_part(parts, names, numbers):
-    """The greatest of the parts, numbers being the values of the variables with these names."""
-    found = None
-    for variable, constant in parts:
-        worth = constant if variable is None else numbers[names.index(variable)] + constant
-        if found is None or worth > found:
-            found = worth
-    return found
-
-
-def with_number(numbers, at, number):
-    """The tuple of numbers with another one at an index."""
-    found = list(numbers)
-    found[at] = number
-    return tuple(found)
+    known = program.guards
+    for guard in guards:
+        if not isinstance(guard, str) or guard not in known:
+            return False
+    return len(guards) < 2 or len(set(guards)) == len(guards)
 
 
 class Machine:
@@ -68,6 +50,7 @@ class Machine:
         self._guards = tuple(sorted(guards))
         self._variables = program.variables
         self._names = program.names
+        self._spots = {name: at for at, name in enumerate(self._names)}
         self._edges = self._graph.edges
         self._out = self._graph.edges_out()
         # The actions of the edges that change numbers.
@@ -94,7 +77,7 @@ class Machine:
         if not isinstance(numbers, tuple) or len(numbers) != len(self._variables):
             raise InvalidState(numbers)
         for number, (_, low, high) in zip(numbers, self._variables):
-            if not isinstance(number, int) or isinstance(number, bool) or not low <= number <= high:
+            if not isinstance(number, int) or number is True or number is False or not low <= number <= high:
                 raise InvalidState(numbers)
         return State(0, numbers)
 
@@ -124,7 +107,7 @@ class Machine:
         if not isinstance(choice, tuple) or len(choice) != 2:
             raise InvalidChoice(choice)
         index, number = choice
-        if not isinstance(index, int) or isinstance(index, bool) or index not in self._out[point]:
+        if not isinstance(index, int) or index is True or index is False or index not in self._out[point]:
             raise InvalidChoice(choice)
         action = self._effects.get(index)
         if action is not None and action[0] == "input":
@@ -151,13 +134,19 @@ class Machine:
 
     def _changed(self, numbers, action, number):
         """The numbers behind an edge with this action, which changes them."""
-        if action[0] == "set":
-            worth = greatest_part(action[2], self._names, numbers)
-            return with_number(numbers, self._names.index(action[1]), worth)
-        if action[0] == "input":
-            return with_number(numbers, self._names.index(action[1]), number)
-        at = self._names.index(action[2])
-        return with_number(numbers, at, min(numbers[at], action[3]))
+        spots = self._spots
+        if action[0] == "guard":
+            at = spots[action[2]]
+            worth = action[3] if action[3] < numbers[at] else numbers[at]
+        elif action[0] == "input":
+            at, worth = spots[action[1]], number
+        else:
+            at, worth = spots[action[1]], None
+            for variable, constant in action[2]:
+                one = constant if variable is None else numbers[spots[variable]] + constant
+                if worth is None or one > worth:
+                    worth = one
+        return (*numbers[:at], worth, *numbers[at + 1:])
 
 
 class Run:
@@ -206,6 +195,13 @@ class Run:
         longer._go_on(choices)
         return longer
 
+    def through(self, states, choices):
+        """The run from the first of these states with these choices, which all are known to be right."""
+        other = Run(self._machine, states[0].numbers, ())
+        other._states = tuple(states)
+        other._choices = tuple(choices)
+        return other
+
     def along(self, choices):
         """The run that goes on with a list of choices that are known to be possible."""
         longer = self.more(())
@@ -227,16 +223,6 @@ class Run:
         self._choices = self._choices + tuple(choices)
 
 
-def ends_of(low, high):
-    """The list of the least and the greatest number of a range, each once."""
-    return [low] if low == high else [low, high]
-
-
-def numbers_for(action):
-    """The list of the numbers of choices of an edge with this action; an input gives the ends of its range."""
-    return ends_of(action[2], action[3]) if is_input(action) else [None]
-
-
 def starts_of(program):
     """The sorted list of the values at beginnings that are least or greatest ones."""
     found = [()]
@@ -245,38 +231,25 @@ def starts_of(program):
     return found
 
 
-def choices_at(machine, state, lasting):
-    """The sorted list of the choices at a state that lead to points with True in lasting."""
-    found = []
-    for index in machine.edges_from(state):
-        _, target, action = machine.graph.edges[index]
-        if lasting[target]:
-            found.extend([(index, number) for number in numbers_for(action)])
-    return found
-
-
-def lasting_points(graph, most):
-    """The list that tells for 0, 1 .. most choices, at which points that many are possible."""
-    found = [[True for _ in range(graph.points)]]
-    for _ in range(most):
-        lasting = [False for _ in range(graph.points)]
-        for source, target, _ in graph.edges:
-            lasting[source] = lasting[source] or found[-1][target]
-        found.append(lasting)
-    return found
-
-
 def runs(machine, most):
     """Yields all runs with exactly so many choices, starts and inputs being least or greatest ones."""
     if not is_within(most, 0, MOST_CHOICES):
         raise InvalidNumber(most)
-    lasting = lasting_points(machine.graph, most)
-    waiting = [Run(machine, numbers, ()) for numbers in reversed(starts_of(machine.program))]
-    # Only choices are made behind which the run can go on to its full length, so the next run is never far.
-    while len(waiting) > 0:
-        run = waiting.pop()
-        if len(run) == most:
-            yield run
-        else:
-            choices = choices_at(machine, run.last, lasting[most - len(run) - 1])
-            waiting.extend([run.more([choice]) for choice in reversed(choices)])
+    ways = machine.graph.ways()
+    for numbers in starts_of(machine.program):
+        first = Run(machine, numbers, ())
+        states, choices = [first.last], []
+        # What is still to be done: how many choices are made then, the last one of them, and the point behind it.
+        waiting = [(0, None, 0)]
+        while len(waiting) > 0:
+            length, made, point = waiting.pop()
+            if made is not None:
+                del states[length:], choices[length - 1:]
+                states.append(machine.after(states[-1].numbers, made[0], made[1]))
+                choices.append(made)
+            if length == most:
+                yield first.through(states, choices)
+            else:
+                # Only choices are made behind which the run can go on to its full length, so the next run is never far.
+                waiting.extend([(length + 1, choice, target) for choice, target, lasting in ways[point]
+                                if length + 1 + lasting >= most])

@@ -72,4 +72,6 @@ def is_bounds(program, condition, size, most, value):
     heads = heads_of(net, MOST_HEADS)
     if not is_within(most, 0, GREATEST):
         raise InvalidNumber(most)
-    return Inspector(net, heads, condition[3]).accepts(most, value)
+    if "inspector" not in net.known:
+        net.known["inspector"] = Inspector(net, heads)
+    return net.known["inspector"].accepts(condition[3], most, value)

@@ -1,29 +1,42 @@
-"""Bounds for walks with many counted steps, made by joining walks of half as many."""
+"""Bounds for walks with many counted steps, made by joining walks of half as many.
+
+Bounds between heads are dicts from places to sums: a place is the number of a head times how many heads there are, plus
+the number of another one.
+"""
+
+from safeupto.bounding import pairs_in
 
 # Greater than each sum of a walk, also if anything that a walk can have is taken from it.
 ENDLESS = 1 << 1000
 
 
-def bound_of(worth):
-    """The bound that a worth stands for."""
-    return "endless" if worth + worth > ENDLESS else worth
-
-
 def bounds_for(reckoning, most):
     """The tuple (zero, levels) of the least bounds for a count."""
     net, hops = reckoning.net, reckoning.hops
-    nodes, twos, reaches = [net.node(head) for head in reckoning.heads], net.ground.twos, reaches_with_rings(hops)
-    zero = {}
+    heads, reaches = [net.node(head) for head in reckoning.heads], reaches_with_rings(hops)
+    zero = zero_bounds(net, heads, reaches)
+    pairs = [(head, other) for head in heads for other in heads]
+    levels = [{pairs[place]: level[place] for place in level}
+              for level in levels_from(first_level(hops, reaches), len(heads), most.bit_length())]
+    if len(hops.rings) == 0:
+        return zero, levels
+    return with_endless(zero), [with_endless(level) for level in levels]
+
+
+def zero_bounds(net, heads, reaches):
+    """The dict from tuples (head, node) to the greatest sums of walks that count nothing."""
+    twos, spots, width, index = net.ground.twos, net.spots, net.width, net.index
+    found = {}
     for point, code in net.all_places():
-        node = (point, *twos[code])
-        for at, worth in reaches[net.at(point, code)].items():
-            zero[(nodes[at], node)] = bound_of(worth)
-    levels, rows = [], first_rows(hops, reaches)
-    while len(levels) < most.bit_length():
-        levels.append({(node, nodes[at]): bound_of(row[at]) for node, row in zip(nodes, rows) for at in row})
-        if len(levels) < most.bit_length():
-            rows = [joined_row(row, rows) for row in rows]
-    return zero, levels
+        node, reach = (point, *twos[code]), reaches[index[spots[point] * width + code]]
+        for at in reach:
+            found[(heads[at], node)] = reach[at]
+    return found
+
+
+def with_endless(bounds):
+    """The bounds, with "endless" for those that are greater than each sum of a walk."""
+    return {key: "endless" if worth + worth > ENDLESS else worth for key, worth in bounds.items()}
 
 
 def reaches_with_rings(hops):
@@ -62,24 +75,38 @@ def come_to(outs, seeds):
     return marks
 
 
-def first_rows(hops, reaches):
-    """For each head the dict from heads to the greatest sums of walks with at most one counted step."""
-    rows = [{at: 0} for at in range(len(hops.heads))]
+def first_level(hops, reaches):
+    """The greatest sums of walks from head to head with at most one counted step."""
+    many = len(hops.heads)
+    found = {at * many + at: 0 for at in range(many)}
     for source, target, weight, _ in hops.counted:
-        for at, reach in reaches[source].items():
-            row, worth = rows[at], reach + weight
-            if target not in row or row[target] < worth:
-                row[target] = worth
-    return rows
+        reach = reaches[source]
+        for at in reach:
+            place, worth = at * many + target, reach[at] + weight
+            if place not in found or found[place] < worth:
+                found[place] = worth
+    return found
 
 
-def joined_row(row, rows):
-    """The greatest sums of a walk told by a row and one told by the rows, from where it ended."""
-    found = {}
-    for middle, worth in row.items():
-        for last, more in rows[middle].items():
-            both = worth + more
-            if last not in found or found[last] < both:
-                # What is endless stays as it is, and does not become greater and greater.
-                found[last] = ENDLESS if both + both > ENDLESS else both
+def levels_from(level, many, length):
+    """The list of so many levels, the first one given, each with the sums of two walks of the one before."""
+    found, pairs, size = [], [], 0
+    while len(found) < length:
+        if len(found) > 0:
+            # Later levels have at least the places of earlier ones.
+            if len(level) > size:
+                pairs, size = pairs_in(level, many), len(level)
+            level = doubled(level, pairs)
+        found.append(level)
+    return found
+
+
+def doubled(level, pairs):
+    """The greatest sums of two walks of a level, one behind the other, at these places."""
+    found = dict(level)
+    for first, second, both in pairs:
+        worth = level[first] + level[second]
+        if both not in found or found[both] < worth:
+            # What is endless stays as it is, and does not become greater and greater.
+            found[both] = ENDLESS if worth > ENDLESS else worth
     return found

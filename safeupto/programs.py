@@ -26,7 +26,7 @@ def is_body(value):
 
 def is_plain(value):
     """Whether the value is a program without parameters."""
-    return isinstance(value, Program) and len(value.parameters) == 0
+    return isinstance(value, Program) and value._parameters == ()
 
 
 def are_rows(rows, most):
@@ -258,7 +258,7 @@ class Program:
 
     def recalled(self, key):
         """What was remembered with a key, or None."""
-        return self._memory.get(key)
+        return self._memory[key] if key in self._memory else None
 
     def remember(self, key, found):
         """Remembers what was found out about the program, which never changes, and returns it."""

@@ -4,7 +4,8 @@ from safeupto.errors import ParseError
 from safeupto.kinds import is_name
 from safeupto.statements import MOST_LEVELS
 
-LONGEST_INTEGER = 31
+# Integers are written with at most 31 digits.
+GREATEST_WRITTEN = 10 ** 31 - 1
 # How many names, and how many integers behind them, follow the first word. A set has words of its own.
 KINDS = {
     "var": (1, 2), "param": (1, 2), "array": (1, 1), "width": (1, 1), "proc": (1, 0), "main": (0, 0),
@@ -15,14 +16,14 @@ HEADS = ("var", "param", "array", "width", "proc", "main")
 PLAIN = ("set", "place", "input", "call", "read", "guard")
 
 
-def read_integer(word, longest=LONGEST_INTEGER):
-    """The integer that is written like this with at most so many digits, or None."""
-    digits = word.removeprefix("-")
-    if not (digits.isascii() and digits.isdigit()) or len(digits) > longest:
+def read_integer(word, greatest=GREATEST_WRITTEN):
+    """The integer that is written like this, at most the greatest one, also without its sign, or None."""
+    try:
+        number = int(word)
+    except ValueError:
         return None
-    if digits[0] == "0" and word != "0":
-        return None
-    return int(word)
+    # More than is allowed here can be read as an integer, but an integer is written in one way.
+    return number if -greatest <= number <= greatest and str(number) == word else None
 
 
 def read_part(word, parameters):
@@ -34,10 +35,10 @@ def read_part(word, parameters):
         return (variable, constant) if is_name(constant) else with_number(variable, constant, 1)
     if is_name(word):
         return (None, word) if word in parameters else (word, 0)
-    number = read_integer(word)
-    if number is not None:
-        return (None, number)
-    variable, _, constant = word.partition("-")
+    variable, sign, constant = word.partition("-")
+    if sign == "" or variable == "":
+        number = read_integer(word)
+        return None if number is None else (None, number)
     return with_number(variable, constant, -1) if is_name(variable) else None
 
 

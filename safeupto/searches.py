@@ -2,8 +2,9 @@
 
 from safeupto.conditions import Watch, counts_among, is_condition_in, is_size
 from safeupto.errors import InvalidCondition, InvalidNumber, InvalidSize, TooMany
+from safeupto.graphs import numbers_for
 from safeupto.kinds import is_row, is_within
-from safeupto.machine import MOST_CHOICES, Run, numbers_for, starts_of
+from safeupto.machine import MOST_CHOICES, Run, starts_of
 
 MOST_RUNS = 20000
 

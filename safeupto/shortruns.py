@@ -2,7 +2,7 @@
 
 from safeupto.conditions import points_in
 from safeupto.growths import least_of
-from safeupto.kinds import is_integer
+from safeupto.kinds import is_within
 
 
 class Judge:
@@ -28,17 +28,33 @@ class Judge:
         if not isinstance(value, list) or len(value) == 0:
             return None
         found = []
-        for rule in value:
-            if not isinstance(rule, tuple) or len(rule) != 3 or not isinstance(rule[0], str):
+        for at, rule in enumerate(value):
+            if not isinstance(rule, tuple) or len(rule) != 3:
                 return None
             word, first, second = rule
+            if not isinstance(word, str):
+                return None
             if word == "both":
-                told = both(first, second, found)
+                if not isinstance(first, int) or not isinstance(second, int):
+                    return None
+                if first is True or first is False or second is True or second is False:
+                    return None
+                if not 0 <= first < at or not 0 <= second < at:
+                    return None
+                begin, middle, total, count, steps, cap = found[first]
+                other, end, more, others, rest, last = found[second]
+                if middle != other:
+                    return None
+                if cap is not None:
+                    cap = cap + more
+                if cap is None or last is not None and last < cap:
+                    cap = last
+                found.append((begin, end, total + more, count + others, steps + rest, cap))
             else:
                 told = self._along(first, second) if word == "walk" else None
-            if told is None:
-                return None
-            found.append(told)
+                if told is None:
+                    return None
+                found.append(told)
         return found
 
     def walk(self, value):
@@ -53,16 +69,16 @@ class Judge:
             return None
         edges, changes, counts, caps = self._edges, self._changes, self._counts, self._caps
         point, plus, minus = first
-        total, count, cap = 0, 0, None
+        total, count, cap, many = 0, 0, None, len(edges)
         for step in steps:
             if not isinstance(step, tuple) or len(step) != 3:
                 return None
             edge, next_plus, next_minus = step
-            if not isinstance(edge, int) or isinstance(edge, bool) or not 0 <= edge < len(edges):
+            if not isinstance(edge, int) or edge is True or edge is False or not 0 <= edge < many:
                 return None
-            if not (next_plus is None or isinstance(next_plus, str)):
+            if next_plus is not None and not isinstance(next_plus, str):
                 return None
-            if not (next_minus is None or isinstance(next_minus, str)):
+            if next_minus is not None and not isinstance(next_minus, str):
                 return None
             source, target, _ = edges[edge]
             if source != point:
@@ -80,42 +96,29 @@ class Judge:
         return (first, (point, plus, minus), total, count, len(steps), cap)
 
     def _is_node(self, value):
-        if not isinstance(value, tuple) or len(value) != 3 or not is_integer(value[0]):
+        if not isinstance(value, tuple) or len(value) != 3 or not is_within(value[0], 0, self._points - 1):
             return False
-        return 0 <= value[0] < self._points and self._are_sides(value[1], value[2])
-
-    def _are_sides(self, plus, minus):
-        """Whether these are plus and minus of a node."""
+        _, plus, minus = value
         if not (plus is None or isinstance(plus, str)) or not (minus is None or isinstance(minus, str)):
             return False
+        return self._are_sides(plus, minus)
+
+    def _are_sides(self, plus, minus):
+        """Whether these, strings or None, are plus and minus of a node."""
         return plus in self._ranks and minus in self._ranks and (plus is None or plus != minus)
 
     def _weight(self, change, was_plus, was_minus, plus, minus):
         """The weight of a step along an edge with this change; None if it is none."""
         if not self._are_sides(plus, minus):
             return None
-        ground = self._ground
-        code, was_code = ground.code_of(plus, minus), ground.code_of(was_plus, was_minus)
+        ranks, sides = self._ranks, self._ground.sides
+        code, was_code = ranks[plus] * sides + ranks[minus], ranks[was_plus] * sides + ranks[was_minus]
         if change[1] >> code & 1 == 0:
             return 0 if code == was_code else None
-        for was, weight in ground.origins(change, code):
+        for was, weight in self._ground.origins(change, code):
             if was == was_code:
                 return weight
         return None
-
-
-def both(first, second, earlier):
-    """What a rule tells that joins two earlier ones; None if they cannot be joined."""
-    if not is_integer(first) or not is_integer(second):
-        return None
-    if not 0 <= first < len(earlier) or not 0 <= second < len(earlier):
-        return None
-    begin, middle, total, count, steps, cap = earlier[first]
-    other, end, more, others, rest, last = earlier[second]
-    if middle != other:
-        return None
-    cap = last if cap is None else least_of(cap + more, last)
-    return (begin, end, total + more, count + others, steps + rest, cap)
 
 
 def worth_of_run(ground, condition, told):

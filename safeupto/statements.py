@@ -114,7 +114,7 @@ def are_parts(value, found):
         elif variable is not None:
             return False
         if isinstance(constant, int):
-            if isinstance(constant, bool) or constant > GREATEST or constant < LEAST:
+            if constant is True or constant is False or constant > GREATEST or constant < LEAST:
                 return False
         elif not isinstance(constant, str) or constant not in constants and not is_new(constant, constants):
             return False

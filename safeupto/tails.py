@@ -16,6 +16,8 @@ from safeupto.vectors import LEAST, extend, is_there, next_head, step_back, trai
 
 # Up to here each number of hops is looked at by itself.
 SOON = 3
+# And so up to here, where just one sum is asked for.
+FEW = 8
 
 
 class Stage:
@@ -97,8 +99,10 @@ class Tails:
 
     def greatest(self, at, count):
         """The greatest sum from a head for a count; None if there is no walk."""
-        found = self.pattern() if count >= SOON else None
-        if count < SOON or (found is not None and count < found.first):
+        if count < FEW:
+            return self.sum_for(at, count)
+        found = self.pattern()
+        if found is not None and count < found.first:
             return self.sum_for(at, count)
         return value_at(self.staged_growth(at), count) if found is None else found.sum_for(at, count)
 

@@ -22,14 +22,15 @@ def side_of(word):
     return None if word == "-" else word
 
 
-def read_count(word, longest):
-    """The count that is written like this with at most so many digits, or None."""
-    return None if word.startswith("-") else read_integer(word, longest)
+def read_count(word, greatest):
+    """The count that is written like this, at most the greatest one, or None."""
+    count = read_integer(word, greatest)
+    return None if count is None or count < 0 else count
 
 
-def read_place(word, longest):
-    """The name or the point that is written like this, or None."""
-    return word if is_name(word) else read_count(word, longest)
+def read_place(word, greatest):
+    """The name or the point, at most the greatest one, that is written like this, or None."""
+    return word if is_name(word) else read_count(word, greatest)
 
 
 def read_size(kind, name):
