@@ -1,8 +1,12 @@
 """Bounds that are told by anyone, and whether they are such.
 
-What is told is put into dicts from places to bounds: a place is the number of a head times how many nodes or heads
-there are, plus the index of a node or the number of a head.
+A bound is at a place: the number of a head times how many nodes or heads there are, plus the index of a node or the
+number of a head. The places at which a level has bounds, in its order, are its shape; most levels have the same.
 """
+
+
+# For how many shapes it is remembered what was found out about them.
+MOST_SHAPES = 16
 
 
 def is_bound(value):
@@ -19,45 +23,31 @@ def is_least(bound, first, second):
     return first != "endless" and second != "endless" and bound >= first + second
 
 
-def placed(table, places):
-    """The dict from places to the bounds of a table; None if it is no dict from keys of places to bounds."""
+def pairs_in(shape, many):
+    """The list of the places (first, second, both) of two walks, one behind the other, that are there in a shape."""
+    lasts = [[] for _ in range(many)]
+    for place in shape:
+        lasts[place // many].append(place % many)
+    return [(place, place % many * many + last, place // many * many + last)
+            for place in shape for last in lasts[place % many]]
+
+
+def told_by(table, places):
+    """What a dict from keys of places to bounds tells: its shape, its bounds, and whether all of them are integers.
+
+    None if it is no such dict.
+    """
     if not isinstance(table, dict):
         return None
     try:
-        found = {places[key]: bound for key, bound in table.items()}
+        shape = tuple([places[key] for key in table])
     except KeyError:
         return None
-    odd = [bound for bound in found.values() if not isinstance(bound, int) or bound is True or bound is False]
-    if len(found) < len(table) or len(odd) > 0 and not all([is_bound(bound) for bound in odd]):
-        return None
-    return found
-
-
-def pairs_in(level, many):
-    """The list of the places (first, second, both) of two walks, one behind the other, that are there in a level."""
-    lasts = [[] for _ in range(many)]
-    for place in level:
-        lasts[place // many].append(place % many)
-    return [(place, place % many * many + last, place // many * many + last)
-            for place in level for last in lasts[place % many]]
-
-
-def are_doubled(levels, many):
-    """Whether the bounds in each level but the first are great enough for two walks of the one before."""
-    known = {}
-    for level, other in zip(levels, levels[1:]):
-        shape = tuple(level)
-        if shape not in known:
-            known[shape] = pairs_in(level, many)
-        for first, second, both in known[shape]:
-            if both not in other:
-                return False
-            bound = other[both]
-            if bound != "endless":
-                one, more = level[first], level[second]
-                if one == "endless" or more == "endless" or bound < one + more:
-                    return False
-    return True
+    bounds = list(table.values())
+    odd = [bound for bound in bounds if not isinstance(bound, int) or bound is True or bound is False]
+    if len(odd) == 0:
+        return shape, bounds, True
+    return (shape, bounds, False) if all([is_bound(bound) for bound in odd]) else None
 
 
 class Inspector:
@@ -65,22 +55,24 @@ class Inspector:
 
     def __init__(self, net, heads):
         nodes = net.nodes()
-        self._net = net
+        spots = [nodes[head] for head in heads]
         self._heads = heads
         self._many = len(nodes)
+        self._places = {key: place for place, key in enumerate([(head, node) for head in spots for node in nodes])}
+        self._spots = {key: place for place, key in enumerate([(head, other) for head in spots for other in spots])}
+        numbers = {head: at for at, head in enumerate(heads)}
+        self._starts = {numbers[at]: net.entries[at] for at in net.entries}
         self._exits = {at: True for at in net.exits}
-        self._places = {(nodes[head], node): at * self._many + index for at, head in enumerate(heads)
-                        for index, node in enumerate(nodes)}
-        self._spots = {(nodes[head], nodes[other]): at * len(heads) + index for at, head in enumerate(heads)
-                       for index, other in enumerate(heads)}
         # Where steps lead: those that are not counted to nodes, the others to numbers of heads.
         self._leads, self._counted = [[] for _ in nodes], [[] for _ in nodes]
-        numbers = {head: at for at, head in enumerate(heads)}
         for source, _, target, weight, counted in net.moves:
             if counted == 0:
                 self._leads[source].append((target, weight))
             else:
                 self._counted[source].append((numbers[target], weight))
+        # What was found out about shapes.
+        self._ways = {}
+        self._sums = {}
 
     def accepts(self, limit, most, value):
         """Whether the value is bounds for the count most with which the values at the ends are at most the limit."""
@@ -88,11 +80,13 @@ class Inspector:
             return False
         if len(value[1]) != most.bit_length():
             return False
-        zero, levels = placed(value[0], self._places), [placed(level, self._spots) for level in value[1]]
+        zero, levels = told_by(value[0], self._places), [told_by(level, self._spots) for level in value[1]]
         if zero is None or None in levels:
             return False
-        return (self._begin_well(zero, levels[0] if len(levels) > 0 else None)
-                and are_doubled(levels, len(self._heads)) and self._end_well(zero, levels, most, limit))
+        bounds = {place: bound for place, bound in zip(zero[0], zero[1])}
+        first = {place: bound for place, bound in zip(levels[0][0], levels[0][1])} if most > 0 else None
+        return (self._begin_well(bounds, first) and self._double_well(levels)
+                and self._end_well(bounds, levels, most, limit))
 
     def _begin_well(self, zero, first):
         """Whether the bounds in zero and in the first level, if there is one, are great enough for single steps."""
@@ -105,8 +99,7 @@ class Inspector:
         for place, ahead in zero.items():
             node, at = place % many, place // many
             for target, weight in self._leads[node]:
-                bound = zero.get(at * many + target)
-                if bound is None or bound != "endless" and (ahead == "endless" or bound < ahead + weight):
+                if not is_least(zero.get(at * many + target), ahead, weight):
                     return False
             if first is not None:
                 for target, weight in self._counted[node]:
@@ -114,22 +107,57 @@ class Inspector:
                         return False
         return True
 
+    def _double_well(self, levels):
+        """Whether the bounds in each level but the first are great enough for two walks of the one before."""
+        known = self._sums
+        for (shape, bounds, is_plain), (other, greater, are_plain) in zip(levels, levels[1:]):
+            key = (shape, other)
+            if key not in known:
+                self._keep(known, key, sums_in(shape, other, len(self._heads)))
+            sums = known[key]
+            if sums is None:
+                return False
+            if is_plain and are_plain:
+                if any([greater[both] < bounds[first] + bounds[second] for first, second, both in sums]):
+                    return False
+            elif not all([is_least(greater[both], bounds[first], bounds[second]) for first, second, both in sums]):
+                return False
+        return True
+
     def _end_well(self, zero, levels, most, limit):
         """Whether the values at the ends are at most the limit if one goes along these bounds."""
-        many, width = self._many, len(self._heads)
-        values = {at: self._net.entries[head] for at, head in enumerate(self._heads) if head in self._net.entries}
-        for digit, level in enumerate(levels):
+        many, width, known, values = self._many, len(self._heads), self._ways, self._starts
+        for digit, (shape, bounds, _) in enumerate(levels):
             if most >> digit & 1 == 1:
-                values = gone_along(values, level, width)
-        ends = gone_along(values, {place: zero[place] for place in zero if place % many in self._exits}, many)
-        return all([end != "endless" and end <= limit for end in ends.values()])
+                if shape not in known:
+                    self._keep(known, shape, [(place // width, place % width) for place in shape])
+                values = gone_along(values, known[shape], bounds)
+        places = [place for place in zero if place % many in self._exits]
+        ways, bounds = [(place // many, place % many) for place in places], [zero[place] for place in places]
+        return all([end != "endless" and end <= limit for end in gone_along(values, ways, bounds).values()])
+
+    def _keep(self, known, key, found):
+        """Keeps what was found out about shapes, of which few are kept."""
+        if len(known) == MOST_SHAPES:
+            known.clear()
+        known[key] = found
 
 
-def gone_along(values, bounds, width):
-    """The dict of the greatest sums of a value, by its number, and a bound from there, by where it leads."""
+def sums_in(shape, other, many):
+    """The list of the indices of the bounds of two walks, one behind the other, in a shape, and of both in another one.
+
+    None if one is missing there.
+    """
+    at, then = {place: index for index, place in enumerate(shape)}, {place: index for index, place in enumerate(other)}
+    pairs = pairs_in(shape, many)
+    found = [(at[first], at[second], then[both]) for first, second, both in pairs if both in then]
+    return found if len(found) == len(pairs) else None
+
+
+def gone_along(values, ways, bounds):
+    """The dict of the greatest sums of a value and a bound by where they lead; ways tells from where and to where."""
     found = {}
-    for place, bound in bounds.items():
-        at, last = place // width, place % width
+    for (at, last), bound in zip(ways, bounds):
         if at in values:
             value = values[at]
             if value == "endless" or bound == "endless":

@@ -4,7 +4,8 @@ What a walk makes of a value is the least of value + sum and a bound. So a ring 
 along it: the value behind the capped move that gives this bound becomes its cap, and no more. Or it goes up for ever.
 """
 
-from safeupto.rings import outs_along, rings_among
+from safeupto.nets import leads_of
+from safeupto.rings import rings_among
 from safeupto.shortruns import Rules
 
 # Greater than each sum of a walk, and less.
@@ -47,11 +48,9 @@ class Ceilings:
     """
 
     def __init__(self, net, caps):
-        if "leads" not in net.known:
-            net.known["leads"] = outs_along(net.many, net.moves, 0, 1)
         self.caps = caps
         self._net = net
-        self._leads = net.known["leads"]
+        self._leads = leads_of(net)
         self.worths = [NOWHERE] * net.many
         self._stories = []
         self._told = [None] * net.many

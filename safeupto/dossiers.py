@@ -6,34 +6,40 @@ from safeupto.errors import InvalidSize, TooMany
 from safeupto.formats import program_of
 from safeupto.graphs import graph_of
 from safeupto.kinds import GREATEST
-from safeupto.limits import Limit, breaking
+from safeupto.limits import Limit
 from safeupto.paperlines import PaperReader
-from safeupto.papers import bounds, heights
-from safeupto.wishes import first_broken, safe_up_to, wished
+from safeupto.papers import heights_on
+from safeupto.powers import bounds_for
+from safeupto.wishes import least_of_all, reckonings_for, wished
+from safeupto.witnesses import breaking_rules
 from safeupto.wording import bounds_lines, breaking_lines, condition_line, heights_lines, limit_word, size_words
 
 
 def dossier(program, size):
     """The dossier of a program for a size."""
-    most = safe_up_to(program, size).size
+    rows = reckonings_for(program, size)
+    broken = least_of_all(rows)
+    most = None if broken is None else broken[2]
     if most is not None and most > GREATEST:
         raise TooMany(GREATEST)
     blocks = []
     if most != -1:
-        blocks = [[condition_line(wish), *holding_lines(program, wish, size, most)] for wish in wished(program)]
-    if most is not None:
-        wish = first_broken(program, size)
-        blocks.append([condition_line(wish), *breaking_lines(size, most + 1, breaking(program, wish, size))])
+        blocks = [[condition_line(wish), *holding_lines(reckoning, size, most, limit)]
+                  for wish, reckoning, limit in rows]
+    if broken is not None:
+        wish, reckoning, _ = broken
+        blocks.append([condition_line(wish), *breaking_lines(size, most + 1, breaking_rules(reckoning, wish[3]))])
     lines = [f"dossier {size_words(size)} {limit_word(most)} {len(blocks)}", *program_lines(program)]
     for block in blocks:
         lines.extend(block)
     return "\n".join(lines)
 
 
-def holding_lines(program, condition, size, most):
-    """The lines of heights for a condition, or of bounds if it does not hold for ever."""
-    high = heights(program, condition)
-    return heights_lines(high) if high is not None else bounds_lines(size, most, bounds(program, condition, size, most))
+def holding_lines(reckoning, size, most, limit):
+    """The lines of heights for a condition with this limit, or of bounds if it does not hold for ever."""
+    if limit is None:
+        return heights_lines(heights_on(reckoning.net))
+    return bounds_lines(size, most, bounds_for(reckoning, most))
 
 
 def judge(text):

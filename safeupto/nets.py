@@ -4,14 +4,9 @@ from safeupto.conditions import is_condition_in, is_size
 from safeupto.errors import InvalidCondition, InvalidProgram, InvalidSize, TooMany
 from safeupto.grounds import Ground, Net
 from safeupto.programs import is_plain
+from safeupto.rings import outs_along
 
 MOST_HEADS = 24
-
-
-def node_order(node):
-    """What nodes are sorted by: None comes ahead of each name."""
-    point, plus, minus = node
-    return (point, plus or "", minus or "")
 
 
 def ground_for(program):
@@ -63,6 +58,13 @@ def remembered_net(program, ground, condition, size, merged):
     if found is None:
         found = program.remember(key, Net(ground, ground.ends_of(condition), ground.counts_for(size), merged))
     return found
+
+
+def leads_of(net):
+    """What leads out along the moves of a net, which is not to be changed."""
+    if "leads" not in net.known:
+        net.known["leads"] = outs_along(net.many, net.moves, 0, 1)
+    return net.known["leads"]
 
 
 def all_heads(net):

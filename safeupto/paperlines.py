@@ -1,8 +1,9 @@
 """Lines of certificates and dossiers that are read, by their form alone."""
 
 from safeupto.errors import ParseError
-from safeupto.reading import Reader, read_integer
-from safeupto.wording import is_side_word, read_count, read_place, read_size, side_of
+from safeupto.kinds import is_name
+from safeupto.reading import DIGITS, Reader, read_integer
+from safeupto.wording import read_count, read_place, read_size
 
 # Integers are written with at most 80 digits.
 GREATEST_TOLD = 10 ** 40 * 10 ** 40 - 1
@@ -16,10 +17,12 @@ class PaperReader:
             raise ParseError(None)
         self._lines = text.split("\n")
         self._at = 0
-        # Words come again and again, so each of them is looked at once. What a word cannot stand for is None.
-        self._counts = {}
-        self._integers = {}
-        self._bounds = {"endless": "endless"}
+        # Words come again and again, so each of them is looked at once. What cannot be told by a word is told as None.
+        self._counts = dict(DIGITS)
+        self._integers = dict(DIGITS)
+        self._bounds = dict(DIGITS)
+        self._bounds["endless"] = "endless"
+        self._sides = {"-": None}
         self._nodes = {}
         self._pairs = {}
         self._steps = {}
@@ -89,15 +92,30 @@ class PaperReader:
 
     def _condition(self, words):
         place, most = read_place(words[1], GREATEST_TOLD), read_integer(words[4], GREATEST_TOLD)
-        if place is None or most is None or not is_side_word(words[2]) or not is_side_word(words[3]):
+        if place is None or most is None or not self._are_sides(words[2], words[3]):
             raise ParseError(self._at - 1)
-        return (place, side_of(words[2]), side_of(words[3]), most)
+        return (place, self._sides[words[2]], self._sides[words[3]], most)
+
+    def _are_sides(self, plus, minus):
+        """Whether both words stand for names or None."""
+        sides = self._sides
+        if plus not in sides and is_name(plus):
+            sides[plus] = plus
+        if minus not in sides and is_name(minus):
+            sides[minus] = minus
+        return plus in sides and minus in sides
 
     def _told_bounds(self, many, levels):
         """The tuple of the dict of so many bounds and the list of so many levels."""
-        zero, found = self._table(many, 6, self._pairs, self._bounds), []
+        pairs, bounds, lines, sizes = self._pairs, self._bounds, self._lines, {}
+        zero, found = self._table(many, 6, pairs, bounds), []
         while len(found) < levels:
-            found.append(self._table(self._count(self._take("level", 2)[1]), 6, self._pairs, self._bounds))
+            line = lines[self._at] if self._at < len(lines) else None
+            if line in sizes:
+                self._at = self._at + 1
+            else:
+                sizes[line] = self._count(self._take("level", 2)[1])
+            found.append(self._table(sizes[line], 6, pairs, bounds))
         return zero, found
 
     def _table(self, many, length, keys, numbers):
@@ -105,74 +123,85 @@ class PaperReader:
 
         What was read already is in keys and numbers.
         """
-        found, first = {}, self._at
+        found, first, is_right = {}, self._at, True
         lines = self._lines[first:first + many]
-        for at, line in enumerate(lines, first):
+        for line in lines:
             ahead, _, word = line.rpartition(" ")
             if ahead not in keys:
-                keys[ahead] = nodes_told(ahead.split(" "), length)
+                keys[ahead] = self._told(ahead.split(" "), length)
+                is_right = is_right and keys[ahead] is not None
             if word not in numbers:
                 numbers[word] = read_integer(word, GREATEST_TOLD)
-            key, number = keys[ahead], numbers[word]
-            if key is None or number is None or key in found:
-                raise ParseError(at)
-            found[key] = number
-        self._go_to(first + len(lines), first + many)
+                is_right = is_right and numbers[word] is not None
+            found[keys[ahead]] = numbers[word]
+        if not is_right or len(found) < many:
+            raise ParseError(first + first_wrong(lines, keys, numbers))
+        self._at = first + many
         return found
 
     def _rules(self, many):
         """The list of so many rules of a short run."""
-        found, first, counts = [], self._at, self._counts
+        found, first = [], self._at
         lines = self._lines[first:first + many]
-        for at, line in enumerate(lines, first):
+        counts = {str(at): at for at in range(len(lines))}
+        for line in lines:
             words = line.split(" ")
             if words[0] == "both" and len(words) == 3:
-                for word in words[1:]:
-                    if word not in counts:
-                        counts[word] = read_count(word, GREATEST_TOLD)
-                rule = ("both", counts[words[1]], counts[words[2]])
+                _, one, other = words
+                if one not in counts:
+                    counts[one] = read_count(one, GREATEST_TOLD)
+                if other not in counts:
+                    counts[other] = read_count(other, GREATEST_TOLD)
+                rule = ("both", counts[one], counts[other])
             else:
                 rule = self._walk(words)
-            if None in rule:
-                raise ParseError(at)
+            if rule[1] is None or rule[2] is None:
+                raise ParseError(first + len(found))
             found.append(rule)
-        self._go_to(first + len(lines), first + many)
+        self._at = first + len(lines)
+        if len(lines) < many:
+            raise ParseError(self._at)
         return found
 
     def _walk(self, words):
         """The rule of a walk that is written with these words, with None for what is not as written."""
         if words[0] != "walk" or len(words) < 4:
-            return (None,)
+            return ("walk", None, None)
         steps, known = words[4:], self._steps
         for word in steps:
             if word not in known:
-                known[word] = nodes_told(word.split(":"), 3)
+                known[word] = self._told(word.split(":"), 3)
         found = tuple([known[word] for word in steps])
-        return ("walk", node_told(words[1:4]), None if None in found else found)
+        return ("walk", self._node(words[1], words[2], words[3]), None if None in found else found)
 
-    def _go_to(self, last, wished):
-        """Goes on behind the lines that were read, the last one not included; raises ParseError if some are missing."""
-        self._at = last
-        if last < wished:
-            raise ParseError(last)
+    def _told(self, words, length):
+        """The node, or the tuple of two nodes, that so many words, 3 or 6, stand for; None if they do not."""
+        if len(words) != length:
+            return None
+        if length == 3:
+            return self._node(words[0], words[1], words[2])
+        first, second = self._node(words[0], words[1], words[2]), self._node(words[3], words[4], words[5])
+        return None if first is None or second is None else (first, second)
+
+    def _node(self, point, plus, minus):
+        """The node that three words stand for, or None."""
+        counts, sides = self._counts, self._sides
+        if point not in counts:
+            counts[point] = read_count(point, GREATEST_TOLD)
+        if counts[point] is None or not (plus in sides and minus in sides or self._are_sides(plus, minus)):
+            return None
+        return (counts[point], sides[plus], sides[minus])
 
 
-def nodes_told(words, length):
-    """The node, or the tuple of two nodes, that so many words, 3 or 6, stand for; None if they do not."""
-    if len(words) != length:
-        return None
-    if length == 3:
-        return node_told(words)
-    first, second = node_told(words[:3]), node_told(words[3:])
-    return None if first is None or second is None else (first, second)
-
-
-def node_told(words):
-    """The node that three words stand for, or None."""
-    index = read_count(words[0], GREATEST_TOLD)
-    if index is None or not is_side_word(words[1]) or not is_side_word(words[2]):
-        return None
-    return (index, side_of(words[1]), side_of(words[2]))
+def first_wrong(lines, keys, numbers):
+    """The index of the first line of a table that is wrong, or their number: what their words stand for is known."""
+    met = {}
+    for at, line in enumerate(lines):
+        ahead, _, word = line.rpartition(" ")
+        if keys[ahead] is None or numbers[word] is None or ahead in met:
+            return at
+        met[ahead] = True
+    return len(lines)
 
 
 def read_limit(word):

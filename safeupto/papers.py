@@ -3,26 +3,37 @@
 from safeupto.bounding import Inspector
 from safeupto.errors import InvalidNumber
 from safeupto.kinds import GREATEST, is_integer, is_within
-from safeupto.nets import MOST_HEADS, full_net_for, heads_of, plain_net_for
+from safeupto.nets import MOST_HEADS, full_net_for, heads_of, leads_of, plain_net_for
 from safeupto.powers import bounds_for
 from safeupto.reckoning import reckoning_for
-from safeupto.rings import outs_along, settle
+from safeupto.rings import settle
 
 
 def heights(program, condition):
-    """Heights for a condition; None if it does not hold for ever."""
+    """Heights for a condition, in the order of the nodes; None if it does not hold for ever."""
     net = plain_net_for(program, condition, True)
-    worths = [None] * net.many
-    for at in net.entries:
-        worths[at] = net.entries[at]
-    _, rings = settle(outs_along(net.many, net.moves, 0, 1), worths)
-    if len(rings) > 0 or max([worths[at] for at in net.exits]) > condition[3]:
+    worths = greatest_worths(net)
+    if worths is None or max([worths[at] for at in net.exits]) > condition[3]:
         return None
     return spread(net, worths)
 
 
+def greatest_worths(net):
+    """The list of the greatest values at the nodes of a net; None if some are endless."""
+    worths = [None] * net.many
+    for at in net.entries:
+        worths[at] = net.entries[at]
+    _, rings = settle(leads_of(net), worths)
+    return worths if len(rings) == 0 else None
+
+
+def heights_on(net):
+    """Heights for a condition with this merged net that holds for ever, in the order of the nodes."""
+    return spread(net, greatest_worths(net))
+
+
 def spread(net, worths):
-    """The dict from all nodes that matter to the worths of a merged net."""
+    """The dict from all nodes that matter, in their order, to the worths of a merged net."""
     twos, index, spots, width = net.ground.twos, net.index, net.spots, net.width
     return {(point, *twos[code]): worths[index[spots[point] * width + code]] for point, code in net.all_places()}
 
@@ -38,8 +49,14 @@ def worths_told(net, value):
     """The list of the integers of a dict from exactly the nodes that matter; None if it is no such dict."""
     if not isinstance(value, dict) or len(value) != net.many:
         return None
-    worths = [value.get(node) for node in net.nodes()]
-    return worths if all([is_integer(worth) for worth in worths]) else None
+    try:
+        worths = [value[node] for node in net.nodes()]
+    except KeyError:
+        return None
+    for worth in worths:
+        if not isinstance(worth, int) or worth is True or worth is False:
+            return None
+    return worths
 
 
 def are_kept(net, worths, p, q):
@@ -56,7 +73,7 @@ def are_settled(net, worths, p, q):
 
 
 def bounds(program, condition, size, most):
-    """Bounds for a count; None if the condition does not hold up to it."""
+    """Bounds for a count, in the order of the tuples of nodes; None if the condition does not hold up to it."""
     reckoning = reckoning_for(program, condition, size)
     if not is_within(most, 0, GREATEST):
         raise InvalidNumber(most)

@@ -24,14 +24,10 @@ def bounds_for(reckoning, most):
 
 
 def zero_bounds(net, heads, reaches):
-    """The dict from tuples (head, node) to the greatest sums of walks that count nothing."""
+    """The dict from tuples (head, node), in their order, to the greatest sums of walks that count nothing."""
     twos, spots, width, index = net.ground.twos, net.spots, net.width, net.index
-    found = {}
-    for point, code in net.all_places():
-        node, reach = (point, *twos[code]), reaches[index[spots[point] * width + code]]
-        for at in reach:
-            found[(heads[at], node)] = reach[at]
-    return found
+    rows = [((point, *twos[code]), reaches[index[spots[point] * width + code]]) for point, code in net.all_places()]
+    return {(head, node): reach[at] for at, head in enumerate(heads) for node, reach in rows if at in reach}
 
 
 def with_endless(bounds):
@@ -89,14 +85,15 @@ def first_level(hops, reaches):
 
 
 def levels_from(level, many, length):
-    """The list of so many levels, the first one given, each with the sums of two walks of the one before."""
+    """The list of so many levels with places in their order, each with the sums of two walks of the one before."""
     found, pairs, size = [], [], 0
     while len(found) < length:
         if len(found) > 0:
-            # Later levels have at least the places of earlier ones.
-            if len(level) > size:
-                pairs, size = pairs_in(level, many), len(level)
             level = doubled(level, pairs)
+        if len(level) > size:
+            # Later levels have at least the places of earlier ones.
+            level = {place: level[place] for place in sorted(level)}
+            pairs, size = pairs_in(level, many), len(level)
         found.append(level)
     return found
 

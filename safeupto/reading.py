@@ -16,8 +16,14 @@ HEADS = ("var", "param", "array", "width", "proc", "main")
 PLAIN = ("set", "place", "input", "call", "read", "guard")
 
 
+# Most integers are written with one digit.
+DIGITS = {"0": 0, "1": 1, "2": 2, "3": 3, "4": 4, "5": 5, "6": 6, "7": 7, "8": 8, "9": 9}
+
+
 def read_integer(word, greatest=GREATEST_WRITTEN):
     """The integer that is written like this, at most the greatest one, also without its sign, or None."""
+    if word in DIGITS:
+        return DIGITS[word]
     try:
         number = int(word)
     except ValueError:

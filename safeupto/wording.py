@@ -1,7 +1,6 @@
 """The words of conditions and sizes, and the lines of papers."""
 
 from safeupto.kinds import is_name
-from safeupto.nets import node_order
 from safeupto.reading import read_integer
 
 KINDS = ("rounds", "calls", "steps")
@@ -51,12 +50,7 @@ def limit_word(size):
 def node_words(node):
     """The words of a node."""
     point, plus, minus = node
-    return f"{point} {side_word(plus)} {side_word(minus)}"
-
-
-def pair_order(pair):
-    """What tuples of two nodes are sorted by."""
-    return (*node_order(pair[0]), *node_order(pair[1]))
+    return f"{point} {plus or '-'} {minus or '-'}"
 
 
 def condition_line(condition):
@@ -66,9 +60,8 @@ def condition_line(condition):
 
 
 def heights_lines(heights):
-    """The lines of heights."""
-    nodes = sorted(list(heights), key=node_order)
-    return [f"heights {len(nodes)}", *[f"{node_words(node)} {heights[node]}" for node in nodes]]
+    """The lines of heights, in their order."""
+    return [f"heights {len(heights)}", *[f"{node_words(node)} {heights[node]}" for node in heights]]
 
 
 def breaking_lines(size, most, rules):
@@ -81,20 +74,21 @@ def rule_line(rule):
     word, first, second = rule
     if word == "both":
         return f"both {first} {second}"
-    steps = [f"{edge}:{side_word(plus)}:{side_word(minus)}" for edge, plus, minus in second]
+    steps = [f"{edge}:{plus or '-'}:{minus or '-'}" for edge, plus, minus in second]
     return " ".join(["walk", node_words(first), *steps])
 
 
 def bounds_lines(size, most, bounds):
-    """The lines of bounds for a size and a count."""
+    """The lines of bounds for a size and a count, in their order."""
     zero, levels = bounds
-    lines = [f"bounds {size_words(size)} {most} {len(zero)} {len(levels)}", *pair_lines(zero)]
+    lines = [f"bounds {size_words(size)} {most} {len(zero)} {len(levels)}"]
+    lines.extend([f"{node_words(head)} {node_words(node)} {zero[(head, node)]}" for head, node in zero])
+    pairs, words = [], []
     for level in levels:
-        lines.extend([f"level {len(level)}", *pair_lines(level)])
+        # Most levels are about the same pairs as the one before.
+        if list(level) != pairs:
+            pairs = list(level)
+            words = [f"{node_words(head)} {node_words(other)}" for head, other in pairs]
+        lines.append(f"level {len(pairs)}")
+        lines.extend([f"{word} {level[pair]}" for word, pair in zip(words, pairs)])
     return lines
-
-
-def pair_lines(bounds):
-    """The lines of a dict from tuples of two nodes to bounds."""
-    return [f"{node_words(pair[0])} {node_words(pair[1])} {bounds[pair]}"
-            for pair in sorted(list(bounds), key=pair_order)]
