@@ -2,7 +2,9 @@
 
 from safeupto.errors import InvalidCondition, InvalidSize
 from safeupto.graphs import graph_of
-from safeupto.kinds import is_name, is_number, is_within
+from safeupto.kinds import is_number, is_within
+
+KINDS = ("rounds", "calls", "steps")
 
 
 def is_condition(program, value):
@@ -45,8 +47,8 @@ def is_size(program, value):
     if not isinstance(kind, str):
         return False
     if name is None:
-        return kind in ("rounds", "calls", "steps")
-    if not is_name(name):
+        return kind in KINDS
+    if not isinstance(name, str):
         return False
     if kind == "rounds":
         return name in program.loops

@@ -1,7 +1,7 @@
 """Guards: which of them make a condition hold for ever, and which do so at the least cost."""
 
 from safeupto.bounding import is_bound, is_least
-from safeupto.capping import ENDLESS, Ceilings, caps_on, ceilings_of
+from safeupto.capping import ENDLESS, caps_on, ceilings_of
 from safeupto.errors import InvalidCondition, InvalidName, TooMany
 from safeupto.grounds import Net
 from safeupto.machine import are_guards
@@ -111,7 +111,13 @@ def is_as_great(bound, ahead, weight, cap):
 
 
 def choices_of(program):
-    """The sorted list of the tuples (cost, sorted tuple of guards) of all choices of guards."""
+    """The sorted list of the tuples (cost, sorted tuple of guards) of all choices of guards, not to be changed."""
+    found = program.recalled("choices")
+    return program.remember("choices", all_choices(program)) if found is None else found
+
+
+def all_choices(program):
+    """The same list, made anew."""
     costs = {}
     for body in [program.main, *[body for _, body in program.procedures]]:
         for _, name, _, _, cost in guards_in(body):
@@ -130,7 +136,7 @@ def least_choice(program, condition, choices):
     lacking = []
     for cost, names in choices:
         if not any([are_apart(names, missed) for missed in lacking]):
-            ceilings = Ceilings(net, caps_on(net, names))
+            ceilings = ceilings_of(net, names)
             if ceilings.greatest() <= condition[3]:
                 return cost, names
             met = {guards[index]: True for index in ceilings.moves_to_greatest() if index in guards}

@@ -14,32 +14,37 @@ class Reckoning:
         self.heads = heads
         self.hops = Hops(net.many, moves, heads, net.exits)
         self.tails = Tails(self.hops.rows, self.hops.lasts, len(heads))
+        entries = net.entries
+        self._begins = [(at, entries[head]) for at, head in enumerate(heads) if head in entries]
+        self._growths = {}
 
     def begins(self):
-        """The list of the tuples (place among the heads, start) of the beginning nodes."""
-        entries = self.net.entries
-        return [(at, entries[head]) for at, head in enumerate(self.heads) if head in entries]
+        """The list of the tuples (place among the heads, start) of the beginning nodes, which is not to be changed."""
+        return self._begins
 
     def growth(self, at):
-        """How the greatest sums of walks from a head grow."""
-        return self.tails.growth(at, self.hops.least_endless(at))
+        """How the greatest sums of walks from a head grow, which is found once and not to be changed."""
+        if at not in self._growths:
+            self._growths[at] = self.tails.growth(at, self.hops.least_endless(at))
+        return self._growths[at]
 
     def whole(self):
         """How the greatest values grow."""
         whole = None
-        for at, start in self.begins():
+        for at, start in self._begins:
             growth = raised(self.growth(at), start)
             whole = growth if whole is None else joined(whole, growth)
         return whole
 
     def break_above(self, most):
         """The first count for which the greatest value is greater than most, and the head it is from, or None."""
-        begins, vectors = self.begins(), self.tails.upto(SOON - 1)
+        begins, hops, vectors = self._begins, self.hops, self.tails.upto(SOON - 1)
         # Where it is at once, it is not asked how the values grow.
         for count in range(SOON):
+            vector = vectors[count]
             for at, start in begins:
                 # Where there is no walk, the sum is less than anything.
-                if start + vectors[count][at] > most or self.hops.least_endless(at) == count:
+                if start + vector[at] > most or hops.far is not None and hops.least_endless(at) == count:
                     return (count, at)
         found = None
         for at, start in begins:
@@ -51,7 +56,7 @@ class Reckoning:
     def value_for(self, count):
         """The greatest value for a count: an integer, None or "endless"."""
         values = []
-        for at, start in self.begins():
+        for at, start in self._begins:
             endless = self.hops.least_endless(at)
             if endless is not None and endless <= count:
                 return "endless"

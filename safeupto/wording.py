@@ -1,9 +1,8 @@
 """The words of conditions and sizes, and the lines of papers."""
 
+from safeupto.conditions import KINDS
 from safeupto.kinds import is_name
 from safeupto.reading import read_integer
-
-KINDS = ("rounds", "calls", "steps")
 
 
 def side_word(side):
