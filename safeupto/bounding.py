@@ -32,6 +32,15 @@ def pairs_in(shape, many):
             for place in shape for last in lasts[place % many]]
 
 
+def are_bounds(values):
+    """Whether each of these values is a bound."""
+    for value in values:
+        if not isinstance(value, int) or value is True or value is False:
+            if not is_bound(value):
+                return False
+    return True
+
+
 def told_by(table, places):
     """What a dict from keys of places to bounds tells: its shape, its bounds, and whether all of them are integers.
 
@@ -47,7 +56,7 @@ def told_by(table, places):
     odd = [bound for bound in bounds if not isinstance(bound, int) or bound is True or bound is False]
     if len(odd) == 0:
         return shape, bounds, True
-    return (shape, bounds, False) if all([is_bound(bound) for bound in odd]) else None
+    return (shape, bounds, False) if are_bounds(odd) else None
 
 
 class Inspector:
@@ -56,20 +65,11 @@ class Inspector:
     def __init__(self, net, heads):
         nodes = net.nodes()
         spots = [nodes[head] for head in heads]
+        self._net = net
         self._heads = heads
-        self._many = len(nodes)
-        self._places = {key: place for place, key in enumerate([(head, node) for head in spots for node in nodes])}
-        self._spots = {key: place for place, key in enumerate([(head, other) for head in spots for other in spots])}
-        numbers = {head: at for at, head in enumerate(heads)}
-        self._starts = {numbers[at]: net.entries[at] for at in net.entries}
-        self._exits = {at: True for at in net.exits}
-        # Where steps lead: those that are not counted to nodes, the others to numbers of heads.
-        self._leads, self._counted = [[] for _ in nodes], [[] for _ in nodes]
-        for source, _, target, weight, counted in net.moves:
-            if counted == 0:
-                self._leads[source].append((target, weight))
-            else:
-                self._counted[source].append((numbers[target], weight))
+        self._numbers = {head: at for at, head in enumerate(heads)}
+        self._keys = [[(head, node) for node in nodes] for head in spots]
+        self._places = {key: place for place, key in enumerate([(head, other) for head in spots for other in spots])}
         # What was found out about shapes.
         self._ways = {}
         self._sums = {}
@@ -80,30 +80,33 @@ class Inspector:
             return False
         if len(value[1]) != most.bit_length():
             return False
-        zero, levels = told_by(value[0], self._places), [told_by(level, self._spots) for level in value[1]]
-        if zero is None or None in levels:
+        rows, levels = self._rows(value[0]), [told_by(level, self._places) for level in value[1]]
+        if rows is None or None in levels:
             return False
-        bounds = {place: bound for place, bound in zip(zero[0], zero[1])}
         first = {place: bound for place, bound in zip(levels[0][0], levels[0][1])} if most > 0 else None
-        return (self._begin_well(bounds, first) and self._double_well(levels)
-                and self._end_well(bounds, levels, most, limit))
+        return (self._begin_well(rows, first) and self._double_well(levels)
+                and self._end_well(rows, levels, most, limit))
 
-    def _begin_well(self, zero, first):
+    def _rows(self, table):
+        """For each head the list of the bounds to all nodes, None where there is none; None if it is no such dict."""
+        if not isinstance(table, dict):
+            return None
+        rows = [[table.get(key) for key in keys] for keys in self._keys]
+        told = [bound for row in rows for bound in row if bound is not None]
+        return rows if len(told) == len(table) and are_bounds(told) else None
+
+    def _begin_well(self, rows, first):
         """Whether the bounds in zero and in the first level, if there is one, are great enough for single steps."""
-        many, width = self._many, len(self._heads)
+        width, moves, numbers = len(self._heads), self._net.moves, self._numbers
         for at, head in enumerate(self._heads):
-            if not is_least(zero.get(at * many + head), 0, 0):
+            row = rows[at]
+            if not is_least(row[head], 0, 0) or first is not None and not is_least(first.get(at * width + at), 0, 0):
                 return False
-            if first is not None and not is_least(first.get(at * width + at), 0, 0):
-                return False
-        for place, ahead in zero.items():
-            node, at = place % many, place // many
-            for target, weight in self._leads[node]:
-                if not is_least(zero.get(at * many + target), ahead, weight):
-                    return False
-            if first is not None:
-                for target, weight in self._counted[node]:
-                    if not is_least(first.get(at * width + target), ahead, weight):
+            for source, _, target, weight, counted in moves:
+                ahead = row[source]
+                if ahead is not None and (counted == 0 or first is not None):
+                    bound = row[target] if counted == 0 else first.get(at * width + numbers[target])
+                    if bound is None or bound != "endless" and (ahead == "endless" or bound < ahead + weight):
                         return False
         return True
 
@@ -124,17 +127,21 @@ class Inspector:
                 return False
         return True
 
-    def _end_well(self, zero, levels, most, limit):
+    def _end_well(self, rows, levels, most, limit):
         """Whether the values at the ends are at most the limit if one goes along these bounds."""
-        many, width, known, values = self._many, len(self._heads), self._ways, self._starts
+        width, known, net = len(self._heads), self._ways, self._net
+        values = {self._numbers[at]: net.entries[at] for at in net.entries}
         for digit, (shape, bounds, _) in enumerate(levels):
             if most >> digit & 1 == 1:
                 if shape not in known:
                     self._keep(known, shape, [(place // width, place % width) for place in shape])
                 values = gone_along(values, known[shape], bounds)
-        places = [place for place in zero if place % many in self._exits]
-        ways, bounds = [(place // many, place % many) for place in places], [zero[place] for place in places]
-        return all([end != "endless" and end <= limit for end in gone_along(values, ways, bounds).values()])
+        for at, value in values.items():
+            for last in net.exits:
+                bound = rows[at][last]
+                if bound is not None and (value == "endless" or bound == "endless" or value + bound > limit):
+                    return False
+        return True
 
     def _keep(self, known, key, found):
         """Keeps what was found out about shapes, of which few are kept."""

@@ -56,30 +56,6 @@ def with_number(variable, word, sign):
     return (variable, sign * number)
 
 
-def read_set(words, parts):
-    """The row of a set that is written with these words, or None; parts reads those of parts."""
-    if len(words) < 3 or not is_name(words[1]):
-        return None
-    found = [parts.read(word) for word in words[2:]]
-    return None if None in found else ("set", words[1], tuple(found))
-
-
-class Parts:
-    """Reads words of parts, each word once; parameters has the names of the parameters as keys."""
-
-    def __init__(self, parameters):
-        self._parameters = parameters
-        self._known = {}
-
-    def read(self, word):
-        """The part that is written like this, or None."""
-        part = self._known.get(word)
-        if part is None:
-            part = read_part(word, self._parameters)
-            self._known[word] = part
-        return part
-
-
 class Reader:
     """Reads the lines of a program, which are those from the index first on, up to one ahead of the index last."""
 
@@ -88,11 +64,11 @@ class Reader:
         self._at = first
         self._last = last
         self._parameters = {}
-        self._parts = Parts(self._parameters)
-        # What was read once is not looked at again: rows by their lines, integers and names by their words.
-        self._rows = {}
-        self._integers = {}
+        # What was read once is not looked at again: rows by their lines, the others by their words.
+        self._rows = {"main": ("main",), "either": ("either",), "or": ("or",), "end": ("end",)}
+        self._integers = dict(DIGITS)
         self._names = {}
+        self._parts = {}
 
     def read(self):
         """A dict from the words of HEADS to lists of what these lines say, and for main to its body."""
@@ -137,43 +113,51 @@ class Reader:
         at = self._at
         if at == self._last:
             raise ParseError(at)
-        line = self._lines[at]
-        row = self._rows.get(line)
-        if row is None:
+        line, rows = self._lines[at], self._rows
+        if line not in rows:
             row = self._row(line.split(" "))
             if row is None:
                 raise ParseError(at)
-            self._rows[line] = row
+            rows[line] = row
         self._at = at + 1
-        return row
+        return rows[line]
 
     def _row(self, words):
         """The tuple of the first word and the names and integers that are written like this, or None."""
-        word = words[0]
+        word, known = words[0], self._names
         if word == "set":
-            return read_set(words, self._parts)
-        kinds = KINDS.get(word)
-        if kinds is None:
+            return self._set(words)
+        if word not in KINDS:
             return None
-        names, integers = kinds
+        names, integers = KINDS[word]
         if len(words) != names + integers + 1:
             return None
         for name in words[1:names + 1]:
-            if name not in self._names and not self._is_new(name):
+            if name not in known and not self._is_new(name):
                 return None
         if integers == 0:
             return tuple(words)
-        numbers = [self._integer(other) for other in words[names + 1:]]
+        numbers, known = [], self._integers
+        for other in words[names + 1:]:
+            if other not in known:
+                known[other] = read_integer(other)
+            numbers.append(known[other])
         return None if None in numbers else (*words[:names + 1], *numbers)
+
+    def _set(self, words):
+        """The row of a set that is written with these words, or None."""
+        if len(words) < 3 or words[1] not in self._names and not self._is_new(words[1]):
+            return None
+        found, known = [], self._parts
+        for word in words[2:]:
+            if word not in known:
+                known[word] = read_part(word, self._parameters)
+            found.append(known[word])
+        return None if None in found else ("set", words[1], tuple(found))
 
     def _is_new(self, word):
         """Whether a word is a name, which is kept."""
         if is_name(word):
             self._names[word] = True
-        return word in self._names
-
-    def _integer(self, word):
-        """The integer that is written like this, or None."""
-        if word not in self._integers:
-            self._integers[word] = read_integer(word)
-        return self._integers[word]
+            return True
+        return False
