@@ -39,7 +39,7 @@ def holding_lines(reckoning, size, most, limit):
     """The lines of heights for a condition with this limit, or of bounds if it does not hold for ever."""
     if limit is None:
         return heights_lines(heights_on(reckoning.net))
-    return bounds_lines(size, most, bounds_for(reckoning, most))
+    return bounds_lines(size, most, bounds_for(reckoning, most, None))
 
 
 def judge(text):

@@ -212,9 +212,11 @@ class Net:
         """The index of the node with the value at a point."""
         return self.index[self.spots[point] * self.width + code]
 
-    def all_places(self):
-        """The sorted list of the tuples (point, code) of all nodes from which steps lead to ends."""
-        return [(point, code) for point, some in enumerate(self._codes) for code in some]
+    def at_all_nodes(self, things):
+        """The list of the tuples (node, thing) of all nodes that matter, in their order; things are told by indices."""
+        twos, index, width, spots = self.ground.twos, self.index, self.width, self.spots
+        return [((point, *twos[code]), things[index[spots[point] * width + code]])
+                for point, codes in enumerate(self._codes) for code in codes]
 
     def has_node(self, node):
         """Whether there is an index of a node, a tuple (point, plus, minus)."""

@@ -30,8 +30,8 @@ class Hops:
             self.rings, self.outs = gaining_rings(many, moves)
             seeds = [(head, at) for at, head in enumerate(heads) if head not in self.rings]
             self.reaches = flooded(self.outs, seeds, None)
-        self.rows = self._rows()
-        self.lasts = self._lasts()
+        self._rows = None
+        self._lasts = None
         self.near, self.far = None, None
         if len(self.rings) > 0:
             self.near = backward(many, moves, {at: 0 for at in exits})
@@ -39,8 +39,19 @@ class Hops:
             self.far = backward(many, moves, {at: near[at] for at in self.rings if near[at] is not None})
         self._risen = {}
 
-    def _rows(self):
-        """For each head the list of tuples (place of a head, greatest sum) of at most one counted step."""
+    def all_hops(self):
+        """For each head the list of tuples (place of a head, greatest sum) of at most one counted step, made once."""
+        if self._rows is None:
+            self._rows = self._made_rows()
+        return self._rows
+
+    def last_sums(self):
+        """The list of the greatest sums of walks from heads to end nodes that count nothing, or None, made once."""
+        if self._lasts is None:
+            self._lasts = self._made_lasts()
+        return self._lasts
+
+    def _made_rows(self):
         rings = self.rings
         rows = [{} if head in rings else {at: 0} for at, head in enumerate(self.heads)]
         for source, target, weight, _ in self.counted:
@@ -51,8 +62,7 @@ class Hops:
                         row[target] = worth
         return [list(row.items()) for row in rows]
 
-    def _lasts(self):
-        """The list of the greatest sums of walks from heads to end nodes that count nothing, or None."""
+    def _made_lasts(self):
         found = [None] * len(self.heads)
         for last in self.exits:
             for at, reach in self.reaches[last].items():
@@ -94,7 +104,7 @@ class Hops:
         """The indices of the moves of a greatest walk from a head that counts nothing to an end node, and this one."""
         for last in self.exits:
             reach = self.reaches[last].get(at)
-            if reach is not None and reach == self.lasts[at]:
+            if reach is not None and reach == self.last_sums()[at]:
                 return path_to(self._risen_from(at), last), last
         return None
 

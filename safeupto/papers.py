@@ -7,6 +7,7 @@ from safeupto.nets import MOST_HEADS, full_net_for, heads_of, leads_of, plain_ne
 from safeupto.powers import bounds_for
 from safeupto.reckoning import reckoning_for
 from safeupto.rings import settle
+from safeupto.tails import FEW
 
 
 def heights(program, condition):
@@ -34,8 +35,7 @@ def heights_on(net):
 
 def spread(net, worths):
     """The dict from all nodes that matter, in their order, to the worths of a merged net."""
-    twos, index, spots, width = net.ground.twos, net.index, net.spots, net.width
-    return {(point, *twos[code]): worths[index[spots[point] * width + code]] for point, code in net.all_places()}
+    return dict(net.at_all_nodes(worths))
 
 
 def is_heights(program, condition, value):
@@ -77,10 +77,13 @@ def bounds(program, condition, size, most):
     reckoning = reckoning_for(program, condition, size)
     if not is_within(most, 0, GREATEST):
         raise InvalidNumber(most)
+    if most < FEW:
+        # The value is found along the bounds themselves.
+        return bounds_for(reckoning, most, condition[3])
     value = reckoning.value_for(most)
     if value == "endless" or (value is not None and value > condition[3]):
         return None
-    return bounds_for(reckoning, most)
+    return bounds_for(reckoning, most, None)
 
 
 def is_bounds(program, condition, size, most, value):

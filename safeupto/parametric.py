@@ -22,7 +22,7 @@ def whole_of(reckoning):
     """How the greatest worths grow, each gain being that of a ring."""
     whole = None
     for at, start in reckoning.begins():
-        tails, endless = reckoning.tails, reckoning.hops.least_endless(at)
+        tails, endless = reckoning.tails(), reckoning.hops.least_endless(at)
         growth = tails.staged_growth(at) if endless is None else (tails.early(at, endless), [], endless)
         growth = raised(growth, start * FACTOR)
         whole = growth if whole is None else joined(whole, growth)

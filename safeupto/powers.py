@@ -5,28 +5,53 @@ the number of another one.
 """
 
 from safeupto.bounding import pairs_in
+from safeupto.vectors import LEAST
 
 # Greater than each sum of a walk, also if anything that a walk can have is taken from it.
 ENDLESS = 1 << 1000
 
 
-def bounds_for(reckoning, most):
-    """The tuple (zero, levels) of the least bounds for a count."""
-    net, hops = reckoning.net, reckoning.hops
-    heads, reaches = [net.node(head) for head in reckoning.heads], reaches_with_rings(hops)
-    zero = zero_bounds(net, heads, reaches)
+def bounds_for(reckoning, most, limit):
+    """The tuple (zero, levels) of the least bounds for a count; None if values at the ends are greater than the limit.
+
+    If the limit is None, no value is.
+    """
+    net, hops, many = reckoning.net, reckoning.hops, len(reckoning.heads)
+    reaches = reaches_with_rings(hops)
+    levels = levels_from(first_level(hops, reaches), many, most.bit_length())
+    if limit is not None and greatest_along(reckoning, reaches, levels, most) > limit:
+        return None
+    heads = [net.node(head) for head in reckoning.heads]
     pairs = [(head, other) for head in heads for other in heads]
-    levels = [{pairs[place]: level[place] for place in level}
-              for level in levels_from(first_level(hops, reaches), len(heads), most.bit_length())]
+    zero = zero_bounds(net, heads, reaches)
+    levels = [{pairs[place]: level[place] for place in level} for level in levels]
     if len(hops.rings) == 0:
         return zero, levels
     return with_endless(zero), [with_endless(level) for level in levels]
 
 
+def greatest_along(reckoning, reaches, levels, most):
+    """The greatest value at the ends for a count, if one goes along these bounds; LEAST if there is none."""
+    values, many = {at: start for at, start in reckoning.begins()}, len(reckoning.heads)
+    for digit, level in enumerate(levels):
+        if most >> digit & 1 == 1:
+            found = {}
+            for place in level:
+                at, last = place // many, place % many
+                if at in values and (last not in found or found[last] < values[at] + level[place]):
+                    found[last] = values[at] + level[place]
+            values = found
+    worth = LEAST
+    for last in reckoning.hops.exits:
+        for at, reach in reaches[last].items():
+            if at in values and values[at] + reach > worth:
+                worth = values[at] + reach
+    return worth
+
+
 def zero_bounds(net, heads, reaches):
     """The dict from tuples (head, node), in their order, to the greatest sums of walks that count nothing."""
-    twos, spots, width, index = net.ground.twos, net.spots, net.width, net.index
-    rows = [((point, *twos[code]), reaches[index[spots[point] * width + code]]) for point, code in net.all_places()]
+    rows = net.at_all_nodes(reaches)
     return {(head, node): reach[at] for at, head in enumerate(heads) for node, reach in rows if at in reach}
 
 

@@ -13,7 +13,7 @@ class Reckoning:
         self.net = net
         self.heads = heads
         self.hops = Hops(net.many, moves, heads, net.exits)
-        self.tails = Tails(self.hops.rows, self.hops.lasts, len(heads))
+        self._tails = None
         entries = net.entries
         self._begins = [(at, entries[head]) for at, head in enumerate(heads) if head in entries]
         self._growths = {}
@@ -22,10 +22,16 @@ class Reckoning:
         """The list of the tuples (place among the heads, start) of the beginning nodes, which is not to be changed."""
         return self._begins
 
+    def tails(self):
+        """The greatest sums from heads to end nodes, which are made once."""
+        if self._tails is None:
+            self._tails = Tails(self.hops.all_hops(), self.hops.last_sums(), len(self.heads))
+        return self._tails
+
     def growth(self, at):
         """How the greatest sums of walks from a head grow, which is found once and not to be changed."""
         if at not in self._growths:
-            self._growths[at] = self.tails.growth(at, self.hops.least_endless(at))
+            self._growths[at] = self.tails().growth(at, self.hops.least_endless(at))
         return self._growths[at]
 
     def whole(self):
@@ -38,7 +44,7 @@ class Reckoning:
 
     def break_above(self, most):
         """The first count for which the greatest value is greater than most, and the head it is from, or None."""
-        begins, hops, vectors = self._begins, self.hops, self.tails.upto(SOON - 1)
+        begins, hops, vectors = self._begins, self.hops, self.tails().upto(SOON - 1)
         # Where it is at once, it is not asked how the values grow.
         for count in range(SOON):
             vector = vectors[count]
@@ -60,7 +66,7 @@ class Reckoning:
             endless = self.hops.least_endless(at)
             if endless is not None and endless <= count:
                 return "endless"
-            value = self.tails.greatest(at, count)
+            value = self.tails().greatest(at, count)
             if value is not None:
                 values.append(start + value)
         return max(values, default=None)

@@ -32,7 +32,7 @@ def staircase(program, condition, first, second, most):
     hops = Hops(many * (most + 1), layered(net, ones, others, most),
                 [head + many * layer for layer in range(most + 1) for head in heads],
                 [last + many * layer for layer in range(most + 1) for last in net.exits])
-    tails = Tails(hops.rows, hops.lasts, len(heads))
+    tails = Tails(hops.all_hops(), hops.last_sums(), len(heads))
     return [limit_from(net, hops, tails, heads, layer, condition[3]) for layer in range(most + 1)]
 
 

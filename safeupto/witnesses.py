@@ -41,7 +41,7 @@ class Trail:
 
     def __init__(self, reckoning, rules):
         self._hops = reckoning.hops
-        self._tails = reckoning.tails
+        self._tails = reckoning.tails()
         self._rules = rules
         self._known = {}
 
@@ -90,6 +90,7 @@ class Trail:
     def _hop(self, first, second):
         """The index of the rule for a hop; None if nothing is gained by it."""
         if (first, second) not in self._known:
-            walk = [] if (second, 0) in self._hops.rows[first] and first == second else self._hops.hop(first, second)
+            is_idle = first == second and (second, 0) in self._hops.all_hops()[first]
+            walk = [] if is_idle else self._hops.hop(first, second)
             self._known[(first, second)] = self._rules.walk(walk)
         return self._known[(first, second)]
