@@ -5,8 +5,7 @@ number of a head. The places at which a level has bounds, in its order, are its 
 """
 
 
-# For how many shapes it is remembered what was found out about them.
-MOST_SHAPES = 16
+from safeupto.memory import keep
 
 
 def is_bound(value):
@@ -65,11 +64,13 @@ class Inspector:
     def __init__(self, net, heads):
         nodes = net.nodes()
         spots = [nodes[head] for head in heads]
-        self._net = net
+        self._moves = net.moves
+        self._exits = net.exits
         self._heads = heads
         self._numbers = {head: at for at, head in enumerate(heads)}
         self._keys = [[(head, node) for node in nodes] for head in spots]
         self._places = {key: place for place, key in enumerate([(head, other) for head in spots for other in spots])}
+        self._starts = {self._numbers[at]: net.entries[at] for at in net.entries}
         # What was found out about shapes.
         self._ways = {}
         self._sums = {}
@@ -97,7 +98,7 @@ class Inspector:
 
     def _begin_well(self, rows, first):
         """Whether the bounds in zero and in the first level, if there is one, are great enough for single steps."""
-        width, moves, numbers = len(self._heads), self._net.moves, self._numbers
+        width, moves, numbers = len(self._heads), self._moves, self._numbers
         for at, head in enumerate(self._heads):
             row = rows[at]
             if not is_least(row[head], 0, 0) or first is not None and not is_least(first.get(at * width + at), 0, 0):
@@ -116,7 +117,7 @@ class Inspector:
         for (shape, bounds, is_plain), (other, greater, are_plain) in zip(levels, levels[1:]):
             key = (shape, other)
             if key not in known:
-                self._keep(known, key, sums_in(shape, other, len(self._heads)))
+                keep(known, key, sums_in(shape, other, len(self._heads)))
             sums = known[key]
             if sums is None:
                 return False
@@ -129,25 +130,18 @@ class Inspector:
 
     def _end_well(self, rows, levels, most, limit):
         """Whether the values at the ends are at most the limit if one goes along these bounds."""
-        width, known, net = len(self._heads), self._ways, self._net
-        values = {self._numbers[at]: net.entries[at] for at in net.entries}
+        width, known, values = len(self._heads), self._ways, self._starts
         for digit, (shape, bounds, _) in enumerate(levels):
             if most >> digit & 1 == 1:
                 if shape not in known:
-                    self._keep(known, shape, [(place // width, place % width) for place in shape])
+                    keep(known, shape, [(place // width, place % width) for place in shape])
                 values = gone_along(values, known[shape], bounds)
         for at, value in values.items():
-            for last in net.exits:
+            for last in self._exits:
                 bound = rows[at][last]
                 if bound is not None and (value == "endless" or bound == "endless" or value + bound > limit):
                     return False
         return True
-
-    def _keep(self, known, key, found):
-        """Keeps what was found out about shapes, of which few are kept."""
-        if len(known) == MOST_SHAPES:
-            known.clear()
-        known[key] = found
 
 
 def sums_in(shape, other, many):

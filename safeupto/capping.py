@@ -15,11 +15,15 @@ NOWHERE = -ENDLESS
 
 def lowered_moves(net):
     """The list of the tuples (index, guard, bound) of the moves along edges of guards, for what these lower."""
-    found, edges, pairs = [], net.ground.chart.edges, net.ground.twos
+    ground = net.ground
+    guards = {edge: action for edge, (_, _, action) in enumerate(ground.chart.edges)
+              if action is not None and action[0] == "guard"}
+    found = []
     for index, (source, edge, _, _, _) in enumerate(net.moves):
-        action = edges[edge][2]
-        if action is not None and action[0] == "guard" and action[2] == pairs[net.stands[source][1]][0]:
-            found.append((index, action[1], action[3]))
+        if edge in guards:
+            _, name, variable, bound, _ = guards[edge]
+            if variable == ground.twos[net.stands[source][1]][0]:
+                found.append((index, name, bound))
     return found
 
 
@@ -49,7 +53,8 @@ class Ceilings:
 
     def __init__(self, net, caps):
         self.caps = caps
-        self._net = net
+        self._moves = net.moves
+        self._exits = net.exits
         self._leads = leads_of(net)
         self.worths = [NOWHERE] * net.many
         self._stories = []
@@ -94,7 +99,7 @@ class Ceilings:
 
     def _go_around(self, ring):
         """Raises what a ring gains at once, behind the move of it that caps the most, or for ever."""
-        moves, caps, bound, turn = self._net.moves, self.caps, ENDLESS, 0
+        moves, caps, bound, turn = self._moves, self.caps, ENDLESS, 0
         for place, index in enumerate(ring):
             bound = bound if bound == ENDLESS else bound + moves[index][3]
             if index in caps and caps[index] <= bound:
@@ -109,11 +114,11 @@ class Ceilings:
 
     def greatest(self):
         """The greatest value at the end nodes: an integer or ENDLESS."""
-        return max([self.worths[at] for at in self._net.exits])
+        return max([self.worths[at] for at in self._exits])
 
     def _stories_to_greatest(self):
         """The list of the stories that tell the value at the first end node with the greatest value, and this node."""
-        exits = self._net.exits
+        exits = self._exits
         last = exits[[self.worths[at] for at in exits].index(self.greatest())]
         found, place = [], self._told[last]
         while place is not None:
@@ -131,9 +136,9 @@ class Ceilings:
                 found.append(index)
         return found
 
-    def breaking_rules(self, most):
-        """The rules of a short run to an end node behind which the value is greater than most, as it can be."""
-        moves, caps, rules = self._net.moves, self.caps, Rules(self._net)
+    def breaking_rules(self, net, most):
+        """The rules of a short run of this net behind which the value is greater than most, as it can be."""
+        moves, caps, rules = self._moves, self.caps, Rules(net)
         stories, last = self._stories_to_greatest()
         found, walk, value = None, [], stories[0][2]
         for place, (_, index, worth, ring) in enumerate(stories):
@@ -149,14 +154,14 @@ class Ceilings:
                 walk.append(index)
                 value = min(value + moves[index][3], caps.get(index, ENDLESS))
         rules.joined(found, rules.ending(walk, last))
-        return rules.rules if len(rules.rules) > 0 else [("walk", self._net.node(last), ())]
+        return rules.rules if len(rules.rules) > 0 else [("walk", net.node(last), ())]
 
     def _needed(self, stories, most):
         """How great a value must be ahead of these stories to be capped by the first cap, or too great at the end."""
         total = 0
         for _, index, worth, ring in stories:
             for one in ring if ring is not None else [index]:
-                total = total + self._net.moves[one][3]
+                total = total + self._moves[one][3]
             if worth != ENDLESS:
                 return worth - total
         return most + 1 - total

@@ -5,10 +5,7 @@ A variable has a rank: 0 is None, the names follow in their order. The code of p
 
 from safeupto.conditions import counts_among, points_in
 from safeupto.graphs import graph_of
-
-# For how many conditions the masks are remembered.
-MOST_MASKS = 32
-
+from safeupto.memory import keep
 
 class Ground:
     """The graph of a program without parameters, and what its edges change.
@@ -33,7 +30,7 @@ class Ground:
         self._codes = {0: []}
         self._into = {}
         self._merged = {}
-        self._masks = {}
+        self._leading = {}
 
     def _put_lanes(self):
         """Finds what the edges change."""
@@ -107,15 +104,17 @@ class Ground:
         if not merged:
             return list(range(self.chart.points)), self._lanes
         key = tuple(counts)
-        if key not in self._merged:
-            spots, found, joints = list(range(self.chart.points)), [], self.chart.joints()
-            for source, target, change, edge in self._lanes:
-                if change is None and counts[edge] == 0 and target not in joints:
-                    spots[target] = spots[source]
-                else:
-                    found.append((spots[source], target, change, edge))
-            self._merged[key] = (spots, found)
-        return self._merged[key]
+        return self._merged[key] if key in self._merged else keep(self._merged, key, self._merge(counts))
+
+    def _merge(self, counts):
+        """The same for merged points."""
+        spots, found, joints = list(range(self.chart.points)), [], self.chart.joints()
+        for source, target, change, edge in self._lanes:
+            if change is None and counts[edge] == 0 and target not in joints:
+                spots[target] = spots[source]
+            else:
+                found.append((spots[source], target, change, edge))
+        return spots, found
 
     def codes_to(self, ends):
         """For each point the sorted list of the codes of the nodes there from which steps lead to ends.
@@ -123,12 +122,10 @@ class Ground:
         The ends are tuples (point, code). The list is not to be changed.
         """
         key = tuple(ends)
-        if key not in self._masks:
-            if len(self._masks) == MOST_MASKS:
-                self._masks.clear()
+        if key not in self._leading:
             known, masks = self._codes, self._masks_to(ends)
-            self._masks[key] = [known[mask] if mask in known else self.codes_in(mask) for mask in masks]
-        return self._masks[key]
+            keep(self._leading, key, [known[mask] if mask in known else self.codes_in(mask) for mask in masks])
+        return self._leading[key]
 
     def _masks_to(self, ends):
         """The masks of the codes from which steps lead to ends."""

@@ -38,29 +38,30 @@ def guarded_net(program, condition):
 
 
 def ceilings_for(program, condition, names):
-    """The greatest values at the nodes of a condition with these guards; raises all errors."""
+    """The net of a condition and the greatest values at its nodes with these guards; raises all errors."""
     net = guarded_net(program, condition)
     if not are_guards(names, program):
         raise InvalidName(names)
-    return ceilings_of(net, names)
+    return net, ceilings_of(net, names)
 
 
 def greatest_with(program, condition, names):
     """The greatest value over all runs with these guards: an integer, None or "endless"."""
-    found = ceilings_for(program, condition, names).greatest()
+    _, ceilings = ceilings_for(program, condition, names)
     # Each place of a condition is come to, so the value is never None.
-    return "endless" if found == ENDLESS else found
+    return "endless" if ceilings.greatest() == ENDLESS else ceilings.greatest()
 
 
 def is_enough(program, condition, names):
     """Whether a condition holds for ever with these guards."""
-    return ceilings_for(program, condition, names).greatest() <= condition[3]
+    _, ceilings = ceilings_for(program, condition, names)
+    return ceilings.greatest() <= condition[3]
 
 
 def broken_by(program, condition, names):
     """A short run that breaks a condition with these guards; None if they are enough."""
-    ceilings = ceilings_for(program, condition, names)
-    return None if ceilings.greatest() <= condition[3] else ceilings.breaking_rules(condition[3])
+    net, ceilings = ceilings_for(program, condition, names)
+    return None if ceilings.greatest() <= condition[3] else ceilings.breaking_rules(net, condition[3])
 
 
 def is_broken_by(program, condition, names, value):
@@ -79,10 +80,10 @@ def is_broken_by(program, condition, names, value):
 
 def capped_heights(program, condition, names):
     """Heights that show that these guards are enough; None if they are not."""
-    ceilings = ceilings_for(program, condition, names)
+    net, ceilings = ceilings_for(program, condition, names)
     if ceilings.greatest() > condition[3]:
         return None
-    found = spread(guarded_net(program, condition), ceilings.worths)
+    found = spread(net, ceilings.worths)
     return {node: "endless" if found[node] == ENDLESS else found[node] for node in found}
 
 

@@ -35,7 +35,7 @@ def heights_on(net):
 
 def spread(net, worths):
     """The dict from all nodes that matter, in their order, to the worths of a merged net."""
-    return dict(net.at_all_nodes(worths))
+    return {node: worth for node, worth in net.at_all_nodes(worths)}
 
 
 def is_heights(program, condition, value):

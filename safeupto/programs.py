@@ -2,6 +2,7 @@
 
 from safeupto.errors import InvalidBody, InvalidName, InvalidNumber, InvalidProgram
 from safeupto.kinds import GREATEST, is_name, is_range, is_within
+from safeupto.memory import keep
 from safeupto.naming import names_told
 from safeupto.rewriting import numbered, opposite
 from safeupto.statements import look_at, numbered_look, opposite_look
@@ -13,8 +14,6 @@ MOST_ARRAYS = 3
 MOST_WIDTHS = 4
 LEAST_BITS = 2
 MOST_BITS = 64
-# How much is remembered of a program: what is found out for some tens of conditions.
-MOST_REMEMBERED = 32
 # What a copy begins with: the variables of a program that is looked at quickly.
 SMALLEST = (("x", 0, 0),)
 
@@ -262,10 +261,7 @@ class Program:
 
     def remember(self, key, found):
         """Remembers what was found out about the program, which never changes, and returns it."""
-        if len(self._memory) == MOST_REMEMBERED:
-            self._memory.clear()
-        self._memory[key] = found
-        return found
+        return keep(self._memory, key, found)
 
     def beginning_with(self, name):
         """The program whose main is the body of this name; what stands in it stands twice then."""
