@@ -208,6 +208,28 @@ class Check(Case):
                         continue
                     self.wrong_at(at, lines[:at] + [other] + lines[at + 1:])
 
+    def test_first_of_several_wrong_lines(self):
+        chance = random.Random(12)
+        words = ["", "x", "01", "-1", "endless", "1 2", "0 y -", "0 y - 5", "both 0 0", "walk 0 x -", "level 3", "heights 1",
+                 "0 x - 0 x - 0", "2 x - 1 x - 3", "2 x - 1 x - x", "X x - 5", "0 x - 5 5"]
+        seen = {}
+        for text in texts() * 12:
+            lines = text.split("\n")
+            for _ in range(10):
+                bent = list(lines)
+                for _ in range(chance.choice([2, 2, 3])):
+                    at = chance.randrange(10, len(bent))
+                    other = chance.choice([chance.choice(words), bent[chance.randrange(10, len(bent))]])
+                    bent[at:at + chance.choice([0, 1, 1])] = [other]
+                found = self.told(bent)
+                if type(found) is int:
+                    # Up to there all lines are right, and this one is wrong whatever follows.
+                    seen[found] = True
+                    before = self.told(bent[:found])
+                    self.assertTrue(before == found or type(before) is not int, bent)
+                    self.assertEqual(self.told(bent[:found + 1]), found)
+        self.assertGreater(len(seen), 15)
+
     def test_integers(self):
         for text in texts():
             lines = text.split("\n")

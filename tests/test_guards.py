@@ -5,6 +5,7 @@ import random
 import unittest
 
 from safeupto.errors import InvalidCondition, InvalidName, InvalidProgram, TooMany
+from safeupto.formats import format_program, parse_program
 from safeupto.graphs import Graph
 from safeupto.guards import (broken_by, capped_heights, cheaper, greatest_with, is_broken_by, is_capped_heights, is_enough,
                              least_guards)
@@ -285,6 +286,22 @@ class Papers(Case):
                       rules + [("both", -1, 0)], [("walk",)] + rules, [*rules[:-1], (*rules[-1], None)],
                       rules + [("walk", (0, condition[1], condition[1]), ())], []]:
             self.is_false(is_broken_by(program, condition, names, other))
+
+    def test_one_choice_behind_another(self):
+        for seed, program in guarded(range(47000, 47040), points=25):
+            chance, text = random.Random(seed), format_program(program)
+            condition = ("here", chance.choice(program.names), None, chance.choice([0, 3, 10]))
+            choices = [[name for name in program.guards if chance.random() < 0.5] for _ in range(6)]
+            alone = [(is_enough(parse_program(text), condition, names), broken_by(parse_program(text), condition, names),
+                      greatest_with(parse_program(text), condition, names),
+                      capped_heights(parse_program(text), condition, names)) for names in choices]
+            for _ in range(2):
+                for at in chance.sample(range(6), 6):
+                    names = choices[at]
+                    self.assertEqual((is_enough(program, condition, names), broken_by(program, condition, names),
+                                      greatest_with(program, condition, names), capped_heights(program, condition, names)),
+                                     alone[at])
+                self.assertEqual(least_guards(program, condition), least_guards(parse_program(text), condition))
 
     def test_rules_used_several_times(self):
         program = of(*loop(up(), guard("g", most=100), HERE))

@@ -12,6 +12,7 @@ from safeupto.formulas import formula
 from safeupto.guards import broken_by, capped_heights, greatest_with, least_guards
 from safeupto.limits import as_run, breaking, is_breaking, limit
 from safeupto.lines import corners, least_line, line_heights
+from safeupto.memory import MOST_KEPT, keep
 from safeupto.papers import bounds, heights, is_bounds, is_heights
 from safeupto.rates import best_ring, is_rate, rate, rate_paper
 from safeupto.staircases import staircase
@@ -79,6 +80,13 @@ def answer(question, program, condition, size):
 
 
 class Memory(Case):
+
+    def test_little_is_kept(self):
+        known = {}
+        for at in range(3 * MOST_KEPT):
+            self.assertEqual(keep(known, at, str(at)), str(at))
+            self.assertEqual(known[at], str(at))
+            self.assertLessEqual(len(known), MOST_KEPT)
 
     def rows(self, program, seed):
         chance = random.Random(seed)

@@ -1,5 +1,6 @@
 """Heights and bounds."""
 
+import random
 import unittest
 
 from safeupto.errors import InvalidCondition, InvalidNumber, InvalidProgram, InvalidSize, TooMany
@@ -281,6 +282,45 @@ class Bounds(Case):
         # A beginning node can be come to from nowhere, but a key says nothing of this.
         self.is_false(self.accepted(2, ({**zero, (begin, (5, "x", None)): 0}, levels), wide))
         self.is_false(self.accepted(2, ({**zero, ((1, "x", None), (1, "x", None)): 0}, levels), wide))
+
+    def test_keys_in_any_order(self):
+        chance = random.Random(4)
+        for program, condition, size in cases(range(1720, 1760)):
+            wish = with_most(condition, FAR)
+            try:
+                found = bounds(program, wish, size, 1000)
+            except TooMany:
+                continue
+            if found is None:
+                continue
+            # More orders than are remembered, and the same ones again.
+            for _ in range(6):
+                zero, *levels = [dict(chance.sample(list(table.items()), len(table))) for table in [found[0], *found[1]]]
+                self.is_true(is_bounds(program, wish, size, 1000, (zero, levels)))
+                at = chance.randrange(len(levels))
+                key = chance.choice(list(levels[at]))
+                bent = [{one: levels[at][one] for one in levels[at] if one != key}]
+                if levels[at][key] != "endless":
+                    bent.append({**levels[at], key: levels[at][key] - 1})
+                for level in bent:
+                    self.is_false(is_bounds(program, wish, size, 1000, (zero, levels[:at] + [level] + levels[at + 1:])))
+                self.is_true(is_bounds(program, wish, size, 1000, found))
+
+    def test_in_order(self):
+        # What is returned stands in the order of the nodes, as texts of it do.
+        def order(node):
+            return tuple((side is not None, side) for side in node)
+        for program, condition, size in cases(range(1760, 1800)):
+            wish = with_most(condition, FAR)
+            found = heights(program, wish)
+            if found is not None:
+                self.assertEqual(list(found), sorted(found, key=order))
+            try:
+                zero, levels = bounds(program, wish, size, 9) or ({}, [])
+            except TooMany:
+                continue
+            for table in [zero, *levels]:
+                self.assertEqual(list(table), sorted(table, key=lambda pair: (order(pair[0]), order(pair[1]))))
 
     def test_levels_more_or_less(self):
         zero, levels = bounds(self.program, self.wish, GO, 3)

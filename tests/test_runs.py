@@ -270,6 +270,21 @@ class AllRuns(Case):
         self.assertGreater(len(found), 0)
         self.assertEqual({run.choices[0] for run in found}, {(36, None)})
 
+    def test_what_is_taken_goes_on(self):
+        # What was taken stays as it is while others are made, and can be gone on with.
+        for program in made_up(range(6500, 6530), parameters=False):
+            machine = Machine(program)
+            taken = list(itertools.islice(runs(machine, 3), 40))
+            for run in taken:
+                again = Run(machine, run.states[0].numbers, run.choices)
+                self.assertEqual(run, again)
+                self.assertEqual(run.last, again.last)
+                self.assertEqual(len(run.states), 4)
+                for edge in machine.edges_from(run.last):
+                    if machine.graph.edges[edge][2] is None:
+                        self.assertEqual(run.more([(edge, None)]), again.more([(edge, None)]))
+            self.assertEqual(taken, list(itertools.islice(runs(machine, 3), 40)))
+
     def test_end(self):
         program = Program([("x", 0, 0)], (PLACE, PLACE))
         self.assertEqual([len(list(runs(Machine(program), most))) for most in range(4)], [1, 1, 1, 0])
