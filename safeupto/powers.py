@@ -129,6 +129,5 @@ def doubled(level, pairs):
     for first, second, both in pairs:
         worth = level[first] + level[second]
         if both not in found or found[both] < worth:
-            # What is endless stays as it is, and does not become greater and greater.
-            found[both] = ENDLESS if worth > ENDLESS else worth
+            found[both] = worth
     return found

@@ -276,6 +276,22 @@ class Breaking(Case):
                      ("both", 0), ("both", 0, 1, 2), ["both", 0, 1], ("both", 0.0, 1), ("all", 0, 1), ("both", 2, 1)]:
             self.is_false(self.is_one(self.bent(3, rule)), rule)
 
+    def test_joins_that_do_not_meet(self):
+        # All that is wrong with them is that one walk does not begin where the other one ends.
+        early = ("walk", (0, "y", None), ((0, "y", None), (1, "y", None)))
+        self.is_false(self.is_one([early, self.last, ("both", 0, 1)], bound=-9))
+        self.is_true(self.is_one([early, ("walk", (2, "y", None), ((2, "x", None),)), self.last, ("both", 0, 1),
+                                  ("both", 3, 2)], bound=-9))
+        other = ("walk", (2, "x", None), ((2, "x", None), (3, "x", None)))
+        self.is_false(self.is_one([early, other, ("both", 0, 1)], bound=-9))
+        self.is_false(self.is_one([self.last, self.first, ("both", 1, 0), ("both", 2, 0)], bound=-9))
+
+    def test_true_and_false_are_no_indices(self):
+        rules = [self.first, self.last, ("both", 0, 1)]
+        self.is_true(self.is_one(rules, bound=-9))
+        for rule in [("both", False, 1), ("both", 0, True), ("both", False, True)]:
+            self.is_false(self.is_one(rules[:2] + [rule], bound=-9))
+
     def test_bent_lists(self):
         self.is_false(self.is_one([]))
         self.is_false(self.is_one(tuple(self.rules)))
