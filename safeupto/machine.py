@@ -248,7 +248,7 @@ def runs(machine, most):
                 states.append(machine.after(states[-1].numbers, made[0], made[1]))
                 choices.append(made)
             if length == most:
-                yield first.through(states, choices)
+                yield first.through(states, choices) if length > 0 else first
             else:
                 # Only choices are made behind which the run can go on to its full length, so the next run is never far.
                 waiting.extend([(length + 1, choice, target) for choice, target, lasting in ways[point]
