@@ -4,7 +4,6 @@ A bound is at a place: the number of a head times how many nodes or heads there 
 number of a head. The places at which a level has bounds, in its order, are its shape; most levels have the same.
 """
 
-
 from safeupto.memory import keep
 
 
@@ -121,6 +120,7 @@ class Inspector:
             sums = known[key]
             if sums is None:
                 return False
+            # Among integers alone one comparison is enough.
             if is_plain and are_plain:
                 if any([greater[both] < bounds[first] + bounds[second] for first, second, both in sums]):
                     return False

@@ -7,6 +7,7 @@ from safeupto.conditions import counts_among, points_in
 from safeupto.graphs import graph_of
 from safeupto.memory import keep
 
+
 class Ground:
     """The graph of a program without parameters, and what its edges change.
 
@@ -86,13 +87,13 @@ class Ground:
         if code not in known:
             sides, ranks = self.sides, self.ranks
             plus, minus = code // sides, code % sides
+            # An input adds its high to None for plus, and takes its low from it for minus.
             parts = [(None, action[3] if plus == rank else action[2])] if action[0] == "input" else action[2]
+            found = [(ranks[side], weight) for side, weight in parts]
             # A variable minus itself is None minus None.
             if plus == rank:
-                found = [(ranks[side], weight) for side, weight in parts]
                 known[code] = [(0 if was == minus else was * sides + minus, weight) for was, weight in found]
             else:
-                found = [(ranks[side], weight) for side, weight in parts]
                 known[code] = [(0 if was == plus else plus * sides + was, -weight) for was, weight in found]
         return known[code]
 

@@ -110,6 +110,7 @@ class PaperReader:
         pairs, bounds, lines, sizes = self._pairs, self._bounds, self._lines, {}
         zero, found = self._table(many, 6, pairs, bounds), []
         while len(found) < levels:
+            # Most levels begin with the same line.
             line = lines[self._at] if self._at < len(lines) else None
             if line in sizes:
                 self._at = self._at + 1
@@ -128,7 +129,7 @@ class PaperReader:
         for line in lines:
             ahead, _, word = line.rpartition(" ")
             if ahead not in keys:
-                keys[ahead] = self._told(ahead.split(" "), length)
+                keys[ahead] = self._nodes_told(ahead.split(" "), length)
                 is_right = is_right and keys[ahead] is not None
             if word not in numbers:
                 numbers[word] = read_integer(word, GREATEST_TOLD)
@@ -143,6 +144,7 @@ class PaperReader:
         """The list of so many rules of a short run."""
         found, first = [], self._at
         lines = self._lines[first:first + many]
+        # Right rules tell of no others than these.
         counts = {str(at): at for at in range(len(lines))}
         for line in lines:
             words = line.split(" ")
@@ -170,11 +172,11 @@ class PaperReader:
         steps, known = words[4:], self._steps
         for word in steps:
             if word not in known:
-                known[word] = self._told(word.split(":"), 3)
+                known[word] = self._nodes_told(word.split(":"), 3)
         found = tuple([known[word] for word in steps])
         return ("walk", self._node(words[1], words[2], words[3]), None if None in found else found)
 
-    def _told(self, words, length):
+    def _nodes_told(self, words, length):
         """The node, or the tuple of two nodes, that so many words, 3 or 6, stand for; None if they do not."""
         if len(words) != length:
             return None

@@ -2,7 +2,7 @@
 
 from safeupto.bounding import Inspector
 from safeupto.errors import InvalidNumber
-from safeupto.kinds import GREATEST, is_integer, is_within
+from safeupto.kinds import GREATEST, is_within
 from safeupto.nets import MOST_HEADS, full_net_for, heads_of, leads_of, plain_net_for
 from safeupto.powers import bounds_for
 from safeupto.reckoning import reckoning_for
